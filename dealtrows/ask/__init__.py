@@ -1,0 +1,1 @@
+"""Queries and their matches."""

@@ -1,0 +1,111 @@
+"""The matches of queries in rows, which need not be a database."""
+
+from dealtrows.ask.joins import blockers, is_open, match_list, numbers_on, open_list, pairs_of, values_of
+from dealtrows.ask.queries import Query
+from dealtrows.base.answers import Answer
+from dealtrows.base.databases import MAX_ROWS, is_rows, many_rows
+from dealtrows.base.names import are_integers, is_integer, is_number
+from dealtrows.errors import InvalidNumber, InvalidOperation, InvalidQuery, InvalidRow
+
+MAX_MATCHES = 2000
+
+
+def _check_query(query):
+    if not isinstance(query, Query):
+        raise InvalidQuery("this is no query")
+
+
+def _clause_at(query, index):
+    """The clause of a query with this index."""
+    _check_query(query)
+    if not is_number(index) or not 0 <= index < len(query):
+        raise InvalidNumber(index)
+    return query.clauses[index]
+
+
+def _check_rows(query, rows):
+    if not is_rows(query.schema, rows) or many_rows(rows) > MAX_ROWS:
+        raise InvalidRow("these are no rows of the schema, or too many")
+
+
+def _is_assignment(clause, value):
+    """Whether the value is a dict from exactly the variables of the parts to integers."""
+    if not isinstance(value, dict) or len(value) != len(clause.variables):
+        return False
+    return all([name in value and is_integer(value[name]) for name in clause.variables])
+
+
+def _check_assignment(clause, match):
+    if not _is_assignment(clause, match):
+        raise InvalidOperation("this is no dict from exactly the variables of the parts to integers")
+
+
+def matches(query, index, rows):
+    """The matches of a clause in some rows, ascending by their integers."""
+    clause = _clause_at(query, index)
+    _check_rows(query, rows)
+    for match in match_list(clause, rows, MAX_MATCHES):
+        yield match
+
+
+def open_matches(query, index, rows):
+    """The matches of a clause without its absences, ascending by their integers."""
+    clause = _clause_at(query, index)
+    _check_rows(query, rows)
+    for match in open_list(clause, rows, MAX_MATCHES):
+        yield match
+
+
+def is_match(query, index, rows, value):
+    """Whether the value is a match of a clause in some rows."""
+    clause = _clause_at(query, index)
+    _check_rows(query, rows)
+    # The limit of open matches holds for every value.
+    open_list(clause, rows, MAX_MATCHES)
+    return _is_assignment(clause, value) and is_open(clause, rows, value) and not blockers(clause, rows, value)
+
+
+def match_head(query, index, match):
+    """The head of a match, with integers."""
+    clause = _clause_at(query, index)
+    _check_assignment(clause, match)
+    return values_of(clause.head, match)
+
+
+def match_rows(query, index, match):
+    """The ascending tuple of the different pairs (table, row) that the parts of a clause become."""
+    clause = _clause_at(query, index)
+    _check_assignment(clause, match)
+    return pairs_of(clause, match)
+
+
+def blocking_rows(query, index, rows, match):
+    """The ascending tuple of the pairs of the rows that an absence becomes in an open match."""
+    clause = _clause_at(query, index)
+    _check_rows(query, rows)
+    _check_assignment(clause, match)
+    if not is_open(clause, rows, match):
+        raise InvalidOperation("this is no open match in the rows")
+    open_list(clause, rows, MAX_MATCHES)
+    return blockers(clause, rows, match)
+
+
+def witnesses(query, rows, head):
+    """The pairs (index, match) of all matches with this head."""
+    _check_query(query)
+    _check_rows(query, rows)
+    if not are_integers(head) or len(head) != query.width:
+        raise InvalidOperation("this is no head of the query")
+    # All clauses are matched before the first result, so that too many matches are told at once.
+    found = [match_list(clause, rows, MAX_MATCHES) for clause in query.clauses]
+    for index, clause in enumerate(query.clauses):
+        for match in found[index]:
+            if values_of(clause.head, match) == head:
+                yield (index, match)
+
+
+def answer_on(query, rows):
+    """The answer of a query on some rows."""
+    _check_query(query)
+    _check_rows(query, rows)
+    return Answer(query.form, numbers_on(query.form, query.clauses, rows, MAX_MATCHES))

@@ -1,0 +1,1 @@
+"""Names, answers, schemas and databases."""

@@ -1,0 +1,233 @@
+"""Databases: rows that keep the keys and the references of a schema."""
+
+from dealtrows.base.names import is_name
+from dealtrows.base.schemas import check_schema, picked
+from dealtrows.errors import BrokenConstraint, InvalidDatabase, InvalidOperation, InvalidRow
+from dealtrows.errors import MissingRow, TooMany, UnknownName
+
+MAX_ROWS = 100
+
+
+def _are_rows_of(schema, table, value):
+    """Whether the value is a tuple of different rows of a table."""
+    if table not in schema or not isinstance(value, tuple):
+        return False
+    return all([schema.is_row_of(table, row) for row in value]) and len(set(value)) == len(value)
+
+
+def is_rows(schema, value):
+    """Whether the value is a dict from some tables to tuples of different rows of theirs."""
+    check_schema(schema)
+    return isinstance(value, dict) and all([_are_rows_of(schema, table, value[table]) for table in value])
+
+
+def many_rows(rows):
+    """How many rows there are in a dict of rows."""
+    return sum([len(rows[table]) for table in rows])
+
+
+def is_pair(schema, value):
+    """Whether the value is a pair of a table and a row of it."""
+    if not isinstance(value, tuple) or len(value) != 2:
+        return False
+    return value[0] in schema and schema.is_row_of(value[0], value[1])
+
+
+def _values_in(schema, rows, table, columns):
+    """For each row of a table its integers in these columns."""
+    named = schema.columns_of(table)
+    return [picked(named, row, columns) for row in rows.get(table, ())]
+
+
+def _first_broken_key(schema, rows):
+    for table in sorted(rows):
+        for key in schema.keys_of(table):
+            if len(set(_values_in(schema, rows, table, key))) < len(rows[table]):
+                return ("key", table, key)
+    return None
+
+
+def _is_broken(schema, rows, reference):
+    """Whether some row has no parent by a reference."""
+    table, columns, parent, key = reference
+    there = {values: True for values in _values_in(schema, rows, parent, key)}
+    return not all([wanted in there for wanted in _values_in(schema, rows, table, columns)])
+
+
+def first_broken(schema, rows):
+    """The first constraint that the rows break, or None."""
+    if not is_rows(schema, rows):
+        raise InvalidRow("these are no rows of the schema")
+    broken_key = _first_broken_key(schema, rows)
+    if broken_key is not None:
+        return broken_key
+    references = schema.references
+    for name in references:
+        if _is_broken(schema, rows, references[name]):
+            return ("reference", name)
+    return None
+
+
+def _parents_in(schema, rows):
+    """The parent pair of each row by each reference, by the name of the reference and the row."""
+    parents = {}
+    references = schema.references
+    for name in references:
+        table, columns, parent, key = references[name]
+        by_key = dict(zip(_values_in(schema, rows, parent, key), rows[parent]))
+        for row, values in zip(rows[table], _values_in(schema, rows, table, columns)):
+            parents[name, row] = (parent, by_key[values])
+    return parents
+
+
+def _rows_of(pairs):
+    """The dict of rows of some different pairs."""
+    rows = {}
+    for table, row in pairs:
+        rows[table] = rows.get(table, ()) + (row,)
+    return rows
+
+
+class Database:
+    """Rows of the tables of a schema that break none of its constraints. It never changes."""
+
+    def __init__(self, schema, rows=None):
+        given = {} if rows is None else rows
+        if not is_rows(schema, given):
+            raise InvalidDatabase("these are no rows of the schema")
+        if many_rows(given) > MAX_ROWS:
+            raise TooMany(MAX_ROWS)
+        broken = first_broken(schema, given)
+        if broken is not None:
+            raise BrokenConstraint(broken)
+        self._schema = schema
+        self._rows = {table: tuple(sorted(given.get(table, ()))) for table in schema.tables}
+        self._pairs = tuple([(table, row) for table in self._rows for row in self._rows[table]])
+        self._parents = _parents_in(schema, self._rows)
+
+    @classmethod
+    def empty(cls, schema):
+        """The database without rows."""
+        return cls(schema)
+
+    @property
+    def schema(self):
+        """The schema."""
+        return self._schema
+
+    @property
+    def rows(self):
+        """A dict from all tables to the ascending tuples of their rows."""
+        return dict(self._rows)
+
+    def pairs(self):
+        """The ascending tuple of the pairs (table, row)."""
+        return self._pairs
+
+    def __iter__(self):
+        return iter(self._pairs)
+
+    def __getitem__(self, at):
+        if at not in self._schema:
+            raise UnknownName(at)
+        return self._rows[at]
+
+    def __len__(self):
+        return len(self._pairs)
+
+    def __contains__(self, x):
+        return is_pair(self._schema, x) and x[1] in self._rows[x[0]]
+
+    def __eq__(self, other):
+        return isinstance(other, Database) and self._schema == other._schema and self._rows == other._rows
+
+    def __str__(self):
+        return f"database of {len(self._pairs)} rows"
+
+    def _check_table(self, table):
+        if table not in self._schema:
+            raise UnknownName(table)
+
+    def _check_row(self, table, row):
+        if (table, row) not in self:
+            raise MissingRow(row)
+
+    def _check_other(self, other):
+        if not isinstance(other, Database) or other._schema != self._schema:
+            raise InvalidOperation("the other value is no database of an equal schema")
+
+    def parent_of(self, reference, row):
+        """The parent of a row by a reference."""
+        references = self._schema.references
+        if not is_name(reference) or reference not in references:
+            raise UnknownName(reference)
+        self._check_row(references[reference][0], row)
+        return self._parents[reference, row][1]
+
+    def children_of(self, table, row):
+        """The ascending tuple of the pairs of the rows of which a row is the parent."""
+        self._check_table(table)
+        self._check_row(table, row)
+        references = self._schema.references
+        found = [(references[name][0], child) for name, child in self._parents
+                 if self._parents[name, child] == (table, row)]
+        # A row can be the parent of another one by several references.
+        return tuple(sorted(set(found)))
+
+    def _closure(self, pairs):
+        """The pairs of the closure of some rows that are there."""
+        found = {}
+        waiting = list(pairs)
+        while waiting:
+            pair = waiting.pop()
+            if pair not in found:
+                found[pair] = True
+                names = self._schema.references_of(pair[0])
+                waiting.extend([self._parents[name, pair[1]] for name in names])
+        return list(found)
+
+    def closure_of(self, *pairs):
+        """The database of the closure of some rows."""
+        for pair in pairs:
+            if not is_pair(self._schema, pair):
+                raise InvalidRow("this is no pair of a table and a row of it")
+            self._check_row(pair[0], pair[1])
+        return Database(self._schema, _rows_of(self._closure(pairs)))
+
+    def with_row(self, table, row):
+        """The database that has this row, too."""
+        if not self._schema.is_row_of(table, row):
+            raise InvalidRow("this is no row of the table")
+        if (table, row) in self:
+            return self
+        return Database(self._schema, _rows_of([*self._pairs, (table, row)]))
+
+    def without_row(self, table, row):
+        """The database that lacks this row and all rows whose closure contains it."""
+        self._check_table(table)
+        self._check_row(table, row)
+        left = [pair for pair in self._pairs if (table, row) not in self._closure([pair])]
+        return Database(self._schema, _rows_of(left))
+
+    def __or__(self, other):
+        self._check_other(other)
+        more = [pair for pair in other._pairs if pair not in self]
+        return Database(self._schema, _rows_of([*self._pairs, *more]))
+
+    def _shared(self, other):
+        """The pairs of the rows whose closures are rows of the other database."""
+        return [pair for pair in self._pairs if all([near in other for near in self._closure([pair])])]
+
+    def __and__(self, other):
+        self._check_other(other)
+        return Database(self._schema, _rows_of(self._shared(other)))
+
+    def __sub__(self, other):
+        self._check_other(other)
+        shared = self._shared(other)
+        return Database(self._schema, _rows_of(self._closure([pair for pair in self._pairs if pair not in shared])))
+
+    def is_within(self, other):
+        """Whether each row is one of the other database."""
+        self._check_other(other)
+        return all([pair in other for pair in self._pairs])

@@ -1,0 +1,49 @@
+"""What a single value can be: a name, an integer, a row, the form of an answer."""
+
+_FORMS = ("distinct", "count", "sum")
+_LETTERS = 8
+_COLUMNS = 4
+_INTEGER_BOUND = 10 ** 60
+
+
+def is_name(value):
+    """Whether the value is a name: one to eight letters from a to z."""
+    if not isinstance(value, str) or not 1 <= len(value) <= _LETTERS:
+        return False
+    return all(["a" <= letter <= "z" for letter in value])
+
+
+def is_number(value):
+    """Whether the value is an integer of any length."""
+    # True and False are integers for Python, but not here.
+    return isinstance(value, int) and not isinstance(value, bool)
+
+
+def is_integer(value):
+    """Whether the value is an integer of at most sixty digits."""
+    return is_number(value) and -_INTEGER_BOUND < value < _INTEGER_BOUND
+
+
+def are_integers(value):
+    """Whether the value is a tuple of integers, perhaps without any."""
+    return isinstance(value, tuple) and all([is_integer(number) for number in value])
+
+
+def is_row(value):
+    """Whether the value is a tuple of one to four integers."""
+    return are_integers(value) and 1 <= len(value) <= _COLUMNS
+
+
+def is_form(value):
+    """Whether the value is the form of a query and of its answers."""
+    return isinstance(value, str) and value in _FORMS
+
+
+def are_names(value):
+    """Whether the value is a tuple of names, perhaps without any."""
+    return isinstance(value, tuple) and all([is_name(name) for name in value])
+
+
+def is_ascending(values):
+    """Whether the values of a tuple, of one kind, ascend strictly."""
+    return all([low < high for low, high in zip(values, values[1:])])

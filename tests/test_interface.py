@@ -1,0 +1,103 @@
+"""The names of the interface: each stands in the module under whose heading the document lists it."""
+
+import importlib
+import inspect
+import unittest
+
+INTERFACE = {
+    "dealtrows.errors": ("DealError", "InvalidSchema", "InvalidDatabase", "InvalidClause", "InvalidQuery", "InvalidRule",
+                         "InvalidPlacement", "InvalidCase", "InvalidRow", "InvalidAnswer", "InvalidOperation",
+                         "ParseError(line)", "BrokenConstraint(constraint)", "Rejected(reason)", "UnknownName(name)",
+                         "MissingRow(row)", "NothingToUndo(many)", "TooMany(limit)", "InvalidNumber(value)",
+                         "NoNodes(value)"),
+    "dealtrows.base.names": ("is_name(value)", "is_integer(value)", "is_row(value)"),
+    "dealtrows.base.answers": ("Answer(form, numbers=None)", "combined(form, *answers)"),
+    "dealtrows.base.schemas": ("Schema(tables, *, keys=None, references=None)",),
+    "dealtrows.base.databases": ("is_rows(schema, value)", "first_broken(schema, rows)", "Database(schema, rows=None)"),
+    "dealtrows.ask.queries": ("Clause(parts, *, tests=(), absences=(), head=(), summed=None)",
+                              "Query(schema, form, *clauses)"),
+    "dealtrows.ask.matches": ("matches(query, index, rows)", "open_matches(query, index, rows)",
+                              "is_match(query, index, rows, value)", "match_head(query, index, match)",
+                              "match_rows(query, index, match)", "blocking_rows(query, index, rows, match)",
+                              "witnesses(query, rows, head)", "answer_on(query, rows)"),
+}
+CONSTANTS = {
+    "dealtrows.base.schemas": {"MAX_TABLES": 5, "MAX_COLUMNS": 4, "MAX_KEYS": 2, "MAX_REFERENCES": 4},
+    "dealtrows.base.databases": {"MAX_ROWS": 100},
+    "dealtrows.ask.queries": {"MAX_PARTS": 3, "MAX_TESTS": 4, "MAX_ABSENCES": 2, "MAX_HEAD": 3, "MAX_CLAUSES": 3,
+                              "MAX_NAMED": 4},
+    "dealtrows.ask.matches": {"MAX_MATCHES": 2000},
+}
+PROPERTY, METHOD, CLASS_METHOD, STATIC = "property", "method", "classmethod", "static"
+MEMBERS = {
+    ("dealtrows.base.answers", "Answer"): {
+        PROPERTY: ("form", "heads"), METHOD: ("pairs()",), CLASS_METHOD: ("of_heads(heads)",), STATIC: (),
+        "own": ("iter", "getitem", "contains", "len", "bool", "eq", "str", "add", "sub", "neg", "or", "and", "xor")},
+    ("dealtrows.base.schemas", "Schema"): {
+        PROPERTY: ("tables", "references"), CLASS_METHOD: (), STATIC: (),
+        METHOD: ("columns_of(table)", "keys_of(table)", "references_of(table)", "is_row_of(table, value)",
+                 "leads_to(table, other)", "without_key(table, columns)", "without_reference(name)"),
+        "own": ("contains", "len", "eq", "str")},
+    ("dealtrows.base.databases", "Database"): {
+        PROPERTY: ("schema", "rows"), CLASS_METHOD: ("empty(schema)",), STATIC: (),
+        METHOD: ("pairs()", "parent_of(reference, row)", "children_of(table, row)", "closure_of(*pairs)",
+                 "with_row(table, row)", "without_row(table, row)", "is_within(other)"),
+        "own": ("iter", "getitem", "contains", "len", "eq", "str", "or", "and", "sub")},
+    ("dealtrows.ask.queries", "Clause"): {
+        PROPERTY: ("parts", "tests", "absences", "head", "summed", "variables", "free"), CLASS_METHOD: (), STATIC: (),
+        METHOD: ("with_head(head)", "with_tests(*tests)", "with_absence(table, terms)", "without_absences()",
+                 "renamed(names)"),
+        "own": ("eq", "str")},
+    ("dealtrows.ask.queries", "Query"): {
+        PROPERTY: ("schema", "form", "clauses", "integers", "width"), CLASS_METHOD: ("of(schema, form, clauses)",),
+        STATIC: ("is_form(value)",), METHOD: ("only(index)",),
+        "own": ("call", "add", "len", "iter", "contains", "eq", "str")},
+}
+
+
+class InterfaceTest(unittest.TestCase):
+    def test_functions_and_classes(self):
+        for module_name, listed in INTERFACE.items():
+            module = importlib.import_module(module_name)
+            for text in listed:
+                name, _, rest = text.partition("(")
+                found = getattr(module, name)
+                self.assertEqual(found.__module__, module_name, text)
+                if rest:
+                    self.assertEqual(f"{name}{inspect.signature(found)}", text)
+
+    def test_constants(self):
+        for module_name, listed in CONSTANTS.items():
+            module = importlib.import_module(module_name)
+            for name, value in listed.items():
+                self.assertEqual(getattr(module, name), value)
+
+    def test_generators(self):
+        module = importlib.import_module("dealtrows.ask.matches")
+        for name in ("matches", "open_matches", "witnesses"):
+            self.assertTrue(inspect.isgeneratorfunction(getattr(module, name)), name)
+
+    def test_members(self):
+        for (module_name, class_name), kinds in MEMBERS.items():
+            own = vars(getattr(importlib.import_module(module_name), class_name))
+            for name in kinds[PROPERTY]:
+                self.assertIsInstance(own[name], property, name)
+            for name in kinds["own"]:
+                self.assertIn(f"__{name}__", own)
+            for kind, held in ((METHOD, None), (CLASS_METHOD, classmethod), (STATIC, staticmethod)):
+                for text in kinds[kind]:
+                    self.check_member(own, text, held)
+
+    def check_member(self, own, text, held):
+        name = text.partition("(")[0]
+        found = own[name]
+        if held is not None:
+            self.assertIsInstance(found, held, text)
+            found = found.__func__
+        parameters = list(inspect.signature(found).parameters.values())
+        told = parameters if held is staticmethod else parameters[1:]
+        self.assertEqual(f"{name}({', '.join([str(parameter) for parameter in told])})", text)
+
+
+if __name__ == "__main__":
+    unittest.main()

@@ -1,0 +1,234 @@
+"""Rules of LANGUAGE.md for the files of the package, as far as a glance at the code can tell."""
+
+import ast
+import builtins
+import pathlib
+import re
+import unittest
+
+PACKAGE = pathlib.Path(__file__).resolve().parent.parent / "dealtrows"
+BUILTINS = set(
+    "len range enumerate zip min max sum abs sorted reversed int str bool bytes list tuple dict set frozenset isinstance"
+    " ord repr any all divmod pow getattr hasattr setattr iter next map Exception ValueError TypeError KeyError IndexError"
+    " LookupError ZeroDivisionError ArithmeticError OverflowError RuntimeError NotImplementedError AttributeError"
+    " StopIteration NotImplemented property staticmethod classmethod super".split())
+METHODS = set(
+    "append clear copy count endswith extend find get index insert isalnum isalpha isdigit islower isspace isupper items"
+    " join keys ljust lower lstrip partition pop remove replace reverse rfind rjust rpartition rsplit rstrip setdefault"
+    " split splitlines startswith strip update upper values zfill bit_length add discard".split())
+BARRED = set(
+    "register mro elements open input law version_info with_traceback add_note attrgetter breakpoint builtins compile"
+    " copyright credits delattr dir eval exec exit gc globals help id importlib license locals methodcaller os quit"
+    " type vars sys".split())
+WORDS = re.compile(
+    r"\b(type|typing|typing_extensions|enum|Enum|IntEnum|StrEnum|Flag|IntFlag|Generic|Protocol|ABC|ABCMeta|namedtuple"
+    r"|NamedTuple|TypedDict|TYPE_CHECKING|abstractmethod)\b|dataclass|overload|contextmanager|_wall|_WallAttr|Meta|\(type\)"
+    r"|metaclass=")
+TAKE_LISTS = ("any", "all", "min", "max", "sum", "sorted")
+
+
+def sources():
+    """The text and the tree of each file, by its module name."""
+    found = {}
+    for path in sorted(PACKAGE.rglob("*.py")):
+        name = ".".join(path.relative_to(PACKAGE.parent).with_suffix("").parts)
+        text = path.read_bytes().decode("utf-8")
+        found[name] = (text, ast.parse(text))
+    return found
+
+
+SOURCES = sources()
+
+
+def parents_of(tree):
+    """The node above each node."""
+    return {child: node for node in ast.walk(tree) for child in ast.iter_child_nodes(node)}
+
+
+def bound_names(tree):
+    """All names that the code binds, but for methods and attributes."""
+    methods = {item for node in ast.walk(tree) if isinstance(node, ast.ClassDef) for item in node.body}
+    for node in ast.walk(tree):
+        if isinstance(node, ast.Name) and isinstance(node.ctx, ast.Store):
+            yield node.id
+        elif isinstance(node, ast.arg):
+            yield node.arg
+        elif isinstance(node, (ast.FunctionDef, ast.ClassDef)) and node not in methods:
+            yield node.name
+        elif isinstance(node, ast.alias):
+            yield node.name
+
+
+class FilesTest(unittest.TestCase):
+    def test_files(self):
+        self.assertLessEqual(len(SOURCES), 100)
+        for path in PACKAGE.rglob("*"):
+            if "__pycache__" not in path.parts:
+                self.assertRegex(path.name, r"^([a-z][a-z0-9_]*|__init__|__main__)(\.py)?$")
+                self.assertEqual(path.is_dir(), path.suffix == "", path)
+            if path.is_dir() and path.name != "__pycache__":
+                self.assertTrue((path / "__init__.py").is_file(), path)
+
+    def test_characters_and_sizes(self):
+        for name, (text, _) in SOURCES.items():
+            self.assertTrue(all(character == "\n" or " " <= character <= "~" for character in text), name)
+            self.assertLessEqual(len(text.splitlines()), 399, name)
+            self.assertLessEqual(max(len(line) for line in text.splitlines()), 120, name)
+
+    def test_lines_of_functions(self):
+        for name, (_, tree) in SOURCES.items():
+            for node in ast.walk(tree):
+                if isinstance(node, ast.FunctionDef):
+                    self.assertLessEqual(node.end_lineno - node.lineno + 1, 40, (name, node.name))
+
+    def test_words(self):
+        for name, (text, _) in SOURCES.items():
+            self.assertIsNone(WORDS.search(text), name)
+
+
+class ImportsTest(unittest.TestCase):
+    def imports_of(self, tree):
+        return [node for node in ast.walk(tree) if isinstance(node, (ast.Import, ast.ImportFrom))]
+
+    def test_imports_name_the_file_that_defines(self):
+        for name, (_, tree) in SOURCES.items():
+            for node in self.imports_of(tree):
+                self.assertIsInstance(node, ast.ImportFrom, name)
+                self.assertEqual(node.level, 0, name)
+                self.assertIn(node.module, SOURCES, name)
+                defined = set()
+                for statement in SOURCES[node.module][1].body:
+                    if isinstance(statement, ast.Assign):
+                        defined.add(statement.targets[0].id)
+                    elif isinstance(statement, (ast.FunctionDef, ast.ClassDef)):
+                        defined.add(statement.name)
+                for alias in node.names:
+                    self.assertIsNone(alias.asname)
+                    self.assertIn(alias.name, defined, name)
+
+    def test_imports_stand_at_the_top_and_are_used(self):
+        for name, (_, tree) in SOURCES.items():
+            body = tree.body[1:] if ast.get_docstring(tree) is not None else tree.body
+            imports = self.imports_of(tree)
+            self.assertEqual(body[:len(imports)], imports, name)
+            used = {node.id for node in ast.walk(tree) if isinstance(node, ast.Name)}
+            self.assertLessEqual({alias.name for node in imports for alias in node.names}, used, name)
+
+    def test_no_import_leads_round(self):
+        steps = {name: {node.module for node in self.imports_of(tree)} for name, (_, tree) in SOURCES.items()}
+        while steps:
+            last = [name for name in steps if not any(other in steps for other in steps[name])]
+            self.assertTrue(last, steps)
+            steps = {name: steps[name] for name in steps if name not in last}
+
+
+class CodeTest(unittest.TestCase):
+    def nodes(self, *kinds):
+        for name, (_, tree) in SOURCES.items():
+            for node in ast.walk(tree):
+                if isinstance(node, kinds):
+                    yield f"{name}:{node.lineno}", node
+
+    def test_module_level(self):
+        for name, (_, tree) in SOURCES.items():
+            for node in tree.body:
+                plain = isinstance(node, ast.Expr) and isinstance(node.value, ast.Constant)
+                self.assertTrue(plain or isinstance(node, (
+                    ast.ImportFrom, ast.Assign, ast.FunctionDef, ast.ClassDef)), (name, node.lineno))
+
+    def test_names_are_bound_once_and_are_no_builtins(self):
+        for name, (_, tree) in SOURCES.items():
+            top = [node.name for node in tree.body if isinstance(node, (ast.FunctionDef, ast.ClassDef))]
+            top.extend(node.targets[0].id for node in tree.body if isinstance(node, ast.Assign))
+            top.extend(alias.name for node in tree.body if isinstance(node, ast.ImportFrom) for alias in node.names)
+            self.assertEqual(len(top), len(set(top)), name)
+            for bound in bound_names(tree):
+                self.assertFalse(hasattr(builtins, bound) or bound in BARRED, (name, bound))
+            imported = {alias.name for node in tree.body if isinstance(node, ast.ImportFrom) for alias in node.names}
+            classes = {node.name for node in tree.body if isinstance(node, ast.ClassDef)}
+            for node in ast.walk(tree):
+                if isinstance(node, ast.arg) or isinstance(node, ast.Name) and isinstance(node.ctx, ast.Store):
+                    self.assertNotIn(node.arg if isinstance(node, ast.arg) else node.id, imported | classes, name)
+
+    def test_builtins(self):
+        for at, node in self.nodes(ast.Name):
+            if hasattr(builtins, node.id):
+                self.assertIn(node.id, BUILTINS, at)
+
+    def test_methods(self):
+        own = {node.name for _, node in self.nodes(ast.FunctionDef)}
+        for at, node in self.nodes(ast.Call):
+            if isinstance(node.func, ast.Attribute):
+                self.assertIn(node.func.attr, METHODS | own, at)
+
+    def test_statements_that_are_not_allowed(self):
+        for name, (_, tree) in SOURCES.items():
+            barred = (ast.Global, ast.AsyncFunctionDef, ast.AsyncFor, ast.AsyncWith, ast.Await, ast.Div)
+            self.assertFalse([node for node in ast.walk(tree) if isinstance(node, barred)], name)
+        for at, node in self.nodes(ast.Constant):
+            self.assertNotIsInstance(node.value, (float, complex), at)
+            self.assertFalse(isinstance(node.value, str) and "%" in node.value, at)
+
+    def test_decorators(self):
+        for at, node in self.nodes(ast.FunctionDef, ast.ClassDef):
+            for decorator in node.decorator_list:
+                allowed = isinstance(decorator, ast.Name) and decorator.id in ("property", "staticmethod", "classmethod")
+                self.assertTrue(allowed or isinstance(decorator, ast.Attribute) and decorator.attr == "setter", at)
+
+    def test_lists_instead_of_generator_expressions(self):
+        # The package has classes with __eq__ and with operators.
+        for at, node in self.nodes(ast.Call):
+            if isinstance(node.func, ast.Name) and node.func.id in TAKE_LISTS:
+                self.assertFalse([part for part in node.args if isinstance(part, ast.GeneratorExp)], at)
+
+    def test_no_sort_of_lists(self):
+        for at, node in self.nodes(ast.Attribute):
+            self.assertNotEqual(node.attr, "sort", at)
+
+    def test_sets_are_sorted_or_measured_at_once(self):
+        for name, (_, tree) in SOURCES.items():
+            above = parents_of(tree)
+            for node in ast.walk(tree):
+                made = isinstance(node, ast.Call) and isinstance(node.func, ast.Name) and node.func.id == "set"
+                if made or isinstance(node, (ast.Set, ast.SetComp)):
+                    call = above[node]
+                    self.assertIsInstance(call, ast.Call, (name, node.lineno))
+                    self.assertIn(call.func.id, ("sorted", "len"), (name, node.lineno))
+
+    def test_is_stands_beside_plain_values(self):
+        for at, node in self.nodes(ast.Compare):
+            if isinstance(node.ops[0], (ast.Is, ast.IsNot)):
+                self.assertIsInstance(node.comparators[0], ast.Constant, at)
+
+    def test_texts_and_lengths(self):
+        for at, node in self.nodes(ast.FunctionDef):
+            if node.name in ("__len__", "__str__", "__repr__"):
+                body = node.body[1:] if ast.get_docstring(node) is not None else node.body
+                self.assertEqual([statement.__class__ for statement in body], [ast.Return], at)
+
+    def test_generators_have_names_of_their_own(self):
+        yielding = [node.name for _, node in self.nodes(ast.FunctionDef)
+                    if any(isinstance(part, (ast.Yield, ast.YieldFrom)) for part in ast.walk(node))]
+        names = [node.name for _, node in self.nodes(ast.FunctionDef)]
+        for name in yielding:
+            self.assertEqual(names.count(name), 1, name)
+
+    def test_classes_with_an_index_tell_whether_they_are_iterated_over(self):
+        for at, node in self.nodes(ast.ClassDef):
+            names = [item.name for item in node.body if isinstance(item, ast.FunctionDef)]
+            self.assertTrue("__getitem__" not in names or "__iter__" in names, at)
+            self.assertNotIn("keys", names, at)
+
+    def test_properties_have_names_of_their_own(self):
+        plain, read = set(), set()
+        for _, node in self.nodes(ast.ClassDef):
+            for item in node.body:
+                if isinstance(item, ast.FunctionDef):
+                    named = [part.id for part in item.decorator_list if isinstance(part, ast.Name)]
+                    (read if "property" in named else plain).add(item.name)
+        self.assertFalse(read & plain)
+        self.assertFalse(read & METHODS)
+
+
+if __name__ == "__main__":
+    unittest.main()
