@@ -92,7 +92,7 @@ def match_list(clause, rows, limit):
     return [match for match in open_list(clause, rows, limit) if not blockers(clause, rows, match)]
 
 
-def _number_of(form, clause, match):
+def number_of(form, clause, match):
     """What a match adds to the number of its head."""
     return value_of(clause.summed, match) if form == "sum" else 1
 
@@ -103,6 +103,6 @@ def numbers_on(form, clauses, rows, limit):
     for clause in clauses:
         for match in match_list(clause, rows, limit):
             head = values_of(clause.head, match)
-            more = _number_of(form, clause, match)
+            more = number_of(form, clause, match)
             found[head] = 1 if form == "distinct" else found.get(head, 0) + more
     return {head: found[head] for head in found if found[head] != 0}

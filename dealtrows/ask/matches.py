@@ -23,12 +23,12 @@ def _clause_at(query, index):
     return query.clauses[index]
 
 
-def _check_rows(query, rows):
+def check_rows(query, rows):
     if not is_rows(query.schema, rows) or many_rows(rows) > MAX_ROWS:
         raise InvalidRow("these are no rows of the schema, or too many")
 
 
-def _is_assignment(clause, value):
+def is_assignment(clause, value):
     """Whether the value is a dict from exactly the variables of the parts to integers."""
     if not isinstance(value, dict) or len(value) != len(clause.variables):
         return False
@@ -36,14 +36,14 @@ def _is_assignment(clause, value):
 
 
 def _check_assignment(clause, match):
-    if not _is_assignment(clause, match):
+    if not is_assignment(clause, match):
         raise InvalidOperation("this is no dict from exactly the variables of the parts to integers")
 
 
 def matches(query, index, rows):
     """The matches of a clause in some rows, ascending by their integers."""
     clause = _clause_at(query, index)
-    _check_rows(query, rows)
+    check_rows(query, rows)
     for match in match_list(clause, rows, MAX_MATCHES):
         yield match
 
@@ -51,7 +51,7 @@ def matches(query, index, rows):
 def open_matches(query, index, rows):
     """The matches of a clause without its absences, ascending by their integers."""
     clause = _clause_at(query, index)
-    _check_rows(query, rows)
+    check_rows(query, rows)
     for match in open_list(clause, rows, MAX_MATCHES):
         yield match
 
@@ -59,10 +59,10 @@ def open_matches(query, index, rows):
 def is_match(query, index, rows, value):
     """Whether the value is a match of a clause in some rows."""
     clause = _clause_at(query, index)
-    _check_rows(query, rows)
+    check_rows(query, rows)
     # The limit of open matches holds for every value.
     open_list(clause, rows, MAX_MATCHES)
-    return _is_assignment(clause, value) and is_open(clause, rows, value) and not blockers(clause, rows, value)
+    return is_assignment(clause, value) and is_open(clause, rows, value) and not blockers(clause, rows, value)
 
 
 def match_head(query, index, match):
@@ -82,7 +82,7 @@ def match_rows(query, index, match):
 def blocking_rows(query, index, rows, match):
     """The ascending tuple of the pairs of the rows that an absence becomes in an open match."""
     clause = _clause_at(query, index)
-    _check_rows(query, rows)
+    check_rows(query, rows)
     _check_assignment(clause, match)
     if not is_open(clause, rows, match):
         raise InvalidOperation("this is no open match in the rows")
@@ -93,7 +93,7 @@ def blocking_rows(query, index, rows, match):
 def witnesses(query, rows, head):
     """The pairs (index, match) of all matches with this head."""
     _check_query(query)
-    _check_rows(query, rows)
+    check_rows(query, rows)
     if not are_integers(head) or len(head) != query.width:
         raise InvalidOperation("this is no head of the query")
     # All clauses are matched before the first result, so that too many matches are told at once.
@@ -107,5 +107,5 @@ def witnesses(query, rows, head):
 def answer_on(query, rows):
     """The answer of a query on some rows."""
     _check_query(query)
-    _check_rows(query, rows)
+    check_rows(query, rows)
     return Answer(query.form, numbers_on(query.form, query.clauses, rows, MAX_MATCHES))

@@ -164,6 +164,10 @@ class Database:
         self._check_row(references[reference][0], row)
         return self._parents[reference, row][1]
 
+    def pair_above(self, reference, row):
+        """The pair (table, row) of the parent, by a reference, of a row that is there."""
+        return self._parents[reference, row]
+
     def children_of(self, table, row):
         """The ascending tuple of the pairs of the rows of which a row is the parent."""
         self._check_table(table)
@@ -185,6 +189,10 @@ class Database:
                 names = self._schema.references_of(pair[0])
                 waiting.extend([self._parents[name, pair[1]] for name in names])
         return list(found)
+
+    def closure_pairs(self, pairs):
+        """The ascending tuple of the pairs of the closure of some rows that are there."""
+        return tuple(sorted(self._closure(pairs)))
 
     def closure_of(self, *pairs):
         """The database of the closure of some rows."""

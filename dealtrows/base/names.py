@@ -44,6 +44,13 @@ def are_names(value):
     return isinstance(value, tuple) and all([is_name(name) for name in value])
 
 
+def is_plain(value):
+    """Whether a value has no True and no False in its tuples, which would equal 1 and 0."""
+    if isinstance(value, tuple):
+        return all([is_plain(part) for part in value])
+    return not isinstance(value, bool)
+
+
 def is_ascending(values):
     """Whether the values of a tuple, of one kind, ascend strictly."""
     return all([low < high for low, high in zip(values, values[1:])])

@@ -1,0 +1,1 @@
+"""Placements and cases."""

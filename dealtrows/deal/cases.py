@@ -1,0 +1,238 @@
+"""Cases: a database whose rows lie on nodes by a placement."""
+
+from dealtrows.ask.joins import numbers_on
+from dealtrows.ask.matches import MAX_MATCHES
+from dealtrows.ask.queries import Query
+from dealtrows.base.answers import Answer
+from dealtrows.base.databases import Database
+from dealtrows.base.names import is_number, is_plain
+from dealtrows.deal.placements import ALL, FIRST, check_database, check_placement
+from dealtrows.errors import InvalidCase, InvalidNumber, InvalidQuery, MissingRow, TooMany, UnknownName
+
+MAX_NODES = 9
+
+
+def _is_below(value, limit):
+    """Whether the value is an integer from 0 to below the limit."""
+    return is_number(value) and 0 <= value < limit
+
+
+def _check_nodes(nodes):
+    if not is_number(nodes) or not 1 <= nodes <= MAX_NODES:
+        raise InvalidNumber(nodes)
+
+
+def _check_whole(placement, database, nodes):
+    check_placement(placement)
+    check_database(placement.schema, database)
+    _check_nodes(nodes)
+
+
+def _are_nodes(value, wanted, nodes):
+    """Whether the value is a dict from just the wanted keys to nodes."""
+    if not isinstance(value, dict) or len(value) != len(wanted):
+        return False
+    # Keys with True or False in them would be found in the place of those with 1 or 0.
+    return all([key in wanted and is_plain(key) and _is_below(value[key], nodes) for key in value])
+
+
+def _told_places(found):
+    """The ascending tuple of the places, other than ("all",), among the places of pairs."""
+    told = [place for pair in found for place in found[pair] if place != ALL]
+    return tuple(sorted(set(told)))
+
+
+def _keys_of(word, places):
+    """What stands behind this word in some places."""
+    return {place[1:]: True for place in places if place[0] == word}
+
+
+def _nodes_behind(word, places):
+    """A dict to nodes from what stands behind this word in places, a dict to nodes."""
+    return {place[1:]: places[place] for place in places if place[0] == word}
+
+
+def _together(form, parts):
+    """The numbers of the heads in some answers of a form, joined or added; numbers can be 0."""
+    found = {}
+    for numbers in parts:
+        for head in numbers:
+            found[head] = 1 if form == "distinct" else found.get(head, 0) + numbers[head]
+    return found
+
+
+def check_query(schema, value):
+    """Refuse a value that is no query of an equal schema."""
+    if not isinstance(value, Query) or value.schema != schema:
+        raise InvalidQuery("this is no query of an equal schema")
+
+
+class Case:
+    """A placement, a database, a number of nodes and a node for each place. It never changes."""
+
+    def __init__(self, placement, database, *, nodes, spreads=None, lone=None):
+        _check_whole(placement, database, nodes)
+        found = placement.places_by_pair(database)
+        places = _told_places(found)
+        by_spread = {} if spreads is None else spreads
+        by_row = {} if lone is None else lone
+        if not _are_nodes(by_spread, _keys_of("by", places), nodes):
+            raise InvalidCase("the spreads are no dict from just the places by spreads to nodes")
+        if not _are_nodes(by_row, _keys_of("any", places), nodes):
+            raise InvalidCase("the lone rows are no dict from just the places of lone rows to nodes")
+        told = {FIRST: 0}
+        told.update({("by", spread, integers): by_spread[spread, integers] for spread, integers in by_spread})
+        told.update({("any", table, row): by_row[table, row] for table, row in by_row})
+        self._fill(placement, database, nodes, {place: told[place] for place in places}, found)
+
+    def _fill(self, placement, database, nodes, places, found):
+        """Take checked values: the ascending dict of the places, and the places of each pair."""
+        self._placement = placement
+        self._database = database
+        self._nodes = nodes
+        self._places = places
+        self._lies = {}
+        self._rows = [{table: [] for table in database.rows} for _ in range(nodes)]
+        for pair in found:
+            table, row = pair
+            if ALL in found[pair]:
+                self._lies[pair] = tuple(range(nodes))
+            else:
+                self._lies[pair] = tuple(sorted(set([places[place] for place in found[pair]])))
+            for node in self._lies[pair]:
+                self._rows[node][table].append(row)
+
+    @classmethod
+    def of_places(cls, placement, database, nodes, places):
+        """The case with the nodes of a dict from just the places of all rows."""
+        _check_whole(placement, database, nodes)
+        found = placement.places_by_pair(database)
+        wanted = {place: True for place in _told_places(found)}
+        if not _are_nodes(places, wanted, nodes) or places.get(FIRST, 0) != 0:
+            raise InvalidCase("the places are no dict from just the places of all rows to nodes")
+        # A case without rows has no places that could be wrong.
+        made = cls(placement, Database.empty(placement.schema), nodes=nodes)
+        made._fill(placement, database, nodes, {place: places[place] for place in wanted}, found)
+        return made
+
+    @classmethod
+    def single(cls, placement, database):
+        """The case with a single node."""
+        check_placement(placement)
+        check_database(placement.schema, database)
+        places = _told_places(placement.places_by_pair(database))
+        return cls.of_places(placement, database, 1, {place: 0 for place in places})
+
+    @property
+    def placement(self):
+        """The placement."""
+        return self._placement
+
+    @property
+    def database(self):
+        """The database."""
+        return self._database
+
+    @property
+    def nodes(self):
+        """The number of nodes."""
+        return self._nodes
+
+    @property
+    def spreads(self):
+        """A dict from the pairs of a spread and integers to nodes."""
+        return _nodes_behind("by", self._places)
+
+    @property
+    def lone(self):
+        """A dict from the pairs (table, row) of lone rows to nodes."""
+        return _nodes_behind("any", self._places)
+
+    @property
+    def places(self):
+        """A dict from the places of all rows, without ("all",), to nodes."""
+        return {place: self._places[place] for place in self._places}
+
+    def nodes_of(self, table, row):
+        """The ascending tuple of the nodes where a row lies."""
+        if table not in self._placement.schema:
+            raise UnknownName(table)
+        if (table, row) not in self._database:
+            raise MissingRow(row)
+        return self._lies[table, row]
+
+    def rows_at(self, node):
+        """A dict from all tables to the ascending tuples of the rows that lie on a node."""
+        if not _is_below(node, self._nodes):
+            raise InvalidNumber(node)
+        return {table: tuple(self._rows[node][table]) for table in self._rows[node]}
+
+    def _numbers(self, query, rows):
+        return numbers_on(query.form, query.clauses, rows, MAX_MATCHES)
+
+    def _whole_numbers(self, query):
+        """The numbers of the global answer."""
+        return self._numbers(query, self._database.rows)
+
+    def _combined_numbers(self, query):
+        """The numbers of the combined answer, some of them perhaps 0."""
+        return _together(query.form, [self._numbers(query, rows) for rows in self._rows])
+
+    def __call__(self, query):
+        check_query(self._placement.schema, query)
+        found = self._combined_numbers(query)
+        return Answer(query.form, {head: found[head] for head in found if found[head] != 0})
+
+    def whole(self, query):
+        """The global answer."""
+        check_query(self._placement.schema, query)
+        return Answer(query.form, self._whole_numbers(query))
+
+    def local(self, query, node):
+        """The local answer of a node."""
+        check_query(self._placement.schema, query)
+        return Answer(query.form, self._numbers(query, self.rows_at(node)))
+
+    def difference(self, query):
+        """A dict from the heads with different numbers to the pairs of the combined and the global number."""
+        check_query(self._placement.schema, query)
+        whole = self._whole_numbers(query)
+        mine = self._combined_numbers(query)
+        told = {head: (mine.get(head, 0), whole.get(head, 0)) for head in sorted(set([*whole, *mine]))}
+        return {head: told[head] for head in told if told[head][0] != told[head][1]}
+
+    def is_right(self, query):
+        """Whether the combined answer is the global one."""
+        return not self.difference(query)
+
+    def with_nodes(self, nodes):
+        """The case with another number of nodes."""
+        if not is_number(nodes) or not self._least_nodes() <= nodes <= MAX_NODES:
+            raise InvalidNumber(nodes)
+        return Case.of_places(self._placement, self._database, nodes, self._places)
+
+    def _least_nodes(self):
+        """The least number of nodes that is greater than the node of each place."""
+        return max([0, *[self._places[place] for place in self._places]]) + 1
+
+    def __len__(self):
+        return len(self._database.pairs())
+
+    def __eq__(self, other):
+        return (isinstance(other, Case) and self._placement == other._placement and self._database == other._database
+                and self._nodes == other._nodes and self._places == other._places)
+
+    def __str__(self):
+        return f"case of {self._nodes} nodes, {len(self._database.pairs())} rows"
+
+
+def is_counterexample(placement, query, value):
+    """Whether the value is a case of an equal placement whose combined answer is not the global one."""
+    check_placement(placement)
+    check_query(placement.schema, query)
+    if not isinstance(value, Case) or value.placement != placement:
+        return False
+    try:
+        return not value.is_right(query)
+    except TooMany:
+        return False

@@ -1,0 +1,1 @@
+"""Patterns, small cases and what they decide."""
