@@ -15,7 +15,9 @@ BUILTINS = set(
 METHODS = set(
     "append clear copy count endswith extend find get index insert isalnum isalpha isdigit islower isspace isupper items"
     " join keys ljust lower lstrip partition pop remove replace reverse rfind rjust rpartition rsplit rstrip setdefault"
-    " split splitlines startswith strip update upper values zfill bit_length add discard".split())
+    " split splitlines startswith strip update upper values zfill bit_length add discard"
+    " title capitalize swapcase casefold center expandtabs removeprefix removesuffix rindex isascii isdecimal isnumeric"
+    " istitle isidentifier isprintable".split())
 BARRED = set(
     "register mro elements open input law version_info with_traceback add_note attrgetter breakpoint builtins compile"
     " copyright credits delattr dir eval exec exit gc globals help id importlib license locals methodcaller os quit"

@@ -5,7 +5,6 @@ and take the limit of matches from their callers.
 """
 
 from dealtrows.ask.terms import is_variable
-from dealtrows.errors import TooMany
 
 
 def value_of(term, match):
@@ -23,55 +22,21 @@ def pairs_of(clause, match):
     return tuple(sorted(set([(table, values_of(terms, match)) for table, terms in clause.parts])))
 
 
-def _extended(terms, row, known):
-    """The known integers and those that a row gives to these terms, or None if it does not fit."""
-    found = dict(known)
-    for term, number in zip(terms, row):
-        if not is_variable(term):
-            if term != number:
-                return None
-        elif found.setdefault(term, number) != number:
-            return None
-    return found
-
-
-def _may_hold(test, known):
-    """Whether a test holds, or has a variable without an integer so far."""
-    one, word, other = test
-    if is_variable(one) and one not in known or is_variable(other) and other not in known:
-        return True
-    return (value_of(one, known) == value_of(other, known)) == (word == "=")
-
-
-def _joined(clause, at, rows, known, most):
-    """At most so many open matches with these integers, which the parts before this index fit."""
-    if at == len(clause.parts):
-        return [known]
-    table, terms = clause.parts[at]
-    found = []
-    for row in rows.get(table, ()):
-        more = _extended(terms, row, known)
-        if more is not None and all([_may_hold(test, more) for test in clause.tests]):
-            found.extend(_joined(clause, at + 1, rows, more, most - len(found)))
-        # Rows can have millions of open matches; those beyond the limit are not looked for.
-        if len(found) >= most:
-            break
-    return found
-
-
 def open_list(clause, rows, limit):
     """The list of the open matches in some rows, ascending by their integers."""
-    found = _joined(clause, 0, rows, {}, limit + 1)
-    if len(found) > limit:
-        raise TooMany(limit)
-    integers = sorted([values_of(clause.variables, match) for match in found])
-    return [dict(zip(clause.variables, values)) for values in integers]
+    return clause.search_all().listed(rows, limit)
+
+
+def check_many(clause, rows, limit):
+    """Refuse a clause with more open matches in some rows than the limit."""
+    clause.search_told().weighed(rows, limit)
 
 
 def is_open(clause, rows, match):
     """Whether a dict from the variables to integers is an open match."""
     there = [values_of(terms, match) in rows.get(table, ()) for table, terms in clause.parts]
-    return all(there) and all([_may_hold(test, match) for test in clause.tests])
+    return all(there) and all([(value_of(one, match) == value_of(other, match)) == (word == "=")
+                               for one, word, other in clause.tests])
 
 
 def _is_blocking(terms, row, match):
@@ -87,9 +52,33 @@ def blockers(clause, rows, match):
     return tuple(sorted(set(found)))
 
 
+class Stops:
+    """The absences of a clause, and which integers in their tied columns have rows."""
+
+    def __init__(self, clause, rows):
+        self._ties = []
+        for (table, _), tied in zip(clause.absences, clause.tied()):
+            there = {tuple([row[at] for at, _ in tied]): True for row in rows.get(table, ())}
+            # An absence without rows stops nothing.
+            if there:
+                self._ties.append(([term for _, term in tied], there))
+
+    def _is_stopped(self, match):
+        """Whether some absence becomes a row."""
+        return any([values_of(terms, match) in there for terms, there in self._ties])
+
+    def left_of(self, found):
+        """The list of those of some matches that no absence rules out."""
+        return [match for match in found if not self._is_stopped(match)] if self._ties else found
+
+    def left_of_pairs(self, found):
+        """The list of those pairs whose first values no absence rules out."""
+        return [pair for pair in found if not self._is_stopped(pair[0])] if self._ties else found
+
+
 def match_list(clause, rows, limit):
     """The list of the matches in some rows, ascending by their integers."""
-    return [match for match in open_list(clause, rows, limit) if not blockers(clause, rows, match)]
+    return Stops(clause, rows).left_of(open_list(clause, rows, limit))
 
 
 def number_of(form, clause, match):
@@ -101,8 +90,13 @@ def numbers_on(form, clauses, rows, limit):
     """The numbers of the answer of some clauses on some rows."""
     found = {}
     for clause in clauses:
-        for match in match_list(clause, rows, limit):
-            head = values_of(clause.head, match)
-            more = number_of(form, clause, match)
-            found[head] = 1 if form == "distinct" else found.get(head, 0) + more
+        stops = Stops(clause, rows)
+        names, summed = clause.head, clause.summed
+        told = clause.search_told().weighed(rows, limit)
+        for known, many in stops.left_of_pairs(told):
+            head = tuple([known[name] for name in names])
+            if form == "distinct":
+                found[head] = 1
+            else:
+                found[head] = found.get(head, 0) + (many if summed is None else many * value_of(summed, known))
     return {head: found[head] for head in found if found[head] != 0}

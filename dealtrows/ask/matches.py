@@ -1,8 +1,8 @@
 """The matches of queries in rows, which need not be a database."""
 
-from dealtrows.ask.joins import blockers, is_open, match_list, numbers_on, open_list, pairs_of, values_of
+from dealtrows.ask.joins import blockers, check_many, is_open, match_list, numbers_on, open_list, pairs_of, values_of
 from dealtrows.ask.queries import Query
-from dealtrows.base.answers import Answer
+from dealtrows.base.answers import checked_answer
 from dealtrows.base.databases import MAX_ROWS, is_rows, many_rows
 from dealtrows.base.names import are_integers, is_integer, is_number
 from dealtrows.errors import InvalidNumber, InvalidOperation, InvalidQuery, InvalidRow
@@ -61,7 +61,7 @@ def is_match(query, index, rows, value):
     clause = _clause_at(query, index)
     check_rows(query, rows)
     # The limit of open matches holds for every value.
-    open_list(clause, rows, MAX_MATCHES)
+    check_many(clause, rows, MAX_MATCHES)
     return is_assignment(clause, value) and is_open(clause, rows, value) and not blockers(clause, rows, value)
 
 
@@ -86,8 +86,15 @@ def blocking_rows(query, index, rows, match):
     _check_assignment(clause, match)
     if not is_open(clause, rows, match):
         raise InvalidOperation("this is no open match in the rows")
-    open_list(clause, rows, MAX_MATCHES)
+    check_many(clause, rows, MAX_MATCHES)
     return blockers(clause, rows, match)
+
+
+def _with_head(clause, found, head):
+    """The list of those of some matches of a clause that have this head."""
+    for name, number in zip(clause.head, head):
+        found = [match for match in found if match[name] == number]
+    return found
 
 
 def witnesses(query, rows, head):
@@ -99,13 +106,12 @@ def witnesses(query, rows, head):
     # All clauses are matched before the first result, so that too many matches are told at once.
     found = [match_list(clause, rows, MAX_MATCHES) for clause in query.clauses]
     for index, clause in enumerate(query.clauses):
-        for match in found[index]:
-            if values_of(clause.head, match) == head:
-                yield (index, match)
+        for match in _with_head(clause, found[index], head):
+            yield (index, match)
 
 
 def answer_on(query, rows):
     """The answer of a query on some rows."""
     _check_query(query)
     check_rows(query, rows)
-    return Answer(query.form, numbers_on(query.form, query.clauses, rows, MAX_MATCHES))
+    return checked_answer(query.form, numbers_on(query.form, query.clauses, rows, MAX_MATCHES))

@@ -2,10 +2,11 @@
 
 from dealtrows.ask.absences import keep_rules
 from dealtrows.ask.joins import numbers_on
+from dealtrows.ask.search import Search
 from dealtrows.ask.terms import integers_in, is_part, is_term, is_test, is_variable
 from dealtrows.ask.terms import renamed_parts, renamed_term, renamed_terms, renamed_tests
 from dealtrows.ask.terms import terms_of_parts, terms_of_tests, variables_in
-from dealtrows.base.answers import Answer
+from dealtrows.base.answers import checked_answer
 from dealtrows.base.databases import Database
 from dealtrows.base.names import are_names, is_name, is_number
 from dealtrows.base.schemas import check_schema
@@ -74,6 +75,9 @@ class Clause:
         self._summed = summed
         self._variables = variables
         self._free = variables_in(_free_terms(terms_of_parts(absences), variables))
+        # Searches for matches are made when they are first needed, once for each clause.
+        self._all = None
+        self._told = None
 
     @property
     def parts(self):
@@ -109,6 +113,25 @@ class Clause:
     def free(self):
         """The ascending tuple of the names of the free variables."""
         return self._free
+
+    def tied(self):
+        """For each absence the pairs of the index of a tied column and its term."""
+        return [[(at, term) for at, term in enumerate(terms) if not is_variable(term) or term in self._variables]
+                for _, terms in self._absences]
+
+    def search_all(self):
+        """The search that tells all variables."""
+        if self._all is None:
+            self._all = Search(self)
+        return self._all
+
+    def search_told(self):
+        """The search that tells at least the variables of the head, the summed term and the absences."""
+        if self._told is None:
+            summed = () if self._summed is None else (self._summed,)
+            terms = [term for tied in self.tied() for _, term in tied]
+            self._told = Search(self, variables_in([*self._head, *summed, *terms]))
+        return self._told
 
     def with_head(self, head):
         """The clause with another head."""
@@ -236,7 +259,7 @@ class Query:
     def __call__(self, database):
         if not isinstance(database, Database) or database.schema != self._schema:
             raise InvalidDatabase("this is no database of an equal schema")
-        return Answer(self._form, numbers_on(self._form, self._clauses, database.rows, _MATCH_LIMIT))
+        return checked_answer(self._form, numbers_on(self._form, self._clauses, database.rows, _MATCH_LIMIT))
 
     def only(self, index):
         """The query of the clause with this index."""

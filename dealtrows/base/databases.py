@@ -1,7 +1,7 @@
 """Databases: rows that keep the keys and the references of a schema."""
 
 from dealtrows.base.names import is_name
-from dealtrows.base.schemas import check_schema, picked
+from dealtrows.base.schemas import check_schema
 from dealtrows.errors import BrokenConstraint, InvalidDatabase, InvalidOperation, InvalidRow
 from dealtrows.errors import MissingRow, TooMany, UnknownName
 
@@ -35,8 +35,12 @@ def is_pair(schema, value):
 
 def _values_in(schema, rows, table, columns):
     """For each row of a table its integers in these columns."""
+    there = rows.get(table, ())
+    if not there:
+        return []
     named = schema.columns_of(table)
-    return [picked(named, row, columns) for row in rows.get(table, ())]
+    places = [named.index(column) for column in columns]
+    return [tuple([row[at] for at in places]) for row in there]
 
 
 def _first_broken_key(schema, rows):
@@ -47,11 +51,11 @@ def _first_broken_key(schema, rows):
     return None
 
 
-def _is_broken(schema, rows, reference):
-    """Whether some row has no parent by a reference."""
+def _parents_by(schema, rows, reference):
+    """For each row of the table of a reference its parent, None for a row without one."""
     table, columns, parent, key = reference
-    there = {values: True for values in _values_in(schema, rows, parent, key)}
-    return not all([wanted in there for wanted in _values_in(schema, rows, table, columns)])
+    by_key = dict(zip(_values_in(schema, rows, parent, key), rows.get(parent, ())))
+    return [by_key.get(values) for values in _values_in(schema, rows, table, columns)]
 
 
 def first_broken(schema, rows):
@@ -63,21 +67,23 @@ def first_broken(schema, rows):
         return broken_key
     references = schema.references
     for name in references:
-        if _is_broken(schema, rows, references[name]):
+        if None in _parents_by(schema, rows, references[name]):
             return ("reference", name)
     return None
 
 
 def _parents_in(schema, rows):
     """The parent pair of each row by each reference, by the name of the reference and the row."""
-    parents = {}
+    found = {}
     references = schema.references
     for name in references:
-        table, columns, parent, key = references[name]
-        by_key = dict(zip(_values_in(schema, rows, parent, key), rows[parent]))
-        for row, values in zip(rows[table], _values_in(schema, rows, table, columns)):
-            parents[name, row] = (parent, by_key[values])
-    return parents
+        table, _, parent, _ = references[name]
+        parents = _parents_by(schema, rows, references[name])
+        if None in parents:
+            raise BrokenConstraint(("reference", name))
+        for row, above in zip(rows.get(table, ()), parents):
+            found[name, row] = (parent, above)
+    return found
 
 
 def _rows_of(pairs):
@@ -97,13 +103,13 @@ class Database:
             raise InvalidDatabase("these are no rows of the schema")
         if many_rows(given) > MAX_ROWS:
             raise TooMany(MAX_ROWS)
-        broken = first_broken(schema, given)
-        if broken is not None:
-            raise BrokenConstraint(broken)
+        broken_key = _first_broken_key(schema, given)
+        if broken_key is not None:
+            raise BrokenConstraint(broken_key)
+        self._parents = _parents_in(schema, given)
         self._schema = schema
         self._rows = {table: tuple(sorted(given.get(table, ()))) for table in schema.tables}
         self._pairs = tuple([(table, row) for table in self._rows for row in self._rows[table]])
-        self._parents = _parents_in(schema, self._rows)
 
     @classmethod
     def empty(cls, schema):

@@ -8,9 +8,9 @@ _INTEGER_BOUND = 10 ** 60
 
 def is_name(value):
     """Whether the value is a name: one to eight letters from a to z."""
-    if not isinstance(value, str) or not 1 <= len(value) <= _LETTERS:
+    if not isinstance(value, str) or len(value) > _LETTERS:
         return False
-    return all(["a" <= letter <= "z" for letter in value])
+    return value.isascii() and value.isalpha() and value.islower()
 
 
 def is_number(value):
@@ -26,7 +26,13 @@ def is_integer(value):
 
 def are_integers(value):
     """Whether the value is a tuple of integers, perhaps without any."""
-    return isinstance(value, tuple) and all([is_integer(number) for number in value])
+    if not isinstance(value, tuple):
+        return False
+    # Many rows and heads are checked, so this says once more what an integer is.
+    for number in value:
+        if not isinstance(number, int) or isinstance(number, bool) or not -_INTEGER_BOUND < number < _INTEGER_BOUND:
+            return False
+    return True
 
 
 def is_row(value):

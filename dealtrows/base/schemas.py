@@ -1,6 +1,6 @@
 """Schemas: tables with columns, keys and references."""
 
-from dealtrows.base.names import are_names, is_ascending, is_integer, is_name
+from dealtrows.base.names import are_integers, are_names, is_ascending, is_name
 from dealtrows.errors import InvalidOperation, InvalidSchema, UnknownName
 
 MAX_TABLES = 5
@@ -132,9 +132,7 @@ class Schema:
     def is_row_of(self, table, value):
         """Whether the value is a row of a table."""
         self._check_table(table)
-        if not isinstance(value, tuple) or len(value) != len(self._tables[table]):
-            return False
-        return all([is_integer(number) for number in value])
+        return are_integers(value) and len(value) == len(self._tables[table])
 
     def leads_to(self, table, other):
         """Whether a way along one or more references leads from the first table to the other one."""
@@ -162,7 +160,7 @@ class Schema:
         return Schema(self._tables, keys=self._keys, references=left)
 
     def __contains__(self, x):
-        return is_name(x) and x in self._tables
+        return isinstance(x, str) and x in self._tables
 
     def __len__(self):
         return len(self._tables)

@@ -3,7 +3,7 @@
 from dealtrows.ask.joins import numbers_on
 from dealtrows.ask.matches import MAX_MATCHES
 from dealtrows.ask.queries import Query
-from dealtrows.base.answers import Answer
+from dealtrows.base.answers import checked_answer
 from dealtrows.base.databases import Database
 from dealtrows.base.names import is_number, is_plain
 from dealtrows.deal.placements import ALL, FIRST, check_database, check_placement
@@ -181,17 +181,17 @@ class Case:
     def __call__(self, query):
         check_query(self._placement.schema, query)
         found = self._combined_numbers(query)
-        return Answer(query.form, {head: found[head] for head in found if found[head] != 0})
+        return checked_answer(query.form, {head: found[head] for head in found if found[head] != 0})
 
     def whole(self, query):
         """The global answer."""
         check_query(self._placement.schema, query)
-        return Answer(query.form, self._whole_numbers(query))
+        return checked_answer(query.form, self._whole_numbers(query))
 
     def local(self, query, node):
         """The local answer of a node."""
         check_query(self._placement.schema, query)
-        return Answer(query.form, self._numbers(query, self.rows_at(node)))
+        return checked_answer(query.form, self._numbers(query, self.rows_at(node)))
 
     def difference(self, query):
         """A dict from the heads with different numbers to the pairs of the combined and the global number."""

@@ -98,7 +98,7 @@ class Plan:
             many = many * len(self._sets_of(at, nodes))
         return many
 
-    def many(self):
+    def many_choices(self):
         """How many choices there are, also those that break keys."""
         if self.is_apart():
             return 1

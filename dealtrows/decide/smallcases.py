@@ -54,7 +54,7 @@ def plans_of(placement, query):
     found = [Plan(placement, query, pattern) for pattern in patterns(query)]
     if any([len(plan.all_places()) > MAX_PLACES for plan in found]):
         raise TooMany(MAX_PLACES)
-    if sum([plan.many() for plan in found]) > MAX_CASES:
+    if sum([plan.many_choices() for plan in found]) > MAX_CASES:
         raise TooMany(MAX_CASES)
     return found
 
