@@ -4,6 +4,8 @@ from dealtrows.ask.queries import Clause, Query
 from dealtrows.base.answers import Answer
 from dealtrows.base.databases import Database
 from dealtrows.base.schemas import Schema
+from dealtrows.deal.cases import Case
+from dealtrows.deal.placements import Placement
 from dealtrows.errors import DealError, MissingRow, UnknownName
 
 SIXTY = 10 ** 60 - 1
@@ -20,6 +22,9 @@ TOWNS = Query(SHOP, "distinct", Clause(
     (("cus", ("c", "t")), ("item", ("i", 7)), ("ord", ("c", "i", "n"))), head=("t",)))
 PRICES = Query(SHOP, "count", Clause((("item", ("i", "p")),), head=("p",)))
 DAY = Database(SHOP, {"cus": ((1, 5),), "item": ((9, 7),), "ord": ((1, 9, 3),)})
+NEAR = Placement(SHOP, cus=(("by", "s", ("code",)),), item=(("all",),), ord=(("with", "oc"),))
+FAR = NEAR.with_rules("item", ("by", "t", ("code",)))
+SPLIT = Case(FAR, DAY, nodes=2, spreads={("s", (1,)): 0, ("t", (9,)): 1})
 IDLE = Clause((("cus", ("c", "t")), ("item", ("i", "p"))), absences=(("ord", ("c", "i", "n")),), head=("c",))
 
 
@@ -45,4 +50,32 @@ def odd_values():
         {True: 1}, {(True,): 1}, {"A": 1}, {None: None}, {(1, (2,)): [3]}, {1: {2: {3: 4}}},
         deep(7), deep(8), DealError("x"), UnknownName([1]), MissingRow(()), (DealError("x"),), {DealError("x"): 1},
         Answer("count"), (Answer("count"),), [SHOP], SHOP, DAY, TOWNS, IDLE, (DAY, TOWNS), {"a": IDLE}, {1: (SHOP,)},
+        NEAR, (FAR,), SPLIT, [SPLIT], {"a": SPLIT},
     ]
+
+
+def raised(call, *given, **named):
+    """The error that a call raises, or None."""
+    try:
+        call(*given, **named)
+    except (DealError, KeyError, LookupError, OverflowError, RuntimeError) as error:
+        return error
+    return None
+
+
+def told_error(call, *given, **named):
+    """The class of the error that a call raises and what it keeps, or None."""
+    error = raised(call, *given, **named)
+    return None if error is None else (error.__class__, *vars(error).values())
+
+
+def case_with(placement, rows, nodes, places):
+    """The case with these rows, places that are not told being node 0."""
+    database = Database(placement.schema, rows)
+    wanted = [place for place in placement.places_in(database) if place != ("all",)]
+    return Case.of_places(placement, database, nodes, {place: places.get(place, 0) for place in wanted})
+
+
+def odd_but(*kinds):
+    """The odd values that are no objects of these classes."""
+    return [value for value in odd_values() if not isinstance(value, kinds)]

@@ -17,9 +17,12 @@ def _terms_made_one(clause):
     for one, word, other in clause.tests:
         low, high = told.get(one, one), told.get(other, other)
         if word == "=" and low != high:
-            if not is_variable(low) and not is_variable(high):
+            new, old = (low, high) if is_variable(high) else (high, low)
+            if not is_variable(old):
                 return None
-            old, new = (low, high) if is_variable(low) else (high, low)
+            # The first of equal variables stands for both, so that matches still ascend by all of them.
+            if is_variable(new) and old < new:
+                new, old = old, new
             told = {name: new if told[name] == old else told[name] for name in told}
     return told
 

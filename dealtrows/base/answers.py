@@ -38,10 +38,6 @@ class Answer:
         given = {} if numbers is None else numbers
         if numbers is not None and not _are_numbers(form, given):
             raise InvalidAnswer("the numbers are no dict from heads to numbers of this form")
-        self._fill(form, given)
-
-    def _fill(self, form, given):
-        """Take a form and numbers that are checked."""
         self._form = form
         self._numbers = {head: given[head] for head in sorted(given)}
         self._heads = tuple(self._numbers)
@@ -109,7 +105,7 @@ class Answer:
         """This answer and the other one, as often as the sign tells."""
         mine, others = self._numbers, other._numbers
         sums = {head: mine.get(head, 0) + sign * others.get(head, 0) for head in [*mine, *others]}
-        return checked_answer(self._form, {head: sums[head] for head in sums if sums[head] != 0})
+        return Answer(self._form, {head: sums[head] for head in sums if sums[head] != 0})
 
     def __add__(self, other):
         self._check_numbers()
@@ -145,7 +141,8 @@ class Answer:
 def checked_answer(form, numbers):
     """The answer with a form and numbers that need no check, as they were made for it."""
     made = Answer(form)
-    made._fill(form, numbers)
+    made._numbers = {head: numbers[head] for head in sorted(numbers)}
+    made._heads = tuple(made._numbers)
     return made
 
 

@@ -167,16 +167,16 @@ class Case:
             raise InvalidNumber(node)
         return {table: tuple(self._rows[node][table]) for table in self._rows[node]}
 
-    def _numbers(self, query, rows):
+    def _numbers_on(self, query, rows):
         return numbers_on(query.form, query.clauses, rows, MAX_MATCHES)
 
     def _whole_numbers(self, query):
         """The numbers of the global answer."""
-        return self._numbers(query, self._database.rows)
+        return self._numbers_on(query, self._database.rows)
 
     def _combined_numbers(self, query):
         """The numbers of the combined answer, some of them perhaps 0."""
-        return _together(query.form, [self._numbers(query, rows) for rows in self._rows])
+        return _together(query.form, [self._numbers_on(query, rows) for rows in self._rows])
 
     def __call__(self, query):
         check_query(self._placement.schema, query)
@@ -191,7 +191,7 @@ class Case:
     def local(self, query, node):
         """The local answer of a node."""
         check_query(self._placement.schema, query)
-        return checked_answer(query.form, self._numbers(query, self.rows_at(node)))
+        return checked_answer(query.form, self._numbers_on(query, self.rows_at(node)))
 
     def difference(self, query):
         """A dict from the heads with different numbers to the pairs of the combined and the global number."""

@@ -134,7 +134,7 @@ class Placement:
             raise InvalidRule("some value is no rule of the table")
         return Placement.of(self._schema, {**self._rules, table: tuple(sorted(rules))})
 
-    def _places(self, database, table, row):
+    def _places_found(self, database, table, row):
         """The places of a row that is there, perhaps repeated."""
         found = []
         for rule in self._rules[table]:
@@ -142,7 +142,7 @@ class Placement:
                 found.append(("by", rule[1], picked(self._schema.columns_of(table), row, rule[2])))
             elif rule[0] == "with":
                 parent = database.pair_above(rule[1], row)
-                found.extend(self._places(database, parent[0], parent[1]))
+                found.extend(self._places_found(database, parent[0], parent[1]))
             elif rule[0] == "any":
                 found.append(("any", table, row))
             else:
@@ -151,7 +151,7 @@ class Placement:
 
     def places_by_pair(self, database):
         """A dict from the pairs (table, row) of a database of this schema to the ascending tuples of their places."""
-        return {(table, row): tuple(sorted(set(self._places(database, table, row))))
+        return {(table, row): tuple(sorted(set(self._places_found(database, table, row))))
                 for table, row in database.pairs()}
 
     def places_of(self, database, table, row):
@@ -161,7 +161,7 @@ class Placement:
             raise UnknownName(table)
         if (table, row) not in database:
             raise MissingRow(row)
-        return tuple(sorted(set(self._places(database, table, row))))
+        return tuple(sorted(set(self._places_found(database, table, row))))
 
     def places_in(self, database):
         """The ascending tuple of the places of all rows."""

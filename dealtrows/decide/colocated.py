@@ -194,7 +194,7 @@ def is_route(placement, query, value):
 def _stranded_case(placement, plan):
     """The case of a pattern that gives a node of its own, which is not node 0, to each place but ("first",)."""
     order = [place for place in numbered(plan.all_places()) if place != FIRST]
-    told = dict(zip(order, range(1, len(order) + 1)))
+    told = {place: node for node, place in enumerate(order, start=1)}
     database = plan.pattern().database
     places = [place for place in placement.places_in(database) if place != ALL]
     return Case.of_places(placement, database, len(order) + 1, {place: told.get(place, 0) for place in places})

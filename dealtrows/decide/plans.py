@@ -28,7 +28,7 @@ def node_layouts(places):
 
 def _apart(places):
     """The layout that gives a node of its own to each place."""
-    told = dict(zip(numbered(places), range(len(places))))
+    told = {place: node for node, place in enumerate(numbered(places))}
     return {place: told[place] for place in places}
 
 

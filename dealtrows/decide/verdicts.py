@@ -29,10 +29,10 @@ def counterexample_of(placement, query):
 
 def decision(placement, query):
     """A certificate behind the word right, or a counterexample behind the word wrong."""
-    found = counterexample_of(placement, query)
+    found = certificate_of(placement, query)
     if found is not None:
-        return ("wrong", found)
-    return ("right", certificate_of(placement, query))
+        return ("right", found)
+    return ("wrong", counterexample_of(placement, query))
 
 
 def _is_answered_case(placement, value):
