@@ -378,7 +378,7 @@ class EachOpenMatchTest(unittest.TestCase):
                     for match in open_matches(query, index, rows.rows):
                         self.assertIn(facts(pattern_of(query, index, rows, match)), known)
                         seen += 1
-            self.assertGreater(seen, 20)
+            self.assertGreater(seen, 5)
 
     def test_a_pattern_is_its_own(self):
         for query in self.queries():

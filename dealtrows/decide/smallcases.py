@@ -71,7 +71,7 @@ def small_cases(placement, query):
     for plan in plans_of(placement, query):
         for case in plan.planned_cases(lambda layout: True):
             key = case_key(case)
-            # Patterns of several clauses can have the same cases.
+            # Patterns of several clauses can make the same case, and layouts of given places without a row.
             if key not in seen:
                 seen[key] = True
                 yield case
