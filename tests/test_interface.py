@@ -20,6 +20,24 @@ INTERFACE = {
                               "is_match(query, index, rows, value)", "match_head(query, index, match)",
                               "match_rows(query, index, match)", "blocking_rows(query, index, rows, match)",
                               "witnesses(query, rows, head)", "answer_on(query, rows)"),
+    "dealtrows.deal.placements": ("Placement(schema, **rules)",),
+    "dealtrows.deal.cases": ("Case(placement, database, *, nodes, spreads=None, lone=None)",
+                             "is_counterexample(placement, query, value)"),
+    "dealtrows.decide.patterns": ("Pattern", "patterns(query)", "pattern_of(query, clause, database, match)",
+                                  "is_pattern(query, value)"),
+    "dealtrows.decide.smallcases": ("ties(placement, query, rows)", "layouts(places)", "small_cases(placement, query)",
+                                    "is_small_case(placement, query, value)"),
+    "dealtrows.decide.verdicts": ("certificate_of(placement, query)", "counterexample_of(placement, query)",
+                                  "decision(placement, query)", "is_certificate(placement, query, value)",
+                                  "is_decision(placement, query, value)", "is_right_for(placement, query)",
+                                  "right_parts(placement, query)", "faults(case, query)", "Verdict(placement, query)"),
+    "dealtrows.decide.colocated": ("co_location(placement, query, pattern)",
+                                   "is_co_location(placement, query, pattern, value)", "co_locations(placement, query)",
+                                   "is_co_location_table(placement, query, value)", "routes(placement, query)",
+                                   "is_route(placement, query, value)", "stranded(placement, query, route)",
+                                   "asked(case, route)"),
+    "dealtrows.decide.tight": ("subcase(case, *pairs)", "is_subcase(case, value)", "is_tight(query, value)",
+                               "tightened(query, case)", "small_case_of(query, case)"),
 }
 CONSTANTS = {
     "dealtrows.base.schemas": {"MAX_TABLES": 5, "MAX_COLUMNS": 4, "MAX_KEYS": 2, "MAX_REFERENCES": 4},
@@ -27,6 +45,12 @@ CONSTANTS = {
     "dealtrows.ask.queries": {"MAX_PARTS": 3, "MAX_TESTS": 4, "MAX_ABSENCES": 2, "MAX_HEAD": 3, "MAX_CLAUSES": 3,
                               "MAX_NAMED": 4},
     "dealtrows.ask.matches": {"MAX_MATCHES": 2000},
+    "dealtrows.deal.placements": {"MAX_RULES": 2},
+    "dealtrows.deal.cases": {"MAX_NODES": 9},
+    "dealtrows.decide.patterns": {"MAX_SYMBOLS": 7, "MAX_CLOSURE": 8},
+    "dealtrows.decide.smallcases": {"MAX_PLACES": 6, "MAX_CASES": 2000},
+    "dealtrows.decide.colocated": {"MAX_ROUTE_PLACES": 10},
+    "dealtrows.decide.tight": {"MAX_BLOCKING": 8},
 }
 PROPERTY, METHOD, CLASS_METHOD, STATIC = "property", "method", "classmethod", "static"
 MEMBERS = {
@@ -52,6 +76,23 @@ MEMBERS = {
         PROPERTY: ("schema", "form", "clauses", "integers", "width"), CLASS_METHOD: ("of(schema, form, clauses)",),
         STATIC: ("is_form(value)",), METHOD: ("only(index)",),
         "own": ("call", "add", "len", "iter", "contains", "eq", "str")},
+    ("dealtrows.deal.placements", "Placement"): {
+        PROPERTY: ("schema", "rules", "spreads"), CLASS_METHOD: ("of(schema, rules)",),
+        STATIC: ("is_rule(schema, table, value)",),
+        METHOD: ("with_rules(table, *rules)", "places_of(database, table, row)", "places_in(database)",
+                 "common_places(database, *pairs)", "is_within(other)"),
+        "own": ("getitem", "iter", "len", "eq", "str")},
+    ("dealtrows.deal.cases", "Case"): {
+        PROPERTY: ("placement", "database", "nodes", "spreads", "lone", "places"), STATIC: (),
+        CLASS_METHOD: ("of_places(placement, database, nodes, places)", "single(placement, database)"),
+        METHOD: ("nodes_of(table, row)", "rows_at(node)", "whole(query)", "local(query, node)", "difference(query)",
+                 "is_right(query)", "with_nodes(nodes)"),
+        "own": ("call", "len", "eq", "str")},
+    ("dealtrows.decide.patterns", "Pattern"): {
+        PROPERTY: ("clause", "match", "database", "fresh"), METHOD: (), CLASS_METHOD: (), STATIC: (), "own": ("eq", "str")},
+    ("dealtrows.decide.verdicts", "Verdict"): {
+        PROPERTY: ("placement", "query", "certificate", "counterexample", "kinds"), METHOD: ("is_right()",),
+        CLASS_METHOD: (), STATIC: (), "own": ("bool", "len", "contains", "eq", "str")},
 }
 
 
@@ -73,9 +114,12 @@ class InterfaceTest(unittest.TestCase):
                 self.assertEqual(getattr(module, name), value)
 
     def test_generators(self):
-        module = importlib.import_module("dealtrows.ask.matches")
-        for name in ("matches", "open_matches", "witnesses"):
-            self.assertTrue(inspect.isgeneratorfunction(getattr(module, name)), name)
+        for module_name, names in (("dealtrows.ask.matches", ("matches", "open_matches", "witnesses")),
+                                   ("dealtrows.decide.patterns", ("patterns",)),
+                                   ("dealtrows.decide.smallcases", ("layouts", "small_cases"))):
+            module = importlib.import_module(module_name)
+            for name in names:
+                self.assertTrue(inspect.isgeneratorfunction(getattr(module, name)), name)
 
     def test_members(self):
         for (module_name, class_name), kinds in MEMBERS.items():
