@@ -390,6 +390,102 @@ class LimitTest(unittest.TestCase):
         self.assertEqual(answer_on(Query(FREE, "count", joined), rows)[()], 100)
 
 
+class ManyMatchesTest(unittest.TestCase):
+    """How many open matches there are is told alike, whether they are listed or only counted."""
+
+    NODES = Schema({"e": ("a", "b"), "n": ("a",)})
+    EDGES = (("e", ("x", "y")), ("e", ("z", "w")), ("e", ("u", "v")))
+
+    def check(self, clause, rows, many, **known):
+        """Check all functions where a clause has so many open matches, None for more than 2000, in one of them these."""
+        query = Query(self.NODES, "count", clause)
+        some = {name: known.get(name, 4) for name in clause.variables}
+        calls = (lambda: len(list(matches(query, 0, rows))), lambda: len(list(open_matches(query, 0, rows))),
+                 lambda: sum(number for _, number in answer_on(query, rows).pairs()), lambda: is_match(query, 0, rows, some),
+                 lambda: blocking_rows(query, 0, rows, some), lambda: list(witnesses(query, rows, (4,) * query.width)))
+        for call in calls:
+            if many is None:
+                with self.assertRaises(TooMany) as caught:
+                    call()
+                self.assertEqual(caught.exception.limit, 2000)
+        if many is not None:
+            opened = list(open_matches(query, 0, rows))
+            integers = [tuple(match.values()) for match in opened]
+            self.assertEqual([list(match) for match in opened], [list(clause.variables)] * many)
+            self.assertEqual(integers, sorted(set(integers)))
+            self.assertEqual(list(matches(query, 0, rows)), opened)
+            self.assertEqual([call() for call in calls[:3]], [many] * 3)
+            told = [(0, match) for match in opened if all(match[name] == 4 for name in clause.head)]
+            self.assertEqual(calls[5](), told)
+
+    def edges(self, many):
+        return {"e": tuple([(at, 4) for at in range(many)])}
+
+    def test_three_parts(self):
+        for head in ((), ("x",), ("w", "z", "x")):
+            clause = Clause(self.EDGES, head=head)
+            self.check(clause, self.edges(12), 1728)
+            self.check(clause, self.edges(13), None)
+        query = Query(self.NODES, "count", Clause(self.EDGES, head=("x",)))
+        self.assertEqual(answer_on(query, self.edges(12)), Answer("count", {(at,): 144 for at in range(12)}))
+
+    def test_exactly_2000(self):
+        parts = (("e", ("x", "y")), ("n", ("z",)), ("n", ("w",)))
+        rows = {**self.edges(20), "n": tuple([(at,) for at in range(10)])}
+        self.check(Clause(parts), rows, 2000)
+        self.check(Clause(parts, head=("z",)), rows, 2000)
+        self.check(Clause(parts), {**rows, "e": (*rows["e"], (50, 4))}, None)
+
+    def test_2001(self):
+        # 29 * 69 = 2001; the last of the rows of n is another one.
+        parts = (("e", ("x", "y")), ("n", ("z",)))
+        rows = {**self.edges(29), "n": tuple([(at,) for at in range(69)])}
+        self.check(Clause(parts), rows, None)
+        self.check(Clause(parts, tests=(("z", "!=", 68),)), rows, 29 * 68)
+        self.check(Clause(parts, tests=(("z", "=", 8),), head=("y", "z")), rows, 29)
+
+    def test_parts_that_share_variables(self):
+        # Rows with the same second column match one another: 44 * 44 + 8 * 8 = 2000.
+        parts = (("e", ("x", "y")), ("e", ("z", "y")))
+        rows = {"e": (*[(at, 4) for at in range(44)], *[(at, 5) for at in range(8)])}
+        self.check(Clause(parts), rows, 2000)
+        self.check(Clause(parts, head=("z",)), rows, 2000)
+        self.check(Clause(parts), {"e": (*rows["e"], (0, 6))}, None)
+        apart = (("e", ("x", "y")), ("e", ("z", "a")))
+        self.check(Clause(apart, tests=(("a", "=", "y"),), head=("a",)), rows, 2000)
+        self.check(Clause(apart, tests=(("y", "=", "a"),)), {"e": (*rows["e"], (0, 6))}, None)
+
+    def test_tests_between_parts(self):
+        # 45 * 45 - 25 = 2000 pairs of rows with different first columns, five of which are there five times.
+        parts = (("e", ("x", "y")), ("n", ("z",)))
+        rows = {**self.edges(45), "n": tuple([(at,) for at in range(20, 65)])}
+        self.check(Clause(parts, tests=(("x", "!=", "z"),)), rows, 2000)
+        self.check(Clause(parts, tests=(("z", "!=", "x"),), head=("x", "z")), rows, 2000)
+        rows = {**self.edges(45), "n": tuple([(at,) for at in range(21, 66)])}
+        self.check(Clause(parts, tests=(("x", "!=", "z"),)), rows, None, z=30)
+
+    def test_millions(self):
+        rows = self.edges(100)
+        self.check(Clause(self.EDGES), rows, None)
+        self.check(Clause(self.EDGES, tests=(("x", "!=", "u"),)), rows, None, u=5)
+        self.check(Clause(self.EDGES, tests=(("x", "=", "u"), ("u", "=", "z"))), rows, 100)
+        self.check(Clause(self.EDGES, tests=(("y", "!=", "v"),)), rows, 0)
+
+    def test_what_is_returned_is_not_kept(self):
+        clause = Clause((("e", ("x", "y")), ("n", ("z",))), tests=(("x", "=", 1), ("y", "=", 2), ("z", "=", "y")))
+        query = Query(self.NODES, "count", clause)
+        rows = {"e": ((1, 2),), "n": ((2,),)}
+        for call in (matches, open_matches):
+            for _ in range(2):
+                found = list(call(query, 0, rows))
+                self.assertEqual(found, [{"x": 1, "y": 2, "z": 2}])
+                found[0]["x"] = 7
+        self.assertEqual(list(matches(query, 0, {"e": ((1, 3),), "n": ((2,),)})), [])
+        self.assertEqual(list(matches(query, 0, rows)), [{"x": 1, "y": 2, "z": 2}])
+        rows["e"] = ((1, 2), (2, 2))
+        self.assertEqual(answer_on(query, rows), Answer("count", {(): 1}))
+
+
 def told_by_definition(clause, rows, with_absences):
     """The matches of a clause, by trying all integers of the rows, as [0.13] tells."""
     numbers = sorted({number for table in rows for row in rows[table] for number in row})

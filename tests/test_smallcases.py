@@ -445,7 +445,7 @@ class LimitTest(unittest.TestCase):
         # The patterns in which x, or y, is 1 and the other is not have the same rows.
         self.assertEqual(many(placement, query), 2 * (2 * 2 + 2 * 5))
         more = Query(schema, "count", Clause((*query.clauses[0].parts, ("a", ("z",))), absences=query.clauses[0].absences))
-        self.assertEqual(2 * (2 * 2 + 9 * 2 ** 4 + 4 * 2 ** 9), 4396)
+        self.assertEqual(choices_up_to(placement, more, 2001), 2001)
         self.assertEqual(self.errors(placement, more), (TooMany, 2000))
 
 
