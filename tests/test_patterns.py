@@ -91,6 +91,28 @@ class TemplateTest(unittest.TestCase):
         self.assertEqual(many(one(KEYED, ("b", ("k", 3)), ("b", ("k", 4)))), 0)
         self.assertEqual(many(one(KEYED, ("b", ("k", "x")), ("b", ("k", "y")), tests=(("x", "!=", "y"),))), 0)
 
+    def test_rows_that_become_one_are_one_row_of_symbols(self):
+        # c(p, x, y) and c(p, z, w) leave three symbols, so that four more are not too many.
+        schema = Schema({"c": ("k", "x", "y"), "d": ("k", "x")}, keys={"c": (("k",),)})
+        parts = (("c", ("p", "x", "y")), ("c", ("p", "z", "w")))
+        self.assertEqual(many(one(schema, *parts)), 5)
+        self.assertEqual(many(one(schema, *parts, ("d", ("u", "v")), tests=((1, "!=", 2),))), many(
+            one(schema, parts[0], ("d", ("u", "v")), tests=((1, "!=", 2),))))
+        self.assertEqual(told_error(many, one(schema, *parts, ("d", ("u", "v")), tests=((1, "!=", 2), (3, "!=", 2)))), (TooMany, 7))
+        # Rows of other tables with the same key stay apart.
+        both = Schema({"c": ("k", "x"), "d": ("k", "x")}, keys={"c": (("k",),), "d": (("k",),)})
+        self.assertEqual(many(one(both, ("c", ("p", "x")), ("d", ("p", "y")))), 5)
+
+    def test_integers_in_rows_that_become_one(self):
+        for parts in ((("b", ("k", 3)), ("b", ("k", "y"))), (("b", ("k", "y")), ("b", ("k", 3)))):
+            self.assertEqual([pattern.match["y"] for pattern in patterns(one(KEYED, *parts))], [3, 3])
+        self.assertEqual([pattern.match for pattern in patterns(one(FREE, ("b", ("x",)), tests=((3, "=", "x"),)))], [{"x": 3}])
+
+    def test_rows_that_become_one_get_a_parent(self):
+        query = one(KEYED, ("a", ("p", "q")), ("a", ("p", "r")))
+        told = list(patterns(query))
+        self.assertEqual([len(told), {len(pattern.database) for pattern in told}], [5, {2}])
+
     def test_keys_make_rows_one_behind_another(self):
         # a(p, q) and a(p, r) are one, so that q is r, and then b(q, s) and b(r, t) are one.
         query = one(KEYED, ("a", ("p", "q")), ("a", ("p", "r")), ("b", ("q", "s")))
@@ -206,6 +228,12 @@ class PatternTest(unittest.TestCase):
         told = [pattern for pattern in patterns(one(SHOP, ("ord", ("c", "i", "n")))) if len(set(pattern.match.values())) == 1]
         self.assertEqual(len(told), 5)
         self.assertEqual([pattern == other for pattern in told for other in told].count(True), 5)
+
+    def test_equal_databases_with_other_matches(self):
+        told = [pattern for pattern in patterns(one(FREE, ("b", ("x",)), ("b", ("y",)), ("b", ("z",)))) if len(pattern.database) == 2]
+        self.assertEqual(len(told), 3)
+        self.assertEqual([told[0].database == other.database for other in told], [True] * 3)
+        self.assertEqual([told[0] == other for other in told], [True, False, False])
 
     def test_nothing_is_shared(self):
         pattern = next(patterns(TOWNS))
@@ -333,6 +361,11 @@ class IsPatternTest(unittest.TestCase):
         self.assertEqual(counts, [[2, 0, 1, 0], [0, 10, 0, 0], [1, 0, 1, 0], [0, 0, 0, 2]])
         two = plain + plain
         self.assertEqual([is_pattern(plain, pattern) for pattern in patterns(two)], [True, True, False, False])
+
+    def test_patterns_of_other_schemas(self):
+        loose = SHOP.without_reference("oc").without_reference("oi")
+        for pattern in patterns(one(loose, ("ord", ("c", "i", "n")))):
+            self.assertIs(is_pattern(one(SHOP, ("ord", ("c", "i", "n"))), pattern), False)
 
     def test_other_values(self):
         for value in (*odd_values(), SPLIT, next(patterns(TOWNS)).match):

@@ -347,6 +347,8 @@ class IsSmallCaseTest(unittest.TestCase):
     def test_other_placements_and_values(self):
         case = next(small_cases(FAR, PRICES))
         self.assertIs(is_small_case(NEAR.with_rules("item", ANY), PRICES, case), False)
+        # Here the places are the same, too.
+        self.assertIs(is_small_case(FAR.with_rules("cus", ANY), PRICES, case), False)
         for value in (*odd_but(Case), SPLIT, DAY, case.database, (case,), naive.key_of(case), Case.single(bans(), Database(BANS))):
             self.assertIs(is_small_case(FAR, PRICES, value), False)
         empty = Case.single(FAR, Database(SHOP))
@@ -434,6 +436,32 @@ class LimitTest(unittest.TestCase):
         self.assertEqual([choices_up_to(placement, query, 2100) for query in (most, more)], [2000, 2001])
         self.assertIsNone(self.errors(placement, most))
         self.assertEqual(self.errors(placement, more), (TooMany, 2000))
+
+        most = Query(schema, "distinct", Clause((("a", ("x", "w")), ("a", ("w", "v"))), absences=(("c", ("f", "w")),)),
+                     Clause((("a", ("z", "w")), ("a", ("v", "u"))), tests=(("w", "!=", "u"), ("v", "!=", "w")),
+                            absences=(("c", ("u", "f")),)),
+                     Clause((("a", ("x", "w")),), tests=(("x", "!=", "x"),), absences=(("c", ("x", "w")),)))
+        more = Query(schema, "distinct", Clause((("b", ("x",)),), absences=(("c", ("f", "x")),)),
+                     Clause((("a", ("x", "y")), ("a", ("u", "x")), ("b", ("x",))), absences=(("c", ("x", "y")),)),
+                     Clause((("b", ("y",)), ("a", ("y", 2)), ("a", ("v", 1)))))
+        self.assertEqual([choices_up_to(placement, query, 2100) for query in (most, more)], [2000, 2001])
+        self.assertIsNone(self.errors(placement, most))
+        self.assertEqual(self.errors(placement, more), (TooMany, 2000))
+
+    def test_distinct_without_absences(self):
+        # Each pattern is one choice: two clauses with 877 patterns are not too many, three are.
+        schema = Schema({"a": ("k", "l", "m", "n")})
+        clause = Clause((("a", ("x", "y", "z", "u")), ("a", ("v", "w", "s", "s"))))
+        placement = Placement(schema, a=(("by", "s", ("k",)),))
+        self.assertIsNone(self.errors(placement, Query(schema, "distinct", clause, clause)))
+        self.assertEqual(self.errors(placement, Query(schema, "distinct", clause, clause, clause)), (TooMany, 2000))
+
+    def test_ties_with_one_row_at_most(self):
+        # Three ties of a key and three of whole rows have a row or none: with pairs of rows it would be too many.
+        query = asked("count", ("q", ("k", "k", "f")), ("r", ("k", "k")), parts=(("p", ("k", "k")), ("p", ("l", "l")), ("p", ("m", "m"))))
+        placement = bans(p=(FIRST,))
+        self.assertEqual(choices_up_to(placement, query, 2001), 2 ** 6 + 3 ** 6 + 3 * (2 ** 4 + 3 ** 4) + 2 ** 2 + 3 ** 2)
+        self.assertIsNone(self.errors(placement, query))
 
     def test_choices_that_break_keys_count(self):
         # Each tie has a row or none, but as all of them would have the key 1, one at most has a row.

@@ -124,7 +124,7 @@ class CertificateTest(unittest.TestCase):
         near = FAR.with_rules("cus", ANY)
         wrong = (None, (), found[1:], found + found[:1], rest + rest[:1], list(found), dict(enumerate(found)),
                  ((case, answer, 1), *rest), ([case, answer], *rest), ((answer, case), *rest), (case, *rest), (None, *rest),
-                 ((case, None), *rest), ((case, answer + answer), *rest), ((case, Answer("count")), *rest),
+                 ((None, answer), *rest), ((SHOP, answer), *rest), ((case, None), *rest), ((case, answer + answer), *rest), ((case, Answer("count")), *rest),
                  ((case, Answer("sum", dict(answer.pairs()))), *rest), ((case, dict(answer.pairs())), *rest),
                  ((case.with_nodes(3), answer), *rest), ((other, other.whole(PRICES)), *rest),
                  found + ((other, other.whole(PRICES)),),
@@ -270,6 +270,8 @@ class VerdictTest(unittest.TestCase):
             again = Case.of_places(FAR, case.database, case.nodes, case.places)
             self.assertIs(again in verdict, True)
             self.assertIs(case.with_nodes(7) in verdict, False)
+            other = Case.of_places(FAR.with_rules("cus", ANY), case.database, case.nodes, case.places)
+            self.assertIs(other in verdict, False)
         for value in (*odd_but(Case), SPLIT, Case.single(FAR, DAY), next(small_cases(NEAR, PRICES)), (SPLIT,)):
             self.assertIs(value in verdict, False)
 
