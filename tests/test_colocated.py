@@ -223,6 +223,12 @@ class RoutesTest(unittest.TestCase):
         same = distinct((("a", (3, 4)),), (("a", (3, 6)),))
         self.assertEqual(routes(both, same), ((by("s", 3),), (by("t", 4, 3), by("t", 6, 3))))
 
+    def test_places_that_are_no_places_of_routes(self):
+        query = distinct((("a", (1, 2)),))
+        self.assertEqual(routes(free(a=(ANY,)), query), ())
+        self.assertEqual(routes(free(a=(ANY, ("by", "t", ("y",)))), query), ((by("t", 2),),))
+        self.assertIs(is_route(free(a=(ANY,)), query, (("any", "a", (1, 2)),)), False)
+
     def test_is_route(self):
         query = distinct((("a", (3, 4)),), (("a", (5, 6)),))
         both = free(a=(("by", "s", ("x",)), ("by", "t", ("y", "x"))))
@@ -240,7 +246,8 @@ class RoutesTest(unittest.TestCase):
         for value in (None, list(good), good[0], (*good, ALL), (*good, FIRST), (by("s", True),), (*good, by("s", 5)),
                       (*good, by("t", 1)), (by("s", 1), by("s", 1, 1)), (*good, by("s")), (by("S", 1),), (*good, None),
                       (("by", "s", [1]),), (("any", "a", (1,)), *good), (("by", "s", 1),), (["by", "s", (1,)],),
-                      (*good, by("s", SIXTY_ONE)), (*good, ("by", "s", (1,), 0)), *odd_values()):
+                      (*good, by("s", SIXTY_ONE)), (*good, ("by", "s", (1,), 0)), (("by", ["s"], (1,)),), (("any", "s", (1,)),),
+                      (("BY", "s", (1,)),), (by("u"),), *odd_values()):
             self.assertIs(is_route(free(), query, value), False, value)
             if value != ():
                 self.assertEqual(told_error(stranded, free(), query, value), (InvalidOperation,), value)
@@ -369,7 +376,7 @@ class AskedTest(unittest.TestCase):
             self.assertEqual(told_error(asked, value, None), (InvalidCase,))
         for route in (None, [by("t", 9)], by("t", 9), (by("t", 9), by("s", 1)), (by("t", 9), by("t", 9)), (by("u", 9),),
                       (by("t", 9, 9),), (by("t"),), (by("t", True),), (by("t", SIXTY_ONE),), (ALL,), (FIRST,),
-                      (("any", "item", (9, 7)),), (by("t", "9"),), (None,), *[value for value in odd_values() if value != ()]):
+                      (("any", "item", (9, 7)),), (("any", "t", (9,)),), (by("u"),), (("by", ["t"], (9,)),), (by("t", "9"),), (None,), *[value for value in odd_values() if value != ()]):
             self.assertEqual(told_error(asked, SPLIT, route), (InvalidOperation,), route)
 
 

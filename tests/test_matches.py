@@ -73,6 +73,15 @@ class MatchesTest(unittest.TestCase):
                     {"x": 1, "y": 1}, {"x": 1, "y": 2}, {"x": 2, "y": 2}])):
             self.assertEqual(list(matches(one_clause("count", clause), 0, rows)), told, clause.parts)
 
+    def test_order_where_variables_are_equal(self):
+        rows = {"c": ((2, 0, 0), (1, 1, 1)), "a": ((5, 0), (6, 1))}
+        for tests in ((("u", "=", "w"),), (("w", "=", "u"),)):
+            query = one_clause("count", Clause((("c", ("y", "w", "u")), ("a", ("z", "v"))), tests=tests))
+            told = [tuple(match.items()) for match in open_matches(query, 0, rows)]
+            self.assertEqual([[number for _, number in items] for items in told],
+                             [[0, 0, 0, 2, 5], [0, 1, 0, 2, 6], [1, 0, 1, 1, 5], [1, 1, 1, 1, 6]])
+            self.assertEqual([[name for name, _ in items] for items in told], [["u", "v", "w", "y", "z"]] * 4)
+
     def test_tests(self):
         rows = {"a": ((1, 1), (1, 2), (2, 1), (3, 3))}
         for tests, told in (

@@ -56,6 +56,7 @@ def kinds():
         yield bans(), asked(form, ("r", ("k", "f")), head=("x",), **more)
         yield bans(r=(ANY, FIRST), p=(ANY,)), asked(form, ("r", ("k", "f")), **more)
         yield bans(q=(ANY, ("with", "qp")), p=(ALL,)), asked(form, ("q", ("k", "f", "x")), ("r", ("f", "x")), **more)
+        yield bans(), asked(form, parts=(("p", ("k", "x")), ("p", ("l", "y"))), head=("x", "y"), **more)
         yield bans(p=(ANY, FIRST)), asked(form, parts=(("p", ("k", "x")), ("p", ("l", "x"))), head=("x",), **more)
         yield bans(), Query(BANS, form, Clause((("p", ("k", "x")),), absences=(("r", ("f", "g")),), **more),
                             Clause((("p", ("k", "x")), ("p", ("x", "y"))), **more))
@@ -166,6 +167,25 @@ class IsTightTest(unittest.TestCase):
             small = subcase(case, ("a", (0,)), ("b", (0,)), ("c", (0, 0)))
             self.assertIs(is_tight(query, small), True)
             self.assertIs(told_error(tightened, query, case) is None, told)
+
+    def test_tight_counterexamples_with_eight_rows_and_nine(self):
+        # The rows of e have two parents that lie apart, and tell their head on each node where no row of n blocks them.
+        schema = Schema({"a": ("k",), "b": ("k",), "e": ("k",), "n": ("k", "x")}, keys={"a": (("k",),), "b": (("k",),)},
+                        references={"ea": ("e", ("k",), "a", ("k",)), "eb": ("e", ("k",), "b", ("k",))})
+        query = Query(schema, "distinct", Clause((("e", ("k",)), ("a", ("k",)), ("b", ("k",)))),
+                      Clause((("e", ("k",)),), absences=(("n", ("k", "f")),)))
+        placement = Placement(schema, a=(("by", "s", ("k",)),), b=(("by", "t", ("k",)),), e=(ALL,), n=(ANY,))
+        for many, told in ((8, True), (9, False)):
+            rows = {"a": ((0,),), "b": ((0,),), "e": ((0,),), "n": tuple([(0, at) for at in range(many)])}
+            places = {("any", "n", (0, at)): at for at in range(many)}
+            case = case_with(placement, rows, many, {**places, ("by", "t", (0,)): 1})
+            self.assertEqual(case.difference(query), {(): (0, 1)})
+            self.assertIs(is_tight(query, case), told)
+            if told:
+                self.assertIs(by_search(query, case), True)
+                self.assertEqual(tightened(query, case), case)
+            else:
+                self.assertEqual(told_error(tightened, query, case), (TooMany, 8))
 
     def test_many_rows_can_be_needed(self):
         # How many blocking rows a counterexample needs is told by a search.
@@ -304,6 +324,17 @@ class SmallCaseOfTest(unittest.TestCase):
                 if all(len(placement[table]) == 1 for clause in query for table, _ in clause.absences):
                     if not case.is_right(query):
                         self.check(placement, query, case)
+
+    def test_places_apart_that_were_one_node(self):
+        schema = Schema({"a": ("k",), "b": ("k",), "c": ("k",)})
+        placement = Placement(schema, a=(("by", "s", ("k",)),), b=(("by", "t", ("k",)),), c=(ANY,))
+        query = Query(schema, "distinct", Clause((("a", ("x",)), ("b", ("y",)), ("c", ("z",)))))
+        case = case_with(placement, {"a": ((1,),), "b": ((1,),), "c": ((2,),)}, 2, {("any", "c", (2,)): 1})
+        self.check(placement, query, case)
+        self.assertEqual(small_case_of(query, case).nodes, 3)
+        counted = Query(schema, "count", *query)
+        self.check(placement, counted, case)
+        self.assertEqual(len(set(small_case_of(counted, case).places.values())), 2)
 
     def test_many_blocking_rows(self):
         query = asked("count", ("r", ("k", "f")), head=("x",))

@@ -108,9 +108,7 @@ def is_co_location_table(placement, query, value):
     wanted = {pattern_key(pattern): True for pattern in patterns(query)}
     if not isinstance(value, tuple) or len(value) != len(wanted):
         return False
-    if not all([isinstance(pair, tuple) and len(pair) == 2 and isinstance(pair[0], Pattern) for pair in value]):
-        return False
-    if not all([is_known_pattern(query, pattern) for pattern, _ in value]):
+    if not all([isinstance(pair, tuple) and len(pair) == 2 and is_known_pattern(query, pair[0]) for pair in value]):
         return False
     if len(set([pattern_key(pattern) for pattern, _ in value])) != len(wanted):
         return False
