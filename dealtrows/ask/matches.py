@@ -1,23 +1,18 @@
 """The matches of queries in rows, which need not be a database."""
 
 from dealtrows.ask.joins import blockers, check_many, is_open, match_list, numbers_on, open_list, pairs_of, values_of
-from dealtrows.ask.queries import Query
+from dealtrows.ask.queries import check_query
 from dealtrows.base.answers import checked_answer
 from dealtrows.base.databases import MAX_ROWS, is_rows, many_rows
 from dealtrows.base.names import are_integers, is_integer, is_number
-from dealtrows.errors import InvalidNumber, InvalidOperation, InvalidQuery, InvalidRow
+from dealtrows.errors import InvalidNumber, InvalidOperation, InvalidRow
 
 MAX_MATCHES = 2000
 
 
-def _check_query(query):
-    if not isinstance(query, Query):
-        raise InvalidQuery("this is no query")
-
-
 def _clause_at(query, index):
     """The clause of a query with this index."""
-    _check_query(query)
+    check_query(query)
     if not is_number(index) or not 0 <= index < len(query):
         raise InvalidNumber(index)
     return query.clauses[index]
@@ -99,7 +94,7 @@ def _with_head(clause, found, head):
 
 def witnesses(query, rows, head):
     """The pairs (index, match) of all matches with this head."""
-    _check_query(query)
+    check_query(query)
     check_rows(query, rows)
     if not are_integers(head) or len(head) != query.width:
         raise InvalidOperation("this is no head of the query")
@@ -112,6 +107,6 @@ def witnesses(query, rows, head):
 
 def answer_on(query, rows):
     """The answer of a query on some rows."""
-    _check_query(query)
+    check_query(query)
     check_rows(query, rows)
     return checked_answer(query.form, numbers_on(query.form, query.clauses, rows, MAX_MATCHES))

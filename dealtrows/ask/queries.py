@@ -203,6 +203,12 @@ def _check_clauses(schema, form, clauses):
         raise InvalidQuery("there are too many named integers, or absences that break a rule")
 
 
+def check_query(value):
+    """Refuse a value that is no query."""
+    if not isinstance(value, Query):
+        raise InvalidQuery("this is no query")
+
+
 class Query:
     """A form and one to three clauses over a schema. It never changes."""
 

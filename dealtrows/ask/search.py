@@ -27,7 +27,7 @@ def _terms_made_one(clause):
     return told
 
 
-def _are_apart(tests, known):
+def _are_unequal(tests, known):
     """Whether the two terms of each test are unequal."""
     return all([known.get(one, one) != known.get(other, other) for one, other in tests])
 
@@ -38,7 +38,7 @@ def _known_by(terms, tests, row):
     for term, number in zip(terms, row):
         if (known.setdefault(term, number) if is_variable(term) else term) != number:
             return None
-    if tests and not _are_apart(tests, known):
+    if tests and not _are_unequal(tests, known):
         return None
     return known
 
@@ -124,7 +124,7 @@ class Search:
             gives = [(name, names.index(self._one[name])) for name in self._base if self._one[name] in names]
             tests = [test for test in self._outer if any([term in names for term in test]) and _is_within(test, seen)]
             self._levels.append((names, stands[names[0]], gives, tests))
-        self._steps_of = [[(names, gives) for names, where, gives, _ in self._levels if at in where]
+        self._steps_of = [[(level[0], level[2]) for level in self._levels if at in level[1]]
                           for at in range(len(self._parts))]
 
     def _tree(self, at, rows, is_ordered):
@@ -167,7 +167,7 @@ class Search:
         for values in first:
             if len(where) == 1 or all([values in branches[part].below for part in where]):
                 more = {**known, **first[values].gives}
-                if not tests or _are_apart(tests, more):
+                if not tests or _are_unequal(tests, more):
                     left = list(branches)
                     for part in where:
                         left[part] = branches[part].below[values]

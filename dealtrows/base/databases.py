@@ -86,7 +86,7 @@ def _parents_in(schema, rows):
     return found
 
 
-def _rows_of(pairs):
+def rows_of(pairs):
     """The dict of rows of some different pairs."""
     rows = {}
     for table, row in pairs:
@@ -206,7 +206,7 @@ class Database:
             if not is_pair(self._schema, pair):
                 raise InvalidRow("this is no pair of a table and a row of it")
             self._check_row(pair[0], pair[1])
-        return Database(self._schema, _rows_of(self._closure(pairs)))
+        return Database(self._schema, rows_of(self._closure(pairs)))
 
     def with_row(self, table, row):
         """The database that has this row, too."""
@@ -214,19 +214,19 @@ class Database:
             raise InvalidRow("this is no row of the table")
         if (table, row) in self:
             return self
-        return Database(self._schema, _rows_of([*self._pairs, (table, row)]))
+        return Database(self._schema, rows_of([*self._pairs, (table, row)]))
 
     def without_row(self, table, row):
         """The database that lacks this row and all rows whose closure contains it."""
         self._check_table(table)
         self._check_row(table, row)
         left = [pair for pair in self._pairs if (table, row) not in self._closure([pair])]
-        return Database(self._schema, _rows_of(left))
+        return Database(self._schema, rows_of(left))
 
     def __or__(self, other):
         self._check_other(other)
         more = [pair for pair in other._pairs if pair not in self]
-        return Database(self._schema, _rows_of([*self._pairs, *more]))
+        return Database(self._schema, rows_of([*self._pairs, *more]))
 
     def _shared(self, other):
         """The pairs of the rows whose closures are rows of the other database."""
@@ -234,12 +234,12 @@ class Database:
 
     def __and__(self, other):
         self._check_other(other)
-        return Database(self._schema, _rows_of(self._shared(other)))
+        return Database(self._schema, rows_of(self._shared(other)))
 
     def __sub__(self, other):
         self._check_other(other)
         shared = self._shared(other)
-        return Database(self._schema, _rows_of(self._closure([pair for pair in self._pairs if pair not in shared])))
+        return Database(self._schema, rows_of(self._closure([pair for pair in self._pairs if pair not in shared])))
 
     def is_within(self, other):
         """Whether each row is one of the other database."""

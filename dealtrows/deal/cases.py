@@ -2,7 +2,7 @@
 
 from dealtrows.ask.joins import numbers_on
 from dealtrows.ask.matches import MAX_MATCHES
-from dealtrows.ask.queries import Query
+from dealtrows.ask.queries import check_query
 from dealtrows.base.answers import checked_answer
 from dealtrows.base.databases import Database
 from dealtrows.base.names import is_number, is_plain
@@ -61,10 +61,17 @@ def _together(form, parts):
     return found
 
 
-def check_query(schema, value):
+def check_query_of(schema, value):
     """Refuse a value that is no query of an equal schema."""
-    if not isinstance(value, Query) or value.schema != schema:
+    check_query(value)
+    if value.schema != schema:
         raise InvalidQuery("this is no query of an equal schema")
+
+
+def check_case(value):
+    """Refuse a value that is no case."""
+    if not isinstance(value, Case):
+        raise InvalidCase("this is no case")
 
 
 class Case:
@@ -92,7 +99,7 @@ class Case:
         self._nodes = nodes
         self._places = places
         self._lies = {}
-        self._rows = [{table: [] for table in database.rows} for _ in range(nodes)]
+        self._rows = [{name: [] for name in database.rows} for _ in range(nodes)]
         for pair in found:
             table, row = pair
             if ALL in found[pair]:
@@ -179,23 +186,23 @@ class Case:
         return _together(query.form, [self._numbers_on(query, rows) for rows in self._rows])
 
     def __call__(self, query):
-        check_query(self._placement.schema, query)
+        check_query_of(self._placement.schema, query)
         found = self._combined_numbers(query)
         return checked_answer(query.form, {head: found[head] for head in found if found[head] != 0})
 
     def whole(self, query):
         """The global answer."""
-        check_query(self._placement.schema, query)
+        check_query_of(self._placement.schema, query)
         return checked_answer(query.form, self._whole_numbers(query))
 
     def local(self, query, node):
         """The local answer of a node."""
-        check_query(self._placement.schema, query)
+        check_query_of(self._placement.schema, query)
         return checked_answer(query.form, self._numbers_on(query, self.rows_at(node)))
 
     def difference(self, query):
         """A dict from the heads with different numbers to the pairs of the combined and the global number."""
-        check_query(self._placement.schema, query)
+        check_query_of(self._placement.schema, query)
         whole = self._whole_numbers(query)
         mine = self._combined_numbers(query)
         told = {head: (mine.get(head, 0), whole.get(head, 0)) for head in sorted(set([*whole, *mine]))}
@@ -229,7 +236,7 @@ class Case:
 def is_counterexample(placement, query, value):
     """Whether the value is a case of an equal placement whose combined answer is not the global one."""
     check_placement(placement)
-    check_query(placement.schema, query)
+    check_query_of(placement.schema, query)
     if not isinstance(value, Case) or value.placement != placement:
         return False
     try:

@@ -2,22 +2,21 @@
 
 from dealtrows.ask.joins import open_list, pairs_of, values_of
 from dealtrows.ask.matches import MAX_MATCHES, is_match
-from dealtrows.ask.queries import Query
+from dealtrows.ask.queries import check_query
 from dealtrows.base.names import are_integers, is_ascending, is_name, is_number, is_plain
-from dealtrows.deal.cases import Case
+from dealtrows.deal.cases import Case, check_case
 from dealtrows.deal.placements import ALL, FIRST, check_placement
 from dealtrows.decide.patterns import Pattern, is_known_pattern, is_pattern, pattern_key, patterns
 from dealtrows.decide.plans import numbered
 from dealtrows.decide.smallcases import plans_of
-from dealtrows.errors import InvalidCase, InvalidOperation, InvalidQuery, TooMany
+from dealtrows.errors import InvalidOperation, TooMany
 
 MAX_ROUTE_PLACES = 10
 
 
 def _check_both(placement, query):
     check_placement(placement)
-    if not isinstance(query, Query):
-        raise InvalidQuery("this is no query")
+    check_query(query)
 
 
 def _check_kind(placement, query):
@@ -213,8 +212,7 @@ def stranded(placement, query, route):
 
 def asked(case, route):
     """The ascending tuple of the nodes that are asked by a route."""
-    if not isinstance(case, Case):
-        raise InvalidCase("this is no case")
+    check_case(case)
     if not _are_spread_places(case.placement, route):
         raise InvalidOperation("these are no ascending tuple of places by spreads")
     places = case.places

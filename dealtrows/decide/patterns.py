@@ -2,13 +2,13 @@
 
 from dealtrows.ask.joins import is_open, value_of, values_of
 from dealtrows.ask.matches import is_assignment
-from dealtrows.ask.queries import Query
+from dealtrows.ask.queries import check_query
 from dealtrows.ask.terms import is_variable, terms_of_parts
-from dealtrows.base.databases import Database
+from dealtrows.base.databases import Database, rows_of
 from dealtrows.base.names import is_number
 from dealtrows.base.schemas import picked
 from dealtrows.decide.templates import template_of
-from dealtrows.errors import InvalidDatabase, InvalidNumber, InvalidOperation, InvalidQuery, TooMany
+from dealtrows.errors import InvalidDatabase, InvalidNumber, InvalidOperation, TooMany
 
 MAX_SYMBOLS = 7
 MAX_CLOSURE = 8
@@ -52,11 +52,6 @@ class Pattern:
         return f"pattern of clause {self._clause} with {len(self._database.pairs())} rows"
 
 
-def _check_query(query):
-    if not isinstance(query, Query):
-        raise InvalidQuery("this is no query")
-
-
 def bound_of(query):
     """One more than the greatest absolute value of the integers of a query, summed ones too."""
     summed = [clause.summed for clause in query.clauses if clause.summed is not None]
@@ -87,7 +82,7 @@ def _checked_template(query, index):
 
 def _checked_templates(query):
     """The templates of all clauses, None for a clause without one."""
-    _check_query(query)
+    check_query(query)
     return [_checked_template(query, index) for index in range(len(query))]
 
 
@@ -119,14 +114,6 @@ def _keep_keys(schema, pairs):
     return True
 
 
-def _rows_of(pairs):
-    """The dict of rows of some pairs, each row once."""
-    rows = {}
-    for table, row in sorted(set(pairs)):
-        rows[table] = rows.get(table, ()) + (row,)
-    return rows
-
-
 def _pattern_with(query, index, template, known):
     """The pattern that gives the symbols of a template these values, or None if it is none."""
     clause = query.clauses[index]
@@ -137,7 +124,7 @@ def _pattern_with(query, index, template, known):
         return None
     match = {name: value_of(template.term_of(name), known) for name in clause.variables}
     fresh = [known[symbol] for symbol in known if known[symbol] not in query.integers]
-    return Pattern(index, match, Database(query.schema, _rows_of(pairs)), tuple(sorted(set(fresh))))
+    return Pattern(index, match, Database(query.schema, rows_of(sorted(set(pairs)))), tuple(sorted(set(fresh))))
 
 
 def _patterns_of(query, index, template):
@@ -186,12 +173,12 @@ def pattern_in(query, index, database, match):
              for table, row in _listed_pairs(query, clause, database, match)]
     told = {name: values[match[name]] for name in clause.variables}
     fresh = [values[number] for number in values if number not in query.integers]
-    return Pattern(index, told, Database(query.schema, _rows_of(pairs)), tuple(sorted(fresh)))
+    return Pattern(index, told, Database(query.schema, rows_of(sorted(set(pairs)))), tuple(sorted(fresh)))
 
 
 def pattern_of(query, clause, database, match):
     """The pattern of an open match of the clause with this index."""
-    _check_query(query)
+    check_query(query)
     if not is_number(clause) or not 0 <= clause < len(query):
         raise InvalidNumber(clause)
     if not isinstance(database, Database) or database.schema != query.schema:

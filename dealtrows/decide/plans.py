@@ -156,7 +156,7 @@ class Plan:
 
     def _case_with(self, database, blocking, chosen, layout, nodes):
         """The case with these rows: places that are not told, those of parents, are node 0."""
-        told = dict(layout)
+        told = {place: layout[place] for place in layout}
         for at in range(len(self._ties)):
             if self._given[at] is None:
                 for row, node in zip(blocking[at], chosen[at]):

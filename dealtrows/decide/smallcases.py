@@ -1,14 +1,14 @@
 """Small cases: finitely many cases that decide whether a query is right for a placement."""
 
 from dealtrows.ask.matches import MAX_MATCHES, check_rows
-from dealtrows.ask.queries import Query
+from dealtrows.ask.queries import check_query
 from dealtrows.base.names import is_ascending
 from dealtrows.deal.cases import Case
 from dealtrows.deal.placements import check_placement, is_place
 from dealtrows.decide.patterns import patterns
 from dealtrows.decide.plans import Plan, node_layouts
 from dealtrows.decide.ties import ties_in
-from dealtrows.errors import InvalidOperation, InvalidQuery, TooMany
+from dealtrows.errors import InvalidOperation, TooMany
 
 MAX_PLACES = 6
 MAX_CASES = 2000
@@ -26,8 +26,7 @@ def _check_fit(placement, query):
 def check_decidable(placement, query):
     """Refuse what is no placement and no query that have small cases."""
     check_placement(placement)
-    if not isinstance(query, Query):
-        raise InvalidQuery("this is no query")
+    check_query(query)
     _check_fit(placement, query)
 
 

@@ -2,25 +2,20 @@
 
 from dealtrows.ask.joins import open_list, values_of
 from dealtrows.ask.matches import MAX_MATCHES
-from dealtrows.ask.queries import Query
-from dealtrows.deal.cases import Case, is_counterexample
+from dealtrows.ask.queries import check_query
+from dealtrows.deal.cases import Case, check_case, is_counterexample
 from dealtrows.deal.placements import ALL, FIRST
 from dealtrows.decide.patterns import pattern_in, pattern_key, values_in_pattern
 from dealtrows.decide.shrink import absent_pairs, smaller_pairs
 from dealtrows.decide.smallcases import plans_of
-from dealtrows.errors import InvalidCase, InvalidOperation, InvalidQuery, TooMany
+from dealtrows.errors import InvalidOperation, TooMany
 
 MAX_BLOCKING = 8
 
 
-def _check_case(value):
-    if not isinstance(value, Case):
-        raise InvalidCase("this is no case")
-
-
 def subcase(case, *pairs):
     """The subcase with the closure of some pairs (table, row)."""
-    _check_case(case)
+    check_case(case)
     database = case.database.closure_of(*pairs)
     places = case.places
     told = [place for place in case.placement.places_in(database) if place != ALL]
@@ -29,7 +24,7 @@ def subcase(case, *pairs):
 
 def is_subcase(case, value):
     """Whether the value is a subcase of a case."""
-    _check_case(case)
+    check_case(case)
     if not isinstance(value, Case) or value.placement != case.placement or value.nodes != case.nodes:
         return False
     if not value.database.is_within(case.database):
@@ -40,8 +35,7 @@ def is_subcase(case, value):
 
 def is_tight(query, value):
     """Whether the value is a tight counterexample with at most eight rows in tables of absences."""
-    if not isinstance(query, Query):
-        raise InvalidQuery("this is no query")
+    check_query(query)
     if not isinstance(value, Case) or value.placement.schema != query.schema:
         return False
     if not is_counterexample(value.placement, query, value):
@@ -51,9 +45,8 @@ def is_tight(query, value):
 
 def _check_counterexample(query, case):
     """Refuse what is no counterexample of a query."""
-    if not isinstance(query, Query):
-        raise InvalidQuery("this is no query")
-    _check_case(case)
+    check_query(query)
+    check_case(case)
     if case.placement.schema != query.schema:
         raise InvalidOperation("the schemas differ")
     if case.is_right(query):

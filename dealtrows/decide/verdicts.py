@@ -1,10 +1,10 @@
 """Verdicts: whether queries are right for placements, with certificates and counterexamples."""
 
-from dealtrows.ask.queries import Query
+from dealtrows.ask.queries import Query, check_query
 from dealtrows.base.answers import Answer
-from dealtrows.deal.cases import Case, is_counterexample
+from dealtrows.deal.cases import Case, check_case, is_counterexample
 from dealtrows.decide.smallcases import case_key, plans_of, small_cases
-from dealtrows.errors import InvalidCase, InvalidOperation, InvalidQuery
+from dealtrows.errors import InvalidOperation
 
 _KINDS = ("changed", "invented", "lost")
 
@@ -102,10 +102,8 @@ def _faults_of(case, query):
 
 def faults(case, query):
     """A dict from the heads that are lost, invented or changed to these words."""
-    if not isinstance(case, Case):
-        raise InvalidCase("this is no case")
-    if not isinstance(query, Query):
-        raise InvalidQuery("this is no query")
+    check_case(case)
+    check_query(query)
     if case.placement.schema != query.schema:
         raise InvalidOperation("the schemas differ")
     return _faults_of(case, query)
