@@ -513,6 +513,20 @@ class RightTest(unittest.TestCase):
                 self.assertEqual(self.search(placement, query, (0, 1), 3, 2), not right, (placement.rules, str(query)))
         self.assertTrue(min(told.values()) > 15, told)
 
+    def test_three_values_and_three_nodes(self):
+        source = random.Random(12)
+        for query in self.queries():
+            placement = Placement(self.SMALL, **{
+                table: (source.choice((ALL, FIRST, ANY, ("by", "s", ("x",)))),) for table in self.SMALL.tables})
+            if is_right_for(placement, query):
+                self.assertFalse(self.search(placement, query, (0, 1, 2), 2, 3), (placement.rules, query.form))
+        for one, other in (("b", "b"), ("a", "b")):
+            placement = Placement(self.SMALL, a=(FIRST,), b=(ANY,), c=(ANY,))
+            for form in ("count", "distinct"):
+                query = Query(self.SMALL, form, Clause(((one, ("x",)), (other, ("y",))), head=("x", "y")))
+                self.assertIs(is_right_for(placement, query), False)
+                self.assertTrue(self.search(placement, query, (0, 1, 2), 2, 3))
+
     def test_right_queries_have_no_counterexamples(self):
         placement = bans(q=(("with", "qp"),), r=(("by", "s", ("k",)),))
         for form in ("distinct", "count"):
