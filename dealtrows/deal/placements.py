@@ -60,6 +60,14 @@ def is_place(value):
     return value[0] in ("any", "by") and is_name(value[1]) and is_row(value[2])
 
 
+def shared_places(found):
+    """The places that rows with these tuples of places have; a row that lies everywhere has every place."""
+    told = [places for places in found if ALL not in places]
+    if not told:
+        return (ALL,)
+    return tuple([place for place in told[0] if all([place in places for places in told])])
+
+
 def check_placement(value):
     """Refuse a value that is no placement."""
     if not isinstance(value, Placement):
@@ -177,10 +185,7 @@ class Placement:
             if not isinstance(pair, tuple) or len(pair) != 2:
                 raise InvalidOperation("this is no pair of a table and a row")
             found.append(self.places_of(database, pair[0], pair[1]))
-        told = [places for places in found if ALL not in places]
-        if not told:
-            return (ALL,)
-        return tuple([place for place in told[0] if all([place in places for places in told])])
+        return shared_places(found)
 
     def is_within(self, other):
         """Whether each rule is one of the other placement, for the same table."""

@@ -5,7 +5,7 @@ from dealtrows.ask.matches import MAX_MATCHES, is_match
 from dealtrows.ask.queries import check_query
 from dealtrows.base.names import are_integers, is_ascending, is_name, is_number, is_plain
 from dealtrows.deal.cases import Case, check_case
-from dealtrows.deal.placements import ALL, FIRST, check_placement
+from dealtrows.deal.placements import ALL, FIRST, check_placement, shared_places
 from dealtrows.decide.patterns import Pattern, is_known_pattern, is_pattern, pattern_key, patterns
 from dealtrows.decide.plans import numbered
 from dealtrows.decide.smallcases import plans_of
@@ -42,21 +42,20 @@ def _head_of(query, pattern):
     return values_of(query.clauses[pattern.clause].head, pattern.match)
 
 
-def _places_of(placement, query, pattern, index, match):
-    """The places of co-locations of a pattern with this match of the clause with this index."""
-    pairs = pairs_of(query.clauses[index], match)
-    return placement.common_places(pattern.database, *pairs)
+def _places_of(clause, match, by_pair):
+    """The places of co-locations with this match of a clause, by the places of all pairs of the pattern."""
+    return shared_places([by_pair[pair] for pair in pairs_of(clause, match)])
 
 
 def _all_of(placement, query, pattern):
     """The list of all co-locations of a pattern."""
     head = _head_of(query, pattern)
+    by_pair = placement.places_by_pair(pattern.database)
     found = []
     for index, clause in enumerate(query.clauses):
         for match in open_list(clause, pattern.database.rows, MAX_MATCHES):
             if values_of(clause.head, match) == head:
-                places = _places_of(placement, query, pattern, index, match)
-                found.extend([(index, match, place) for place in places])
+                found.extend([(index, match, place) for place in _places_of(clause, match, by_pair)])
     return found
 
 
@@ -71,7 +70,7 @@ def _is_one(placement, query, pattern, value):
         return False
     if values_of(query.clauses[index].head, match) != _head_of(query, pattern):
         return False
-    return place in _places_of(placement, query, pattern, index, match)
+    return place in _places_of(query.clauses[index], match, placement.places_by_pair(pattern.database))
 
 
 def co_location(placement, query, pattern):
