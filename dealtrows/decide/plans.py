@@ -1,14 +1,12 @@
 """Plans: what the small cases of one pattern are made of."""
 
+from dealtrows.ask.matches import MAX_MATCHES
 from dealtrows.base.databases import Database
 from dealtrows.deal.cases import Case
 from dealtrows.deal.placements import ALL, FIRST
 from dealtrows.decide.patterns import bound_of
 from dealtrows.decide.ties import given_places, is_single, open_place, ties_in
 from dealtrows.errors import BrokenConstraint
-
-# Patterns have at most eight rows, so that their open matches are never too many.
-_NO_LIMIT = 100000
 
 
 def numbered(places):
@@ -55,7 +53,8 @@ class Plan:
         found = placement.places_by_pair(rows)
         told = [place for pair in found if pair[0] in tables for place in found[pair]]
         self._own = tuple(sorted(set([place for place in told if place != ALL])))
-        self._ties = ties_in(query, rows.rows, _NO_LIMIT)
+        # Patterns have at most eight rows, so that their open matches are never too many.
+        self._ties = ties_in(query, rows.rows, MAX_MATCHES)
         self._given = [given_places(placement, rows, tie) for tie in self._ties]
         more = [place for given in self._given if given is not None for place in given]
         self._wanted = tuple(sorted(set([place for place in [*told, *more] if place != ALL])))
