@@ -27,6 +27,9 @@ WORDS = re.compile(
     r"|NamedTuple|TypedDict|TYPE_CHECKING|abstractmethod)\b|dataclass|overload|contextmanager|_wall|_WallAttr|Meta|\(type\)"
     r"|metaclass=")
 TAKE_LISTS = ("any", "all", "min", "max", "sum", "sorted")
+MAKERS = ("list", "tuple", "dict", "sorted", "set", "range")
+WALKERS = ("range", "zip", "enumerate", "reversed")
+CHANGERS = ("append", "clear", "extend", "insert", "pop", "remove", "reverse", "setdefault", "update", "add", "discard")
 
 
 def sources():
@@ -59,6 +62,77 @@ def bound_names(tree):
             yield node.name
         elif isinstance(node, ast.alias):
             yield node.name
+
+
+def name_called(node):
+    """The bare name of the function that a node calls, or None."""
+    return node.func.id if isinstance(node, ast.Call) and isinstance(node.func, ast.Name) else None
+
+
+def is_made_there(node):
+    """Whether a value is made where it stands, so that nothing else can be the same list or dict."""
+    if isinstance(node, ast.IfExp):
+        return is_made_there(node.body) and is_made_there(node.orelse)
+    if isinstance(node, ast.BinOp):
+        return is_made_there(node.left) or is_made_there(node.right)
+    plain = (ast.Constant, ast.List, ast.Tuple, ast.Dict, ast.ListComp, ast.DictComp, ast.SetComp)
+    return isinstance(node, plain) or name_called(node) in MAKERS
+
+
+def root_of(node):
+    """The name with which an item, an attribute or a call begins."""
+    while isinstance(node, (ast.Subscript, ast.Attribute, ast.Call)):
+        node = node.func if isinstance(node, ast.Call) else node.value
+    return node.id if isinstance(node, ast.Name) else None
+
+
+def roots_walked(node):
+    """The names by which a loop reaches what it walks; none if that is made for the loop."""
+    if is_made_there(node):
+        return set()
+    found = {root_of(part) for part in node.args} if isinstance(node, ast.Call) else set()
+    if name_called(node) in WALKERS:
+        return set().union(*[roots_walked(part) for part in node.args])
+    return (found | {root_of(node)}) - {None}
+
+
+def changed_in(body):
+    """The lists and dicts that some statements change."""
+    for node in [node for statement in body for node in ast.walk(statement)]:
+        if isinstance(node, ast.Subscript) and not isinstance(node.ctx, ast.Load):
+            yield node.value
+        elif isinstance(node, ast.Call) and isinstance(node.func, ast.Attribute) and node.func.attr in CHANGERS:
+            yield node.func.value
+
+
+def values_of_names(function):
+    """The values that each name of a function is assigned."""
+    found = {}
+    for node in ast.walk(function):
+        if isinstance(node, ast.Assign):
+            for target in node.targets:
+                names = target.elts if isinstance(target, ast.Tuple) else [target]
+                values = node.value.elts if isinstance(node.value, ast.Tuple) else [node.value] * len(names)
+                for name, value in zip(names, values):
+                    if isinstance(name, ast.Name):
+                        found.setdefault(name.id, []).append(value)
+    return found
+
+
+def loops_that_change(tree):
+    """The lines in loops that change what could be what the loop walks."""
+    for function in [node for node in ast.walk(tree) if isinstance(node, ast.FunctionDef)]:
+        told = values_of_names(function)
+        # A name that is assigned another one can be the same list.
+        same = [{name, value.id} for name, values in told.items() for value in values if isinstance(value, ast.Name)]
+        for loop in [node for node in ast.walk(function) if isinstance(node, ast.For)]:
+            walked = roots_walked(loop.iter)
+            for node in changed_in(loop.body):
+                name = root_of(node)
+                own = name in told and all(is_made_there(value) for value in told[name])
+                shared = any(name in names and names & walked for names in same)
+                if walked and (name in walked or shared or not own):
+                    yield node.lineno
 
 
 class FilesTest(unittest.TestCase):
@@ -196,6 +270,27 @@ class CodeTest(unittest.TestCase):
                     call = above[node]
                     self.assertIsInstance(call, ast.Call, (name, node.lineno))
                     self.assertIn(call.func.id, ("sorted", "len"), (name, node.lineno))
+
+    def test_no_range_zip_or_view_is_kept(self):
+        for at, node in self.nodes(ast.Assign):
+            self.assertNotIn(name_called(node.value), WALKERS, at)
+            if isinstance(node.value, ast.Call) and isinstance(node.value.func, ast.Attribute):
+                self.assertNotIn(node.value.func.attr, ("items", "keys", "values"), at)
+
+    def test_loops_change_nothing_that_they_could_walk(self):
+        for name, (_, tree) in SOURCES.items():
+            self.assertEqual(list(loops_that_change(tree)), [], name)
+
+    def test_loops_that_are_told_apart(self):
+        wrong = ("for a in self.x[k]:\n  self.y[a].append(1)", "for a in f(b):\n  b.append(a)",
+                 "c = []\n for a in b:\n  c.append(a)\n b = c", "r = q.rows\n for a in zip(self.x, b):\n  r[a] = 1",
+                 "for a in self.x:\n  del self.y[a]")
+        right = ("c = []\n for a in b:\n  c.append(a)", "for a in list(self.x):\n  self.y[a] = 1",
+                 "for a in range(3):\n  self.y.append(a)")
+        for text in wrong:
+            self.assertTrue(list(loops_that_change(ast.parse(f"def f(self, b, q, k):\n {text}"))), text)
+        for text in right:
+            self.assertFalse(list(loops_that_change(ast.parse(f"def f(self, b):\n {text}"))), text)
 
     def test_is_stands_beside_plain_values(self):
         for at, node in self.nodes(ast.Compare):

@@ -56,12 +56,13 @@ class Stops:
     """The absences of a clause, and which integers in their tied columns have rows."""
 
     def __init__(self, clause, rows):
-        self._ties = []
+        found = []
         for (table, _), tied in zip(clause.absences, clause.tied()):
             there = {tuple([row[at] for at, _ in tied]): True for row in rows.get(table, ())}
             # An absence without rows stops nothing.
             if there:
-                self._ties.append(([term for _, term in tied], there))
+                found.append(([term for _, term in tied], there))
+        self._ties = found
 
     def _is_stopped(self, match):
         """Whether some absence becomes a row."""

@@ -74,6 +74,14 @@ class Branch:
         self.gives = gives
         self.below = {}
 
+    def branch_by(self, values, gives):
+        """The branch by the next integers, made if there is none."""
+        found = self.below.get(values)
+        if found is None:
+            found = Branch({name: values[index] for name, index in gives})
+            self.below[values] = found
+        return found
+
 
 class Search:
     """A clause that is made ready to be looked for in rows.
@@ -118,12 +126,13 @@ class Search:
                 groups[-1].append(name)
             else:
                 groups.append([name])
-        seen = []
-        for names in groups:
+        seen, levels = [], []
+        for names in list(groups):
             seen = [*seen, *names]
             gives = [(name, names.index(self._one[name])) for name in self._base if self._one[name] in names]
             tests = [test for test in self._outer if any([term in names for term in test]) and _is_within(test, seen)]
-            self._levels.append((names, stands[names[0]], gives, tests))
+            levels.append((names, stands[names[0]], gives, tests))
+        self._levels = levels
         self._steps_of = [[(level[0], level[2]) for level in self._levels if at in level[1]]
                           for at in range(len(self._parts))]
 
@@ -141,9 +150,7 @@ class Search:
             branch = root
             branch.size += 1
             for (_, gives), values in zip(steps, key):
-                if values not in branch.below:
-                    branch.below[values] = Branch({name: values[index] for name, index in gives})
-                branch = branch.below[values]
+                branch = branch.branch_by(values, gives)
                 branch.size += 1
         return root if keys else None
 

@@ -98,16 +98,17 @@ class Case:
         self._database = database
         self._nodes = nodes
         self._places = places
-        self._lies = {}
-        self._rows = [{name: [] for name in database.rows} for _ in range(nodes)]
+        lies = {}
+        rows = [{name: [] for name in database.rows} for _ in range(nodes)]
         for pair in found:
             table, row = pair
-            if ALL in found[pair]:
-                self._lies[pair] = tuple(range(nodes))
-            else:
-                self._lies[pair] = tuple(sorted(set([places[place] for place in found[pair]])))
-            for node in self._lies[pair]:
-                self._rows[node][table].append(row)
+            there = list(range(nodes)) if ALL in found[pair] else [places[place] for place in found[pair]]
+            told = sorted(set(there))
+            lies[pair] = tuple(told)
+            for node in told:
+                rows[node][table].append(row)
+        self._lies = lies
+        self._rows = rows
 
     @classmethod
     def of_places(cls, placement, database, nodes, places):

@@ -90,11 +90,9 @@ def _valuations(symbols, integers, fresh):
     """All dicts that give symbols named integers or values of classes, which are numbered as they come."""
     found = [({}, 0)]
     for symbol in symbols:
-        longer = []
-        for known, used in found:
-            longer.extend([({**known, symbol: number}, used) for number in [*integers, *fresh[:used]]])
-            longer.append(({**known, symbol: fresh[used]}, used + 1))
-        found = longer
+        # What is given so far can be given on, or a value of a class of its own.
+        found = [({**known, symbol: number}, max(used, at + 1 - len(integers)))
+                 for known, used in found for at, number in enumerate([*integers, *fresh[:used + 1]])]
     return [known for known, _ in found]
 
 

@@ -1,7 +1,7 @@
 """Plans: what the small cases of one pattern are made of."""
 
 from dealtrows.ask.matches import MAX_MATCHES
-from dealtrows.base.databases import Database
+from dealtrows.base.databases import Database, rows_of
 from dealtrows.deal.cases import Case
 from dealtrows.deal.placements import ALL, FIRST
 from dealtrows.decide.patterns import bound_of
@@ -145,11 +145,12 @@ class Plan:
 
     def _database_with(self, blocking):
         """The database of the pattern with some blocking rows, or None if they break a key."""
-        rows = self._pattern.database.rows
-        for (table, _), more in zip(self._ties, blocking):
-            rows[table] = rows[table] + tuple(more)
+        pairs = list(self._pattern.database.pairs())
+        for at in range(len(blocking)):
+            table = self._ties[at][0]
+            pairs.extend([(table, row) for row in blocking[at]])
         try:
-            return Database(self._asked.schema, rows)
+            return Database(self._asked.schema, rows_of(pairs))
         except BrokenConstraint:
             return None
 

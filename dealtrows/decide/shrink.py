@@ -81,7 +81,7 @@ class Closure:
 
     def wrong_pairs(self, most):
         """The pairs of a counterexample with at most so many rows, or None."""
-        masks = range(1 << len(self._blocking))
+        masks = list(range(1 << len(self._blocking)))
         for kept in sorted(masks, key=lambda mask: (_many_bits(mask), mask)):
             if len(self._pairs) + _many_bits(kept) > most:
                 return None

@@ -69,12 +69,10 @@ def tightened(query, case):
 def _open_matches_of(query, case):
     """The pairs (index, open match) of a case, those whose heads have wrong numbers first."""
     wrong = case.difference(query)
-    first, last = [], []
-    for index, clause in enumerate(query.clauses):
-        for match in open_list(clause, case.database.rows, MAX_MATCHES):
-            told = first if values_of(clause.head, match) in wrong else last
-            told.append((index, match))
-    return first + last
+    told = [(index, match, values_of(clause.head, match) in wrong) for index, clause in enumerate(query.clauses)
+            for match in open_list(clause, case.database.rows, MAX_MATCHES)]
+    first = [(index, match) for index, match, is_wrong in told if is_wrong]
+    return first + [(index, match) for index, match, is_wrong in told if not is_wrong]
 
 
 def _place_before(place, integers):
