@@ -38,6 +38,24 @@ INTERFACE = {
                                    "asked(case, route)"),
     "dealtrows.decide.tight": ("subcase(case, *pairs)", "is_subcase(case, value)", "is_tight(query, value)",
                                "tightened(query, case)", "small_case_of(query, case)"),
+    "dealtrows.more.gaps": ("gaps(case, query)", "basis_of(rows)", "gap_basis(placement, query)",
+                            "corrections(placement, query)", "error_step(placement, query, weights)",
+                            "unbalanced(placement, query, weights)", "gap_certificate(placement, query)",
+                            "is_gap_certificate(placement, query, value)"),
+    "dealtrows.more.checks": ("key_check(schema, table, columns)", "reference_check(schema, name)",
+                              "clause_check(schema, clause)", "relaxed(placement, constraint)",
+                              "is_noticed(placement, constraint)", "unnoticed(placement, constraint)",
+                              "noticed(placement)"),
+    "dealtrows.more.choices": ("selections(schema, choices)", "cheapest(schema, choices, *queries)",
+                               "choice_certificate(schema, choices, *queries)",
+                               "is_choice_certificate(schema, choices, queries, value)",
+                               "further_rules(placement, query, offers)"),
+    "dealtrows.live.store": ("Store(placement, *, nodes=1, spreads=None)",),
+    "dealtrows.live.guarded": ("Guard", "GuardedStore(placement, *, nodes=1, spreads=None)"),
+    "dealtrows.text.texts": ("write_schema(schema)", "write_query(query)", "write_placement(placement)",
+                             "write_database(database)", "write_case(case)", "read_schema(text)", "read_query(schema, text)",
+                             "read_placement(schema, text)", "read_database(schema, text)", "read_case(placement, text)"),
+    "dealtrows.text.shell": ("Shell(schema, placement, *, nodes=1)",),
 }
 CONSTANTS = {
     "dealtrows.base.schemas": {"MAX_TABLES": 5, "MAX_COLUMNS": 4, "MAX_KEYS": 2, "MAX_REFERENCES": 4},
@@ -51,6 +69,8 @@ CONSTANTS = {
     "dealtrows.decide.smallcases": {"MAX_PLACES": 6, "MAX_CASES": 2000},
     "dealtrows.decide.colocated": {"MAX_ROUTE_PLACES": 10},
     "dealtrows.decide.tight": {"MAX_BLOCKING": 8},
+    "dealtrows.more.choices": {"MAX_SELECTIONS": 64, "MAX_OFFERS": 6},
+    "dealtrows.live.guarded": {"MAX_PLEDGES": 4},
 }
 PROPERTY, METHOD, CLASS_METHOD, STATIC = "property", "method", "classmethod", "static"
 MEMBERS = {
@@ -93,6 +113,19 @@ MEMBERS = {
     ("dealtrows.decide.verdicts", "Verdict"): {
         PROPERTY: ("placement", "query", "certificate", "counterexample", "kinds"), METHOD: ("is_right()",),
         CLASS_METHOD: (), STATIC: (), "own": ("bool", "len", "contains", "eq", "str")},
+    ("dealtrows.live.store", "Store"): {
+        PROPERTY: ("placement", "nodes", "spreads", "database", "moves"), CLASS_METHOD: (), STATIC: (),
+        METHOD: ("add(table, row, *, node=None)", "remove(table, row)", "put(table, *rules)", "resize(nodes)", "case()",
+                 "ask(query)", "undo(*, many=1)", "redo(*, many=1)", "group()", "grouped(call)", "trial()", "during(call)",
+                 "twin()"),
+        "own": ("iadd", "isub", "getitem", "setitem", "iter", "call", "contains", "len", "eq")},
+    ("dealtrows.live.guarded", "Guard"): {
+        PROPERTY: (), METHOD: (), CLASS_METHOD: (), STATIC: ("check(placement, query)",), "own": ()},
+    ("dealtrows.live.guarded", "GuardedStore"): {
+        PROPERTY: ("pledges",), CLASS_METHOD: (), STATIC: (), "own": ("init", "call"),
+        METHOD: ("ask(query)", "pledge(name, query)", "release(name)", "put(table, *rules)")},
+    ("dealtrows.text.shell", "Shell"): {
+        PROPERTY: (), METHOD: ("store()", "run(line)"), CLASS_METHOD: (), STATIC: (), "own": ("call",)},
 }
 
 
@@ -116,7 +149,8 @@ class InterfaceTest(unittest.TestCase):
     def test_generators(self):
         for module_name, names in (("dealtrows.ask.matches", ("matches", "open_matches", "witnesses")),
                                    ("dealtrows.decide.patterns", ("patterns",)),
-                                   ("dealtrows.decide.smallcases", ("layouts", "small_cases"))):
+                                   ("dealtrows.decide.smallcases", ("layouts", "small_cases")),
+                                   ("dealtrows.more.choices", ("selections",))):
             module = importlib.import_module(module_name)
             for name in names:
                 self.assertTrue(inspect.isgeneratorfunction(getattr(module, name)), name)
@@ -138,9 +172,10 @@ class InterfaceTest(unittest.TestCase):
         if held is not None:
             self.assertIsInstance(found, held, text)
             found = found.__func__
-        parameters = list(inspect.signature(found).parameters.values())
-        told = parameters if held is staticmethod else parameters[1:]
-        self.assertEqual(f"{name}({', '.join([str(parameter) for parameter in told])})", text)
+        signature = inspect.signature(found)
+        parameters = list(signature.parameters.values())
+        told = signature.replace(parameters=parameters if held is staticmethod else parameters[1:])
+        self.assertEqual(f"{name}{told}", text)
 
 
 if __name__ == "__main__":

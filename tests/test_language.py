@@ -135,6 +135,41 @@ def loops_that_change(tree):
                     yield node.lineno
 
 
+OPERATORS = ["eq", "ne", "lt", "le", "gt", "ge", "str", "repr", "len", "bool", "iter", "contains", "getitem", "neg"]
+OPERATORS.extend(["add", "sub", "and", "or", "xor"])
+
+
+def functions_by_name():
+    """For each name the pairs of a class, or None, and a function or method of this name."""
+    found = {}
+    for _, tree in SOURCES.values():
+        for node in tree.body:
+            if isinstance(node, ast.FunctionDef):
+                found.setdefault(node.name, []).append((None, node))
+            for item in node.body if isinstance(node, ast.ClassDef) else []:
+                if isinstance(item, ast.FunctionDef):
+                    found.setdefault(node.name if item.name == "__init__" else item.name, []).append((node.name, item))
+    return found
+
+
+def run_by_operators():
+    """The functions that operators and properties run, as far as names tell."""
+    named = functions_by_name()
+    waiting = [pair for name in OPERATORS for pair in named.get(f"__{name}__", [])]
+    waiting.extend(pair for pairs in named.values() for pair in pairs
+                   if any(getattr(part, "id", "") == "property" for part in pair[1].decorator_list))
+    found = []
+    while waiting:
+        pair = waiting.pop()
+        if pair not in found:
+            found.append(pair)
+            for node in ast.walk(pair[1]):
+                if isinstance(node, ast.Call):
+                    name = node.func.attr if isinstance(node.func, ast.Attribute) else name_called(node)
+                    waiting.extend(named.get(pair[0] if name == "cls" else name, []))
+    return [function for _, function in found]
+
+
 class FilesTest(unittest.TestCase):
     def test_files(self):
         self.assertLessEqual(len(SOURCES), 100)
@@ -292,6 +327,42 @@ class CodeTest(unittest.TestCase):
         for text in right:
             self.assertFalse(list(loops_that_change(ast.parse(f"def f(self, b):\n {text}"))), text)
 
+    def test_operators_and_properties_add_to_nothing(self):
+        # Stores have += and -=, so that these could change what an operator is passed.
+        for function in run_by_operators():
+            for node in ast.walk(function):
+                self.assertNotIsInstance(node, ast.AugAssign, function.name)
+
+    def test_ends_of_blocks_only_assign(self):
+        plain = (ast.Name, ast.Attribute, ast.Constant, ast.Compare, ast.Load, ast.Store, ast.Is, ast.IsNot)
+        for at, node in self.nodes(ast.FunctionDef):
+            if node.name == "__exit__":
+                for part in [part for statement in node.body for part in ast.walk(statement)]:
+                    self.assertIsInstance(part, (ast.Assign, ast.If, *plain), at)
+                    if isinstance(part, ast.Compare):
+                        self.assertIsNone(part.comparators[0].value, at)
+                    if isinstance(part, ast.Name):
+                        self.assertNotIn(part.id, ("value", "trace"), at)
+
+    def test_stars_in_calls_stand_before_names(self):
+        for at, node in self.nodes(ast.Call):
+            for part in node.args:
+                if isinstance(part, ast.Starred):
+                    self.assertIsInstance(part.value, (ast.Name, ast.Attribute), at)
+
+    def test_generators_are_iterated_at_once(self):
+        yielding = [node.name for _, node in self.nodes(ast.FunctionDef)
+                    if any(isinstance(part, (ast.Yield, ast.YieldFrom)) for part in ast.walk(node))]
+        for name, (_, tree) in SOURCES.items():
+            above = parents_of(tree)
+            for node in ast.walk(tree):
+                called = getattr(node.func, "attr", name_called(node)) if isinstance(node, ast.Call) else None
+                if called in yielding:
+                    walks = isinstance(above[node], (ast.For, ast.comprehension)) and above[node].iter is node
+                    self.assertTrue(walks or name_called(above[node]) in (*MAKERS, "enumerate", "zip"), (name, node.lineno))
+                    for part in [part for part in node.args if not isinstance(part, ast.Lambda)]:
+                        self.assertFalse([one for one in ast.walk(part) if isinstance(one, ast.Call)], (name, node.lineno))
+
     def test_is_stands_beside_plain_values(self):
         for at, node in self.nodes(ast.Compare):
             if isinstance(node.ops[0], (ast.Is, ast.IsNot)):
@@ -321,7 +392,7 @@ class CodeTest(unittest.TestCase):
         for _, node in self.nodes(ast.ClassDef):
             for item in node.body:
                 if isinstance(item, ast.FunctionDef):
-                    named = [part.id for part in item.decorator_list if isinstance(part, ast.Name)]
+                    named = [getattr(part, "id", "property") for part in item.decorator_list]
                     (read if "property" in named else plain).add(item.name)
         self.assertFalse(read & plain)
         self.assertFalse(read & METHODS)

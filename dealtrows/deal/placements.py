@@ -11,7 +11,7 @@ FIRST = ("first",)
 _PLAIN_RULES = (("all",), ("any",), ("first",))
 
 
-def _is_rule_of(schema, table, value):
+def is_rule_of(schema, table, value):
     """Whether the value is a rule of a table of the schema."""
     if not isinstance(value, tuple) or not 1 <= len(value) <= 3:
         return False
@@ -25,16 +25,16 @@ def _is_rule_of(schema, table, value):
     return len(set(columns)) == len(columns) and all([column in schema.columns_of(table) for column in columns])
 
 
-def _are_rules_of(schema, table, value):
+def are_rules_of(schema, table, value):
     """Whether the value is an ascending tuple of one or two rules of a table, ("all",) alone."""
     if not isinstance(value, tuple) or not 1 <= len(value) <= MAX_RULES:
         return False
-    if not all([_is_rule_of(schema, table, rule) for rule in value]) or not is_ascending(value):
+    if not all([is_rule_of(schema, table, rule) for rule in value]) or not is_ascending(value):
         return False
     return ALL not in value or len(value) == 1
 
 
-def _arities(rules):
+def arities_of(rules):
     """The ascending tuple of the different pairs of a spread and an arity that stand in some rules."""
     told = [(rule[1], len(rule[2])) for table in rules for rule in rules[table] if rule[0] == "by"]
     return tuple(sorted(set(told)))
@@ -44,9 +44,9 @@ def _check_rules(schema, rules):
     """Refuse what are no rules of a placement of the schema."""
     if not isinstance(rules, dict) or len(rules) != len(schema) or not all([table in schema for table in rules]):
         raise InvalidPlacement("the rules are no dict from just the tables")
-    if not all([_are_rules_of(schema, table, rules[table]) for table in rules]):
+    if not all([are_rules_of(schema, table, rules[table]) for table in rules]):
         raise InvalidRule("some value is no ascending tuple of one or two rules of its table")
-    told = _arities(rules)
+    told = arities_of(rules)
     if len(set([spread for spread, _ in told])) < len(told):
         raise InvalidPlacement("a spread has two arities")
 
@@ -91,7 +91,7 @@ class Placement:
     def _fill(self, schema, rules):
         self._schema = schema
         self._rules = {table: rules[table] for table in sorted(rules)}
-        self._spreads = dict(_arities(rules))
+        self._spreads = dict(arities_of(rules))
 
     @classmethod
     def of(cls, schema, rules):
@@ -109,7 +109,7 @@ class Placement:
         check_schema(schema)
         if table not in schema:
             raise UnknownName(table)
-        return _is_rule_of(schema, table, value)
+        return is_rule_of(schema, table, value)
 
     @property
     def schema(self):
@@ -138,7 +138,7 @@ class Placement:
         """The placement with other rules for a table, passed in any order."""
         if table not in self._schema:
             raise UnknownName(table)
-        if not all([_is_rule_of(self._schema, table, rule) for rule in rules]):
+        if not all([is_rule_of(self._schema, table, rule) for rule in rules]):
             raise InvalidRule("some value is no rule of the table")
         return Placement.of(self._schema, {**self._rules, table: tuple(sorted(rules))})
 

@@ -1,0 +1,1 @@
+"""Stores: rows on nodes that can be changed."""

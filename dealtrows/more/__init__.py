@@ -1,0 +1,1 @@
+"""What small cases tell further: errors of counts, local checks, choices of placements."""
