@@ -6,7 +6,7 @@ from dealtrows.base.databases import Database
 from dealtrows.base.schemas import Schema
 from dealtrows.deal.cases import Case
 from dealtrows.deal.placements import Placement
-from dealtrows.errors import DealError, MissingRow, UnknownName
+from dealtrows.errors import DealError, MissingRow, NoNodes, UnknownName
 
 SIXTY = 10 ** 60 - 1
 SIXTY_ONE = 10 ** 60
@@ -58,7 +58,7 @@ def raised(call, *given, **named):
     """The error that a call raises, or None."""
     try:
         call(*given, **named)
-    except (DealError, KeyError, LookupError, OverflowError, RuntimeError) as error:
+    except (DealError, KeyError, LookupError, NoNodes, OverflowError, RuntimeError) as error:
         return error
     return None
 
