@@ -19,22 +19,31 @@ def _terms_in(schema, part, columns):
 def _are_apart(schema, clauses):
     """Whether no table of an absence is the table of a part, or one to which a part's table leads."""
     tables = [table for clause in clauses for table, _ in clause.parts]
-    absent = [table for clause in clauses for table, _ in clause.absences]
-    return not any([table == other or schema.leads_to(table, other) for table in tables for other in absent])
+    for clause in clauses:
+        for absent, _ in clause.absences:
+            if absent in tables or any([schema.leads_to(table, absent) for table in sorted(set(tables))]):
+                return False
+    return True
 
 
 def _has_parent(schema, clause, absence, reference):
     """Whether some part of the clause is the parent of the absence by a reference."""
     _, columns, parent, key = reference
     wanted = _terms_in(schema, absence, columns)
-    return any([part[0] == parent and _terms_in(schema, part, key) == wanted for part in clause.parts])
+    for part in clause.parts:
+        if part[0] == parent and _terms_in(schema, part, key) == wanted:
+            return True
+    return False
 
 
 def _have_parents(schema, clause):
     """Whether all absences of a clause have all their parents among its parts."""
     references = schema.references
-    return all([_has_parent(schema, clause, absence, references[name])
-                for absence in clause.absences for name in schema.references_of(absence[0])])
+    for absence in clause.absences:
+        for name in schema.references_of(absence[0]):
+            if not _has_parent(schema, clause, absence, references[name]):
+                return False
+    return True
 
 
 def _share_no_key(schema, table, one, other):
@@ -45,7 +54,11 @@ def _share_no_key(schema, table, one, other):
 
 
 def _are_tied_alike(schema, clauses):
-    ties = [(absence[0], tied_columns(schema, clause, absence)) for clause in clauses for absence in clause.absences]
+    """Whether absences of one table with different tied columns have no key in both."""
+    found = [(clause, absence) for clause in clauses for absence in clause.absences]
+    if len(found) < 2:
+        return True
+    ties = [(absence[0], tied_columns(schema, clause, absence)) for clause, absence in found]
     return all([_share_no_key(schema, table, one, other)
                 for table, one in ties for partner, other in ties if table == partner])
 

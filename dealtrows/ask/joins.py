@@ -24,12 +24,16 @@ def pairs_of(clause, match):
 
 def open_list(clause, rows, limit):
     """The list of the open matches in some rows, ascending by their integers."""
-    return clause.search_all().listed(rows, limit)
+    chain = clause.chain()
+    if chain.is_few(rows):
+        return chain.matches_of(chain.found(rows))
+    return clause.search_all().listed(rows, (), limit)
 
 
 def check_many(clause, rows, limit):
     """Refuse a clause with more open matches in some rows than the limit."""
-    clause.search_told().weighed(rows, limit)
+    if not clause.chain().is_few(rows):
+        clause.search_told().check_many(rows, limit)
 
 
 def is_open(clause, rows, match):
@@ -52,34 +56,32 @@ def blockers(clause, rows, match):
     return tuple(sorted(set(found)))
 
 
-class Stops:
-    """The absences of a clause, and which integers in their tied columns have rows."""
-
-    def __init__(self, clause, rows):
-        found = []
-        for (table, _), tied in zip(clause.absences, clause.tied()):
-            there = {tuple([row[at] for at, _ in tied]): True for row in rows.get(table, ())}
-            # An absence without rows stops nothing.
-            if there:
-                found.append(([term for _, term in tied], there))
-        self._ties = found
-
-    def _is_stopped(self, match):
-        """Whether some absence becomes a row."""
-        return any([values_of(terms, match) in there for terms, there in self._ties])
-
-    def left_of(self, found):
-        """The list of those of some matches that no absence rules out."""
-        return [match for match in found if not self._is_stopped(match)] if self._ties else found
-
-    def left_of_pairs(self, found):
-        """The list of those pairs whose first values no absence rules out."""
-        return [pair for pair in found if not self._is_stopped(pair[0])] if self._ties else found
+def _tied_terms(clause, rows):
+    """Pairs of the tied terms of an absence and a dict of what rows have in its tied columns."""
+    found = []
+    for (table, terms), (_, tied) in zip(clause.absences, clause.chain().ties):
+        there = rows.get(table, ())
+        # An absence without rows rules out nothing.
+        if there:
+            keys = {tuple([row[place] for place, _ in tied]): True for row in there}
+            found.append(([terms[place] for place, _ in tied], keys))
+    return found
 
 
-def match_list(clause, rows, limit):
-    """The list of the matches in some rows, ascending by their integers."""
-    return Stops(clause, rows).left_of(open_list(clause, rows, limit))
+def match_list(clause, rows, limit, head=None):
+    """The list of the matches in some rows, with a head or all, ascending by their integers."""
+    chain = clause.chain()
+    if chain.is_few(rows):
+        found = chain.left_of(chain.found(rows), rows)
+        return chain.matches_of([known for known in found if head is None or chain.head_of(known) == head])
+    kept = [(terms, keys, False) for terms, keys in _tied_terms(clause, rows)]
+    if head is not None:
+        kept.extend([((name,), {(number,): True}, True) for name, number in zip(clause.head, head)])
+    search = clause.search_all()
+    if kept:
+        # All open matches count, also those that are not listed.
+        search.check_many(rows, limit)
+    return search.listed(rows, kept, limit)
 
 
 def number_of(form, clause, match):
@@ -87,17 +89,30 @@ def number_of(form, clause, match):
     return value_of(clause.summed, match) if form == "sum" else 1
 
 
+def _few_numbers(chain, rows):
+    """Pairs of a head and what a match adds to its number, for few rows; 1 for each match but in sums."""
+    found = chain.left_of(chain.found(rows), rows)
+    if chain.summed is None:
+        return [(chain.head_of(known), 1) for known in found]
+    return [(chain.head_of(known), known[chain.summed]) for known in found]
+
+
+def _many_numbers(clause, rows, limit):
+    """Pairs of a head and what some matches add to its number."""
+    found = clause.search_told().weighed(rows, limit)
+    for terms, keys in _tied_terms(clause, rows):
+        found = [pair for pair in found if values_of(terms, pair[0]) not in keys]
+    names, summed = clause.head, clause.summed
+    return [(tuple([known[name] for name in names]), many if summed is None else many * value_of(summed, known))
+            for known, many in found]
+
+
 def numbers_on(form, clauses, rows, limit):
     """The numbers of the answer of some clauses on some rows."""
     found = {}
     for clause in clauses:
-        stops = Stops(clause, rows)
-        names, summed = clause.head, clause.summed
-        told = clause.search_told().weighed(rows, limit)
-        for known, many in stops.left_of_pairs(told):
-            head = tuple([known[name] for name in names])
-            if form == "distinct":
-                found[head] = 1
-            else:
-                found[head] = found.get(head, 0) + (many if summed is None else many * value_of(summed, known))
+        chain = clause.chain()
+        told = _few_numbers(chain, rows) if chain.is_few(rows) else _many_numbers(clause, rows, limit)
+        for head, number in told:
+            found[head] = 1 if form == "distinct" else found.get(head, 0) + number
     return {head: found[head] for head in found if found[head] != 0}

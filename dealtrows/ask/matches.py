@@ -39,16 +39,14 @@ def matches(query, index, rows):
     """The matches of a clause in some rows, ascending by their integers."""
     clause = _clause_at(query, index)
     check_rows(query, rows)
-    for match in match_list(clause, rows, MAX_MATCHES):
-        yield match
+    yield from match_list(clause, rows, MAX_MATCHES)
 
 
 def open_matches(query, index, rows):
     """The matches of a clause without its absences, ascending by their integers."""
     clause = _clause_at(query, index)
     check_rows(query, rows)
-    for match in open_list(clause, rows, MAX_MATCHES):
-        yield match
+    yield from open_list(clause, rows, MAX_MATCHES)
 
 
 def is_match(query, index, rows, value):
@@ -85,13 +83,6 @@ def blocking_rows(query, index, rows, match):
     return blockers(clause, rows, match)
 
 
-def _with_head(clause, found, head):
-    """The list of those of some matches of a clause that have this head."""
-    for name, number in zip(clause.head, head):
-        found = [match for match in found if match[name] == number]
-    return found
-
-
 def witnesses(query, rows, head):
     """The pairs (index, match) of all matches with this head."""
     check_query(query)
@@ -99,9 +90,9 @@ def witnesses(query, rows, head):
     if not are_integers(head) or len(head) != query.width:
         raise InvalidOperation("this is no head of the query")
     # All clauses are matched before the first result, so that too many matches are told at once.
-    found = [match_list(clause, rows, MAX_MATCHES) for clause in query.clauses]
-    for index, clause in enumerate(query.clauses):
-        for match in _with_head(clause, found[index], head):
+    found = [match_list(clause, rows, MAX_MATCHES, head) for clause in query.clauses]
+    for index, told in enumerate(found):
+        for match in told:
             yield (index, match)
 
 

@@ -1,11 +1,12 @@
 """Clauses and queries."""
 
 from dealtrows.ask.absences import keep_rules
+from dealtrows.ask.chains import Chain
 from dealtrows.ask.joins import numbers_on
 from dealtrows.ask.search import Search
-from dealtrows.ask.terms import integers_in, is_part, is_term, is_test, is_variable
+from dealtrows.ask.terms import integers_in, is_term, is_test, is_variable
 from dealtrows.ask.terms import renamed_parts, renamed_term, renamed_terms, renamed_tests
-from dealtrows.ask.terms import terms_of_parts, terms_of_tests, variables_in
+from dealtrows.ask.terms import terms_in_parts, terms_of_tests, variables_in
 from dealtrows.base.answers import checked_answer
 from dealtrows.base.databases import Database
 from dealtrows.base.names import are_names, is_name, is_number
@@ -22,16 +23,14 @@ MAX_NAMED = 4
 _MATCH_LIMIT = 2000
 
 
-def _are_parts(value):
-    return isinstance(value, tuple) and 1 <= len(value) <= MAX_PARTS and all([is_part(part) for part in value])
-
-
 def _are_tests(value):
-    return isinstance(value, tuple) and len(value) <= MAX_TESTS and all([is_test(test) for test in value])
-
-
-def _are_absences(value):
-    return isinstance(value, tuple) and len(value) <= MAX_ABSENCES and all([is_part(absence) for absence in value])
+    """Whether the value is a tuple of at most four tests."""
+    if not isinstance(value, tuple) or len(value) > MAX_TESTS:
+        return False
+    for test in value:
+        if not is_test(test):
+            return False
+    return True
 
 
 def _is_head(value):
@@ -49,6 +48,14 @@ def _are_free_once(absences, variables):
     return all([len(set(names)) == len(names) for names in free])
 
 
+def _stand_in(terms, variables):
+    """Whether all variables among some terms are some of these."""
+    for term in terms:
+        if isinstance(term, str) and term not in variables:
+            return False
+    return True
+
+
 def _is_renaming(names):
     return isinstance(names, dict) and all([is_name(name) and is_name(names[name]) for name in names])
 
@@ -57,16 +64,18 @@ class Clause:
     """Parts, tests, absences, a head and perhaps a summed term. It never changes."""
 
     def __init__(self, parts, *, tests=(), absences=(), head=(), summed=None):
-        if not _are_parts(parts) or not _are_tests(tests) or not _are_absences(absences):
+        terms = terms_in_parts(parts, 1, MAX_PARTS)
+        absent = terms_in_parts(absences, 0, MAX_ABSENCES)
+        if terms is None or absent is None or not _are_tests(tests):
             raise InvalidClause("these are no parts, no tests or no absences of a clause")
         if not _is_head(head) or not (summed is None or is_term(summed)):
             raise InvalidClause("this is no head or no summed term")
-        variables = variables_in(terms_of_parts(parts))
-        summed_terms = () if summed is None else (summed,)
-        told = [*terms_of_tests(tests), *head, *summed_terms]
-        if not all([name in variables for name in variables_in(told)]):
+        tested = terms_of_tests(tests) if tests else ()
+        variables = variables_in(terms)
+        if not _stand_in(head, variables) or not _stand_in((summed, *tested), variables):
             raise InvalidClause("a variable of a test, of the head or of the summed term stands in no part")
-        if not _are_free_once(absences, variables):
+        free = _free_terms(absent, variables)
+        if free and not _are_free_once(absences, variables):
             raise InvalidClause("a free variable stands twice in its absence")
         self._parts = parts
         self._tests = tests
@@ -74,8 +83,10 @@ class Clause:
         self._head = head
         self._summed = summed
         self._variables = variables
-        self._free = variables_in(_free_terms(terms_of_parts(absences), variables))
+        self._terms = (*terms, *tested, *absent)
+        self._free = variables_in(free) if free else ()
         # Searches for matches are made when they are first needed, once for each clause.
+        self._chain = None
         self._all = None
         self._told = None
 
@@ -114,10 +125,15 @@ class Clause:
         """The ascending tuple of the names of the free variables."""
         return self._free
 
-    def tied(self):
-        """For each absence the pairs of the index of a tied column and its term."""
-        return [[(at, term) for at, term in enumerate(terms) if not is_variable(term) or term in self._variables]
-                for _, terms in self._absences]
+    def named(self):
+        """The list of the named integers, as often as they stand in the parts, the tests and the absences."""
+        return [term for term in self._terms if not isinstance(term, str)]
+
+    def chain(self):
+        """The clause made ready for few rows."""
+        if self._chain is None:
+            self._chain = Chain(self)
+        return self._chain
 
     def search_all(self):
         """The search that tells all variables."""
@@ -128,9 +144,8 @@ class Clause:
     def search_told(self):
         """The search that tells at least the variables of the head, the summed term and the absences."""
         if self._told is None:
-            summed = () if self._summed is None else (self._summed,)
-            terms = [term for tied in self.tied() for _, term in tied]
-            self._told = Search(self, variables_in([*self._head, *summed, *terms]))
+            terms = [term for _, terms in self._absences for term in terms if term in self._variables]
+            self._told = Search(self, variables_in([*self._head, self._summed, *terms]))
         return self._told
 
     def with_head(self, head):
@@ -174,33 +189,50 @@ class Clause:
 
 def _fits(schema, clause):
     """Whether the parts and the absences of a clause fit the tables of a schema."""
-    parts = [*clause.parts, *clause.absences]
-    return all([table in schema and len(terms) == len(schema.columns_of(table)) for table, terms in parts])
+    for table, terms in [*clause.parts, *clause.absences]:
+        if table not in schema or len(terms) != len(schema.columns_of(table)):
+            return False
+    return True
 
 
 def _named_integers(clauses):
     """The ascending tuple of the named integers of a query with these clauses."""
-    told = [term for clause in clauses for term in terms_of_parts([*clause.parts, *clause.absences])]
-    return integers_in([*told, *[term for clause in clauses for term in terms_of_tests(clause.tests)]])
+    return integers_in([number for clause in clauses for number in clause.named()])
 
 
 def _are_alike(form, clauses):
     """Whether the clauses have heads of one length, and summed terms just in sums."""
-    if len(set([len(clause.head) for clause in clauses])) != 1:
-        return False
-    return all([(clause.summed is not None) == (form == "sum") for clause in clauses])
+    width = len(clauses[0].head)
+    for clause in clauses:
+        if len(clause.head) != width or (clause.summed is not None) != (form == "sum"):
+            return False
+    return True
+
+
+def _are_clauses(value):
+    """Whether all of some values are clauses."""
+    return all([isinstance(clause, Clause) for clause in value])
+
+
+def _check_together(schema, clauses):
+    """Refuse clauses, each of which makes a query of the schema, that make none together."""
+    if not 1 <= len(clauses) <= MAX_CLAUSES:
+        raise InvalidQuery("there are not one to three clauses")
+    if len(_named_integers(clauses)) > MAX_NAMED:
+        raise InvalidQuery("there are too many named integers")
+    if any([clause.absences for clause in clauses]) and not keep_rules(schema, clauses):
+        raise InvalidQuery("the absences break a rule")
 
 
 def _check_clauses(schema, form, clauses):
     """Refuse clauses that make no query of this form."""
-    if not all([isinstance(clause, Clause) for clause in clauses]):
+    if not _are_clauses(clauses):
         raise InvalidClause("some value is no clause")
     if not 1 <= len(clauses) <= MAX_CLAUSES or not _are_alike(form, clauses):
         raise InvalidQuery("these are not one to three clauses with like heads and the summed terms of the form")
     if not all([_fits(schema, clause) for clause in clauses]):
         raise InvalidQuery("some part or absence does not fit the tables")
-    if len(_named_integers(clauses)) > MAX_NAMED or not keep_rules(schema, clauses):
-        raise InvalidQuery("there are too many named integers, or absences that break a rule")
+    _check_together(schema, clauses)
 
 
 def check_query(value):

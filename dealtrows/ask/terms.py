@@ -1,6 +1,6 @@
 """Terms, parts and tests, of which clauses are made."""
 
-from dealtrows.base.names import is_name, is_number
+from dealtrows.base.names import MAX_LETTERS, is_name, is_number
 from dealtrows.base.schemas import MAX_COLUMNS
 
 _TERM_BOUND = 10 ** 20
@@ -9,7 +9,9 @@ _WORDS = ("=", "!=")
 
 def is_term(value):
     """Whether the value is a variable or an integer of at most twenty digits."""
-    return is_name(value) or is_number(value) and -_TERM_BOUND < value < _TERM_BOUND
+    if isinstance(value, str):
+        return is_name(value)
+    return is_number(value) and -_TERM_BOUND < value < _TERM_BOUND
 
 
 def is_variable(term):
@@ -17,12 +19,31 @@ def is_variable(term):
     return isinstance(term, str)
 
 
-def is_part(value):
-    """Whether the value is a part: a name and a tuple of one to four terms."""
-    if not isinstance(value, tuple) or len(value) != 2 or not is_name(value[0]):
-        return False
-    terms = value[1]
-    return isinstance(terms, tuple) and 1 <= len(terms) <= MAX_COLUMNS and all([is_term(term) for term in terms])
+def _are_terms(values):
+    """Whether all values of a list are terms."""
+    # Clauses have many terms, so this says once more what a name and an integer are.
+    for value in values:
+        if isinstance(value, str):
+            if len(value) > MAX_LETTERS or not (value.isascii() and value.isalpha() and value.islower()):
+                return False
+        elif not isinstance(value, int) or isinstance(value, bool) or not -_TERM_BOUND < value < _TERM_BOUND:
+            return False
+    return True
+
+
+def terms_in_parts(value, least, most):
+    """The list of the terms of a tuple of so many parts, or absences, or None if the value is none."""
+    if not isinstance(value, tuple) or not least <= len(value) <= most:
+        return None
+    found = []
+    for part in value:
+        if not isinstance(part, tuple) or len(part) != 2 or not is_name(part[0]):
+            return None
+        terms = part[1]
+        if not isinstance(terms, tuple) or not 1 <= len(terms) <= MAX_COLUMNS:
+            return None
+        found.extend(terms)
+    return found if _are_terms(found) else None
 
 
 def is_test(value):
@@ -34,12 +55,12 @@ def is_test(value):
 
 def variables_in(terms):
     """The ascending tuple of the variables among some terms."""
-    return tuple(sorted(set([term for term in terms if is_variable(term)])))
+    return tuple(sorted(set([term for term in terms if isinstance(term, str)])))
 
 
 def integers_in(terms):
     """The ascending tuple of the integers among some terms."""
-    return tuple(sorted(set([term for term in terms if not is_variable(term)])))
+    return tuple(sorted(set([term for term in terms if not isinstance(term, str)])))
 
 
 def terms_of_parts(parts):
@@ -70,3 +91,19 @@ def renamed_parts(parts, names):
 def renamed_tests(tests, names):
     """The tests with other names for variables."""
     return tuple([(renamed_term(one, names), word, renamed_term(other, names)) for one, word, other in tests])
+
+
+def terms_made_one(clause):
+    """The term that each variable is by the tests, or None if two integers would be one."""
+    told = {name: name for name in clause.variables}
+    for one, word, other in clause.tests:
+        low, high = told.get(one, one), told.get(other, other)
+        if word == "=" and low != high:
+            new, old = (low, high) if is_variable(high) else (high, low)
+            if not is_variable(old):
+                return None
+            # The first of equal variables stands for both, so that matches still ascend by all of them.
+            if is_variable(new) and old < new:
+                new, old = old, new
+            told = {name: new if told[name] == old else told[name] for name in told}
+    return told

@@ -1,6 +1,6 @@
 """Databases: rows that keep the keys and the references of a schema."""
 
-from dealtrows.base.names import is_name
+from dealtrows.base.names import are_integers, is_name
 from dealtrows.base.schemas import check_schema
 from dealtrows.errors import BrokenConstraint, InvalidDatabase, InvalidOperation, InvalidRow
 from dealtrows.errors import MissingRow, TooMany, UnknownName
@@ -12,7 +12,11 @@ def _are_rows_of(schema, table, value):
     """Whether the value is a tuple of different rows of a table."""
     if table not in schema or not isinstance(value, tuple):
         return False
-    return all([schema.is_row_of(table, row) for row in value]) and len(set(value)) == len(value)
+    width = len(schema.columns_of(table))
+    for row in value:
+        if not are_integers(row) or len(row) != width:
+            return False
+    return len(value) < 2 or len(set(value)) == len(value)
 
 
 def is_rows(schema, value):

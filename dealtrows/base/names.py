@@ -1,14 +1,14 @@
 """What a single value can be: a name, an integer, a row, the form of an answer."""
 
 _FORMS = ("distinct", "count", "sum")
-_LETTERS = 8
+MAX_LETTERS = 8
 _COLUMNS = 4
 _INTEGER_BOUND = 10 ** 60
 
 
 def is_name(value):
     """Whether the value is a name: one to eight letters from a to z."""
-    if not isinstance(value, str) or len(value) > _LETTERS:
+    if not isinstance(value, str) or len(value) > MAX_LETTERS:
         return False
     return value.isascii() and value.isalpha() and value.islower()
 
@@ -47,7 +47,15 @@ def is_form(value):
 
 def are_names(value):
     """Whether the value is a tuple of names, perhaps without any."""
-    return isinstance(value, tuple) and all([is_name(name) for name in value])
+    if not isinstance(value, tuple):
+        return False
+    # Schemas and clauses have many names, so this says once more what a name is.
+    for name in value:
+        if not isinstance(name, str) or len(name) > MAX_LETTERS:
+            return False
+        if not (name.isascii() and name.isalpha() and name.islower()):
+            return False
+    return True
 
 
 def is_plain(value):

@@ -11,49 +11,81 @@ MAX_REFERENCES = 4
 
 def _are_columns(value):
     """Whether the value can be the columns of a table."""
-    return are_names(value) and 1 <= len(value) <= MAX_COLUMNS and is_ascending(value)
+    return are_names(value) and 1 <= len(value) <= MAX_COLUMNS and (len(value) == 1 or is_ascending(value))
 
 
 def _are_tables(value):
-    if not isinstance(value, dict) or not 1 <= len(value) <= MAX_TABLES:
+    if not isinstance(value, dict) or not 1 <= len(value) <= MAX_TABLES or not are_names(tuple(value)):
         return False
-    return all([is_name(table) and _are_columns(value[table]) for table in value])
+    for table in value:
+        if not _are_columns(value[table]):
+            return False
+    return True
+
+
+def _is_key_of(columns, value):
+    """Whether the value is a key of a table with these columns."""
+    if not isinstance(value, tuple) or not value:
+        return False
+    # Columns are names, so that what is one of them needs no other check.
+    for column in value:
+        if column not in columns:
+            return False
+    return len(value) == 1 or is_ascending(value)
 
 
 def _are_keys_of(columns, value):
     """Whether the value can be the keys of a table with these columns."""
     if not isinstance(value, tuple) or not 1 <= len(value) <= MAX_KEYS:
         return False
-    if not all([_are_columns(key) for key in value]) or not is_ascending(value):
-        return False
-    return all([column in columns for key in value for column in key])
+    for key in value:
+        if not _is_key_of(columns, key):
+            return False
+    return len(value) == 1 or value[0] < value[1]
 
 
 def _are_keys(tables, value):
-    if not isinstance(value, dict) or not all([is_name(table) and table in tables for table in value]):
+    if not isinstance(value, dict):
         return False
-    return all([_are_keys_of(tables[table], value[table]) for table in value])
+    for table in value:
+        if not isinstance(table, str) or table not in tables or not _are_keys_of(tables[table], value[table]):
+            return False
+    return True
 
 
 def _is_reference(tables, keys, value):
     if not isinstance(value, tuple) or len(value) != 4:
         return False
     table, columns, parent, key = value
-    if not all([is_name(name) and name in tables for name in (table, parent)]) or table == parent:
+    if not isinstance(table, str) or table not in tables or not isinstance(parent, str) or parent not in tables:
         return False
-    if not are_names(columns) or key not in keys.get(parent, ()):
+    if table == parent or not isinstance(columns, tuple) or key not in keys.get(parent, ()):
         return False
-    if not all([column in tables[table] for column in columns]):
-        return False
-    return len(columns) == len(key) == len(set(columns))
+    for column in columns:
+        if column not in tables[table]:
+            return False
+    return len(columns) == len(key) and (len(columns) == 1 or len(set(columns)) == len(columns))
 
 
 def _are_references(tables, keys, value):
-    if not isinstance(value, dict) or len(value) > MAX_REFERENCES:
+    if not isinstance(value, dict) or len(value) > MAX_REFERENCES or not are_names(tuple(value)):
         return False
-    if not all([is_name(name) and _is_reference(tables, keys, value[name]) for name in value]):
-        return False
-    return not any([table in _reached(value, table) for table in tables])
+    for name in value:
+        if not _is_reference(tables, keys, value[name]):
+            return False
+    return not _lead_round([(value[name][0], value[name][2]) for name in value])
+
+
+def _lead_round(steps):
+    """Whether some way along pairs of tables leads back to its beginning."""
+    left = steps
+    many = len(left) + 1
+    # Steps to tables from which no step leads are on no way round.
+    while many > len(left):
+        many = len(left)
+        starts = [table for table, _ in left]
+        left = [step for step in left if step[1] in starts]
+    return many > 0
 
 
 def _reached(references, table):
@@ -116,29 +148,33 @@ class Schema:
 
     def columns_of(self, table):
         """The tuple of the columns of a table."""
-        self._check_table(table)
-        return self._tables[table]
+        if isinstance(table, str) and table in self._tables:
+            return self._tables[table]
+        raise UnknownName(table)
 
     def keys_of(self, table):
         """The ascending tuple of the keys of a table."""
-        self._check_table(table)
-        return self._keys.get(table, ())
+        if isinstance(table, str) and table in self._tables:
+            return self._keys.get(table, ())
+        raise UnknownName(table)
 
     def references_of(self, table):
         """The ascending tuple of the names of the references that lead from a table."""
-        self._check_table(table)
+        if not isinstance(table, str) or table not in self._tables:
+            raise UnknownName(table)
         return tuple([name for name in self._references if self._references[name][0] == table])
 
     def is_row_of(self, table, value):
         """Whether the value is a row of a table."""
-        self._check_table(table)
+        if not isinstance(table, str) or table not in self._tables:
+            raise UnknownName(table)
         return are_integers(value) and len(value) == len(self._tables[table])
 
     def leads_to(self, table, other):
         """Whether a way along one or more references leads from the first table to the other one."""
         self._check_table(table)
         self._check_table(other)
-        return other in _reached(self._references, table)
+        return bool(self._references) and other in _reached(self._references, table)
 
     def without_key(self, table, columns):
         """The schema without a key of a table."""
