@@ -1,7 +1,7 @@
 """Databases: rows that keep the keys and the references of a schema."""
 
 from dealtrows.base.names import are_integers, is_name
-from dealtrows.base.schemas import check_schema
+from dealtrows.base.schemas import check_schema, picked
 from dealtrows.errors import BrokenConstraint, InvalidDatabase, InvalidOperation, InvalidRow
 from dealtrows.errors import MissingRow, TooMany, UnknownName
 
@@ -98,21 +98,44 @@ def rows_of(pairs):
     return rows
 
 
+class KnownRows:
+    """Rows of a database that need no check: a dict from all tables, and the parents by references and rows."""
+
+    def __init__(self, by_table, parents):
+        self.by_table = by_table
+        self.parents = parents
+
+
+def known_rows(schema, pairs, parents):
+    """The known rows of ascending pairs."""
+    found = {table: [] for table in schema.tables}
+    for table, row in pairs:
+        found[table].append(row)
+    return KnownRows({table: tuple(found[table]) for table in found}, parents)
+
+
+def _checked_rows(schema, rows):
+    """The known rows of a database of the schema."""
+    if not is_rows(schema, rows):
+        raise InvalidDatabase("these are no rows of the schema")
+    if many_rows(rows) > MAX_ROWS:
+        raise TooMany(MAX_ROWS)
+    broken_key = _first_broken_key(schema, rows)
+    if broken_key is not None:
+        raise BrokenConstraint(broken_key)
+    parents = _parents_in(schema, rows)
+    return KnownRows({table: tuple(sorted(rows.get(table, ()))) for table in schema.tables}, parents)
+
+
 class Database:
     """Rows of the tables of a schema that break none of its constraints. It never changes."""
 
     def __init__(self, schema, rows=None):
-        given = {} if rows is None else rows
-        if not is_rows(schema, given):
-            raise InvalidDatabase("these are no rows of the schema")
-        if many_rows(given) > MAX_ROWS:
-            raise TooMany(MAX_ROWS)
-        broken_key = _first_broken_key(schema, given)
-        if broken_key is not None:
-            raise BrokenConstraint(broken_key)
-        self._parents = _parents_in(schema, given)
+        # Rows that the package has made itself are not checked again.
+        known = rows if isinstance(rows, KnownRows) else _checked_rows(schema, {} if rows is None else rows)
         self._schema = schema
-        self._rows = {table: tuple(sorted(given.get(table, ()))) for table in schema.tables}
+        self._rows = known.by_table
+        self._parents = known.parents
         self._pairs = tuple([(table, row) for table in self._rows for row in self._rows[table]])
 
     @classmethod
@@ -204,13 +227,37 @@ class Database:
         """The ascending tuple of the pairs of the closure of some rows that are there."""
         return tuple(sorted(self._closure(pairs)))
 
+    def _part(self, pairs):
+        """The database of some different pairs of this one, among them all of their parents."""
+        names = {table: self._schema.references_of(table) for table in self._rows}
+        parents = {(name, row): self._parents[name, row] for table, row in pairs for name in names[table]}
+        return Database(self._schema, known_rows(self._schema, sorted(pairs), parents))
+
     def closure_of(self, *pairs):
         """The database of the closure of some rows."""
         for pair in pairs:
             if not is_pair(self._schema, pair):
                 raise InvalidRow("this is no pair of a table and a row of it")
             self._check_row(pair[0], pair[1])
-        return Database(self._schema, rows_of(self._closure(pairs)))
+        return self._part(self._closure(pairs))
+
+    def _check_keys(self, table, row):
+        """Refuse one more row that would break a key."""
+        for key in self._schema.keys_of(table):
+            if picked(self._schema.columns_of(table), row, key) in _values_in(self._schema, self._rows, table, key):
+                raise BrokenConstraint(("key", table, key))
+
+    def _parents_of_more(self, table, row):
+        """The parents, by references and the row, of one more row; refused if it would break a reference."""
+        found = {}
+        references = self._schema.references
+        for name in self._schema.references_of(table):
+            parent = references[name][2]
+            above = _parents_by(self._schema, {table: (row,), parent: self._rows[parent]}, references[name])
+            if above[0] is None:
+                raise BrokenConstraint(("reference", name))
+            found[name, row] = (parent, above[0])
+        return found
 
     def with_row(self, table, row):
         """The database that has this row, too."""
@@ -218,14 +265,17 @@ class Database:
             raise InvalidRow("this is no row of the table")
         if (table, row) in self:
             return self
-        return Database(self._schema, rows_of([*self._pairs, (table, row)]))
+        if len(self._pairs) >= MAX_ROWS:
+            raise TooMany(MAX_ROWS)
+        self._check_keys(table, row)
+        parents = {**self._parents, **self._parents_of_more(table, row)}
+        return Database(self._schema, known_rows(self._schema, sorted([*self._pairs, (table, row)]), parents))
 
     def without_row(self, table, row):
         """The database that lacks this row and all rows whose closure contains it."""
         self._check_table(table)
         self._check_row(table, row)
-        left = [pair for pair in self._pairs if (table, row) not in self._closure([pair])]
-        return Database(self._schema, rows_of(left))
+        return self._part([pair for pair in self._pairs if (table, row) not in self._closure([pair])])
 
     def __or__(self, other):
         self._check_other(other)
@@ -238,12 +288,12 @@ class Database:
 
     def __and__(self, other):
         self._check_other(other)
-        return Database(self._schema, rows_of(self._shared(other)))
+        return self._part(self._shared(other))
 
     def __sub__(self, other):
         self._check_other(other)
         shared = self._shared(other)
-        return Database(self._schema, rows_of(self._closure([pair for pair in self._pairs if pair not in shared])))
+        return self._part(self._closure([pair for pair in self._pairs if pair not in shared]))
 
     def is_within(self, other):
         """Whether each row is one of the other database."""

@@ -4,7 +4,6 @@ from dealtrows.ask.joins import numbers_on
 from dealtrows.ask.matches import MAX_MATCHES
 from dealtrows.ask.queries import check_query
 from dealtrows.base.answers import checked_answer
-from dealtrows.base.databases import Database
 from dealtrows.base.names import is_number, is_plain
 from dealtrows.deal.placements import ALL, FIRST, check_database, check_placement
 from dealtrows.errors import InvalidCase, InvalidNumber, InvalidQuery, MissingRow, TooMany, UnknownName
@@ -74,35 +73,52 @@ def check_case(value):
         raise InvalidCase("this is no case")
 
 
+class KnownPlaces:
+    """A dict from the ascending places of all rows to nodes, which needs no check."""
+
+    def __init__(self, by_place):
+        self.by_place = by_place
+
+
+def _checked_places(placement, database, nodes, spreads, lone):
+    """The known places of a case with these dicts."""
+    _check_whole(placement, database, nodes)
+    places = _told_places(placement.places_by_pair(database))
+    by_spread = {} if spreads is None else spreads
+    by_row = {} if lone is None else lone
+    if not _are_nodes(by_spread, _keys_of("by", places), nodes):
+        raise InvalidCase("the spreads are no dict from just the places by spreads to nodes")
+    if not _are_nodes(by_row, _keys_of("any", places), nodes):
+        raise InvalidCase("the lone rows are no dict from just the places of lone rows to nodes")
+    told = {FIRST: 0}
+    told.update({("by", spread, integers): by_spread[spread, integers] for spread, integers in by_spread})
+    told.update({("any", table, row): by_row[table, row] for table, row in by_row})
+    return KnownPlaces({place: told[place] for place in places})
+
+
 class Case:
     """A placement, a database, a number of nodes and a node for each place. It never changes."""
 
     def __init__(self, placement, database, *, nodes, spreads=None, lone=None):
-        _check_whole(placement, database, nodes)
-        found = placement.places_by_pair(database)
-        places = _told_places(found)
-        by_spread = {} if spreads is None else spreads
-        by_row = {} if lone is None else lone
-        if not _are_nodes(by_spread, _keys_of("by", places), nodes):
-            raise InvalidCase("the spreads are no dict from just the places by spreads to nodes")
-        if not _are_nodes(by_row, _keys_of("any", places), nodes):
-            raise InvalidCase("the lone rows are no dict from just the places of lone rows to nodes")
-        told = {FIRST: 0}
-        told.update({("by", spread, integers): by_spread[spread, integers] for spread, integers in by_spread})
-        told.update({("any", table, row): by_row[table, row] for table, row in by_row})
-        self._fill(placement, database, nodes, {place: told[place] for place in places}, found)
-
-    def _fill(self, placement, database, nodes, places, found):
-        """Take checked values: the ascending dict of the places, and the places of each pair."""
+        # Places that the package has found itself are not checked again.
+        is_known = isinstance(spreads, KnownPlaces)
+        known = spreads if is_known else _checked_places(placement, database, nodes, spreads, lone)
         self._placement = placement
         self._database = database
         self._nodes = nodes
-        self._places = places
+        self._places = known.by_place
+        # Where each row lies, and the rows of each node, are found when they are first asked for.
+        self._lies = None
+        self._rows = None
+
+    def _deal(self):
+        """Find where each row lies."""
+        found = self._placement.places_by_pair(self._database)
         lies = {}
-        rows = [{name: [] for name in database.rows} for _ in range(nodes)]
+        rows = [{name: [] for name in self._database.rows} for _ in range(self._nodes)]
         for pair in found:
             table, row = pair
-            there = list(range(nodes)) if ALL in found[pair] else [places[place] for place in found[pair]]
+            there = list(range(self._nodes)) if ALL in found[pair] else [self._places[place] for place in found[pair]]
             told = sorted(set(there))
             lies[pair] = tuple(told)
             for node in told:
@@ -110,18 +126,27 @@ class Case:
         self._lies = lies
         self._rows = rows
 
+    def lies(self):
+        """A dict from the pairs (table, row) to the ascending tuples of the nodes where they lie."""
+        if self._lies is None:
+            self._deal()
+        return dict(self._lies)
+
+    def _rows_dealt(self):
+        """For each node a dict from all tables to the lists of the rows that lie there."""
+        if self._rows is None:
+            self._deal()
+        return self._rows
+
     @classmethod
     def of_places(cls, placement, database, nodes, places):
         """The case with the nodes of a dict from just the places of all rows."""
         _check_whole(placement, database, nodes)
-        found = placement.places_by_pair(database)
-        wanted = {place: True for place in _told_places(found)}
+        wanted = {place: True for place in _told_places(placement.places_by_pair(database))}
         if not _are_nodes(places, wanted, nodes) or places.get(FIRST, 0) != 0:
             raise InvalidCase("the places are no dict from just the places of all rows to nodes")
-        # A case without rows has no places that could be wrong.
-        made = cls(placement, Database.empty(placement.schema), nodes=nodes)
-        made._fill(placement, database, nodes, {place: places[place] for place in wanted}, found)
-        return made
+        known = KnownPlaces({place: places[place] for place in wanted})
+        return cls(placement, database, nodes=nodes, spreads=known)
 
     @classmethod
     def single(cls, placement, database):
@@ -129,7 +154,7 @@ class Case:
         check_placement(placement)
         check_database(placement.schema, database)
         places = _told_places(placement.places_by_pair(database))
-        return cls.of_places(placement, database, 1, {place: 0 for place in places})
+        return cls(placement, database, nodes=1, spreads=KnownPlaces({place: 0 for place in places}))
 
     @property
     def placement(self):
@@ -167,13 +192,16 @@ class Case:
             raise UnknownName(table)
         if (table, row) not in self._database:
             raise MissingRow(row)
+        if self._lies is None:
+            self._deal()
         return self._lies[table, row]
 
     def rows_at(self, node):
         """A dict from all tables to the ascending tuples of the rows that lie on a node."""
         if not _is_below(node, self._nodes):
             raise InvalidNumber(node)
-        return {table: tuple(self._rows[node][table]) for table in self._rows[node]}
+        rows = self._rows_dealt()[node]
+        return {table: tuple(rows[table]) for table in rows}
 
     def _numbers_on(self, query, rows):
         return numbers_on(query.form, query.clauses, rows, MAX_MATCHES)
@@ -184,7 +212,7 @@ class Case:
 
     def _combined_numbers(self, query):
         """The numbers of the combined answer, some of them perhaps 0."""
-        return _together(query.form, [self._numbers_on(query, rows) for rows in self._rows])
+        return _together(query.form, [self._numbers_on(query, rows) for rows in self._rows_dealt()])
 
     def __call__(self, query):
         check_query_of(self._placement.schema, query)
@@ -217,7 +245,7 @@ class Case:
         """The case with another number of nodes."""
         if not is_number(nodes) or not self._least_nodes() <= nodes <= MAX_NODES:
             raise InvalidNumber(nodes)
-        return Case.of_places(self._placement, self._database, nodes, self._places)
+        return Case(self._placement, self._database, nodes=nodes, spreads=KnownPlaces(self._places))
 
     def _least_nodes(self):
         """The least number of nodes that is greater than the node of each place."""

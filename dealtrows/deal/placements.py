@@ -2,7 +2,7 @@
 
 from dealtrows.base.databases import Database
 from dealtrows.base.names import are_names, is_ascending, is_name, is_plain, is_row
-from dealtrows.base.schemas import Schema, check_schema, picked
+from dealtrows.base.schemas import check_schema
 from dealtrows.errors import InvalidDatabase, InvalidOperation, InvalidPlacement, InvalidRule, MissingRow, UnknownName
 
 MAX_RULES = 2
@@ -80,28 +80,45 @@ def check_database(schema, value):
         raise InvalidDatabase("this is no database of an equal schema")
 
 
+class KnownRules:
+    """A schema and the rules of all of its tables, which need no check."""
+
+    def __init__(self, schema, by_table):
+        self.of_schema = schema
+        self.by_table = by_table
+
+
+def _checked_rules(schema, rules):
+    """The known rules of a placement of the schema."""
+    check_schema(schema)
+    _check_rules(schema, rules)
+    return KnownRules(schema, {table: rules[table] for table in sorted(rules)})
+
+
+def _way_of(schema, table, rule):
+    """A rule as a word, a name, and the places of columns in a row."""
+    if rule[0] == "by":
+        columns = schema.columns_of(table)
+        return (rule[0], rule[1], [columns.index(column) for column in rule[2]])
+    return (rule[0], rule[1] if rule[0] == "with" else table, [])
+
+
 class Placement:
     """The rules of all tables of a schema. It never changes."""
 
     def __init__(self, schema, **rules):
-        check_schema(schema)
-        _check_rules(schema, rules)
-        self._fill(schema, rules)
-
-    def _fill(self, schema, rules):
-        self._schema = schema
-        self._rules = {table: rules[table] for table in sorted(rules)}
-        self._spreads = dict(arities_of(rules))
+        # Rules that were checked come with their schema, as tables called schema or self cannot be keywords.
+        known = schema if isinstance(schema, KnownRules) else _checked_rules(schema, rules)
+        self._schema = known.of_schema
+        self._rules = known.by_table
+        self._spreads = dict(arities_of(known.by_table))
+        self._ways = {table: [_way_of(known.of_schema, table, rule) for rule in known.by_table[table]]
+                      for table in known.by_table}
 
     @classmethod
     def of(cls, schema, rules):
         """The placement with the rules of a dict."""
-        check_schema(schema)
-        _check_rules(schema, rules)
-        # Tables called schema or self cannot be keywords, so some placement is made and gets the rules.
-        made = cls(Schema({"a": ("a",)}), a=(ALL,))
-        made._fill(schema, rules)
-        return made
+        return cls(_checked_rules(schema, rules))
 
     @staticmethod
     def is_rule(schema, table, value):
@@ -145,22 +162,30 @@ class Placement:
     def _places_found(self, database, table, row):
         """The places of a row that is there, perhaps repeated."""
         found = []
-        for rule in self._rules[table]:
-            if rule[0] == "by":
-                found.append(("by", rule[1], picked(self._schema.columns_of(table), row, rule[2])))
-            elif rule[0] == "with":
-                parent = database.pair_above(rule[1], row)
+        for word, name, at in self._ways[table]:
+            if word == "by":
+                found.append((word, name, tuple([row[place] for place in at])))
+            elif word == "with":
+                parent = database.pair_above(name, row)
                 found.extend(self._places_found(database, parent[0], parent[1]))
-            elif rule[0] == "any":
-                found.append(("any", table, row))
+            elif word == "any":
+                found.append((word, table, row))
             else:
-                found.append(rule)
+                found.append((word,))
         return found
+
+    def _places_told(self, database, table, row):
+        """The ascending tuple of the places of a row that is there."""
+        found = self._places_found(database, table, row)
+        return tuple(sorted(set(found))) if len(found) > 1 else tuple(found)
 
     def places_by_pair(self, database):
         """A dict from the pairs (table, row) of a database of this schema to the ascending tuples of their places."""
-        return {(table, row): tuple(sorted(set(self._places_found(database, table, row))))
-                for table, row in database.pairs()}
+        return {(table, row): self._places_told(database, table, row) for table, row in database.pairs()}
+
+    def ways_of(self, table):
+        """For each rule of a table its word, its name, and the places of columns in a row."""
+        return list(self._ways[table])
 
     def places_of(self, database, table, row):
         """The ascending tuple of the places of a row."""
@@ -169,7 +194,7 @@ class Placement:
             raise UnknownName(table)
         if (table, row) not in database:
             raise MissingRow(row)
-        return tuple(sorted(set(self._places_found(database, table, row))))
+        return self._places_told(database, table, row)
 
     def places_in(self, database):
         """The ascending tuple of the places of all rows."""

@@ -2,7 +2,7 @@
 
 from dealtrows.base.databases import Database, many_rows, rows_of
 from dealtrows.base.names import is_integer, is_name, is_row
-from dealtrows.deal.cases import MAX_NODES, Case
+from dealtrows.deal.cases import MAX_NODES, Case, KnownPlaces
 from dealtrows.deal.placements import ALL, FIRST, check_placement
 from dealtrows.errors import InvalidNumber, InvalidOperation, InvalidRow, InvalidRule, MissingRow, NoNodes, UnknownName
 from dealtrows.live.history import Group, History, Trial
@@ -45,14 +45,8 @@ def _emptiest(case):
     return many.index(min(many))
 
 
-def _nodes_by_pair(case):
-    """A dict from the pairs (table, row) of a case to the nodes where they lie."""
-    return {(table, row): case.nodes_of(table, row) for table, row in case.database.pairs()}
-
-
-def _moves_between(one, other):
-    """What has other nodes in another case: the ascending tuple of (table, row, before, after)."""
-    old, new = _nodes_by_pair(one), _nodes_by_pair(other)
+def _moves_between(old, new):
+    """The ascending tuple of (table, row, before, after) for the rows with other nodes, by the nodes of all rows."""
     told = [(table, row, old.get((table, row), ()), new.get((table, row), ()))
             for table, row in sorted(set([*old, *new]))]
     return tuple([move for move in told if move[2] != move[3]])
@@ -63,6 +57,7 @@ class State:
 
     def __init__(self, kept, pledged):
         self.kept = kept
+        self.nodes_by_pair = kept.lies()
         self.pledged = pledged
 
 
@@ -105,7 +100,7 @@ class Store:
     @property
     def moves(self):
         """The ascending tuple of (table, row, before, after) for the rows that were moved last."""
-        return _moves_between(self._past.before.kept, self._past.now.kept)
+        return _moves_between(self._past.before.nodes_by_pair, self._past.now.nodes_by_pair)
 
     def case(self):
         """The case that the store makes now."""
@@ -123,7 +118,7 @@ class Store:
         """Change to the case with these rows, and return the moves."""
         places = [place for place in placement.places_in(database) if place != ALL]
         told = {place: self._node_of(place, nodes, lone) for place in places}
-        kept = Case.of_places(placement, database, nodes, told)
+        kept = Case(placement, database, nodes=nodes, spreads=KnownPlaces(told))
         self._past.change(State(kept, self._past.now.pledged))
         return self.moves
 
