@@ -359,6 +359,7 @@ class CodeTest(unittest.TestCase):
                 called = getattr(node.func, "attr", name_called(node)) if isinstance(node, ast.Call) else None
                 if called in yielding:
                     walks = isinstance(above[node], (ast.For, ast.comprehension)) and above[node].iter is node
+                    walks = walks or isinstance(above[node], ast.YieldFrom)
                     self.assertTrue(walks or name_called(above[node]) in (*MAKERS, "enumerate", "zip"), (name, node.lineno))
                     for part in [part for part in node.args if not isinstance(part, ast.Lambda)]:
                         self.assertFalse([one for one in ast.walk(part) if isinstance(one, ast.Call)], (name, node.lineno))
@@ -394,8 +395,12 @@ class CodeTest(unittest.TestCase):
                 if isinstance(item, ast.FunctionDef):
                     named = [getattr(part, "id", "property") for part in item.decorator_list]
                     (read if "property" in named else plain).add(item.name)
+        stored = {node.attr for _, node in self.nodes(ast.Attribute) if isinstance(node.ctx, ast.Store)}
         self.assertFalse(read & plain)
         self.assertFalse(read & METHODS)
+        self.assertFalse(read & stored)
+        self.assertFalse(plain & stored)
+        self.assertFalse(stored & (METHODS - {"count", "index", "title", "find", "get", "join", "lower", "upper", "split"}))
 
 
 if __name__ == "__main__":

@@ -38,15 +38,15 @@ class Chain:
         self._is_possible = one is not None and not any([low == high for low, high in tests])
         self._base = _integers_of(clause, told)
         self._at = {number: at for at, number in enumerate(self._base)}
-        self._steps = [(table, self._step([told.get(term, term) for term in terms], tests))
+        self._joins = [(table, self._step([told.get(term, term) for term in terms], tests))
                        for table, terms in clause.parts]
         at = {number: self._at[number] for number in self._base}
         at.update({name: self._at[told[name]] for name in told})
         self._heads = [at[name] for name in clause.head]
-        self.summed = None if clause.summed is None else at[clause.summed]
-        self.variables = [(name, at[name]) for name in clause.variables]
-        self.parts = [(table, [at[term] for term in terms]) for table, terms in clause.parts]
-        self.ties = [(table, [(place, at[term]) for place, term in enumerate(terms) if term in at])
+        self.summed_at = None if clause.summed is None else at[clause.summed]
+        self.variables_at = [(name, at[name]) for name in clause.variables]
+        self.parts_at = [(table, [at[term] for term in terms]) for table, terms in clause.parts]
+        self.ties_at = [(table, [(place, at[term]) for place, term in enumerate(terms) if term in at])
                      for table, terms in clause.absences]
 
     def _step(self, terms, tests):
@@ -64,14 +64,14 @@ class Chain:
     def is_few(self, rows):
         """Whether there are few choices of a row for each part."""
         many = 1
-        for table, _ in self._steps:
+        for table, _ in self._joins:
             many = many * len(rows.get(table, ()))
         return many <= _FEW
 
     def found(self, rows):
         """The list of what is known by each open match in few rows."""
         found = [self._base] if self._is_possible else []
-        for table, (known, known_at, twins, fresh, tests) in self._steps:
+        for table, (known, known_at, twins, fresh, tests) in self._joins:
             found = _longer(found, _options(rows.get(table, ()), known, twins, fresh), known_at)
             if tests:
                 found = [told for told in found if all([told[low] != told[high] for low, high in tests])]
@@ -79,7 +79,7 @@ class Chain:
 
     def left_of(self, found, rows):
         """Those of the found ones that no absence rules out."""
-        for table, tied in self.ties:
+        for table, tied in self.ties_at:
             there = rows.get(table, ())
             if there and found:
                 keys = {tuple([row[place] for place, _ in tied]): True for row in there}
@@ -92,6 +92,6 @@ class Chain:
 
     def matches_of(self, found):
         """The dicts of the found ones, ascending by their integers."""
-        told = sorted([tuple([known[at] for _, at in self.variables]) for known in found])
-        names = [name for name, _ in self.variables]
+        told = sorted([tuple([known[at] for _, at in self.variables_at]) for known in found])
+        names = [name for name, _ in self.variables_at]
         return [dict(zip(names, numbers)) for numbers in told]

@@ -13,8 +13,8 @@ def value_of(term, match):
 
 
 def values_of(terms, match):
-    """The tuple of the integers of some terms in a match."""
-    return tuple([value_of(term, match) for term in terms])
+    """The tuple of the integers of some terms, none of them free, in a match."""
+    return tuple([match.get(term, term) for term in terms])
 
 
 def pairs_of(clause, match):
@@ -59,7 +59,7 @@ def blockers(clause, rows, match):
 def _tied_terms(clause, rows):
     """Pairs of the tied terms of an absence and a dict of what rows have in its tied columns."""
     found = []
-    for (table, terms), (_, tied) in zip(clause.absences, clause.chain().ties):
+    for (table, terms), (_, tied) in zip(clause.absences, clause.chain().ties_at):
         there = rows.get(table, ())
         # An absence without rows rules out nothing.
         if there:
@@ -92,9 +92,9 @@ def number_of(form, clause, match):
 def _few_numbers(chain, rows):
     """Pairs of a head and what a match adds to its number, for few rows; 1 for each match but in sums."""
     found = chain.left_of(chain.found(rows), rows)
-    if chain.summed is None:
+    if chain.summed_at is None:
         return [(chain.head_of(known), 1) for known in found]
-    return [(chain.head_of(known), known[chain.summed]) for known in found]
+    return [(chain.head_of(known), known[chain.summed_at]) for known in found]
 
 
 def _many_numbers(clause, rows, limit):

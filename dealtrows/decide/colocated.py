@@ -6,9 +6,8 @@ from dealtrows.ask.queries import check_query
 from dealtrows.base.names import are_integers, is_ascending, is_name, is_number, is_plain
 from dealtrows.deal.cases import Case, check_case
 from dealtrows.deal.placements import ALL, FIRST, check_placement, shared_places
-from dealtrows.decide.patterns import Pattern, is_known_pattern, is_pattern, pattern_key, patterns
-from dealtrows.decide.plans import numbered
-from dealtrows.decide.smallcases import plans_of
+from dealtrows.decide.patterns import Pattern, drafts_of, is_pattern, is_pattern_of, pattern_key, patterns
+from dealtrows.decide.smallcases import ground_of
 from dealtrows.errors import InvalidOperation, TooMany
 
 MAX_ROUTE_PLACES = 10
@@ -103,10 +102,13 @@ def is_co_location_table(placement, query, value):
     """Whether the value has each pattern once, in a pair with a co-location of it."""
     _check_both(placement, query)
     _check_kind(placement, query)
+    drafts = drafts_of(query)
     wanted = {pattern_key(pattern): True for pattern in patterns(query)}
     if not isinstance(value, tuple) or len(value) != len(wanted):
         return False
-    if not all([isinstance(pair, tuple) and len(pair) == 2 and is_known_pattern(query, pair[0]) for pair in value]):
+    if not all([isinstance(pair, tuple) and len(pair) == 2 for pair in value]):
+        return False
+    if not all([is_pattern_of(query, drafts, pattern) for pattern, _ in value]):
         return False
     if len(set([pattern_key(pattern) for pattern, _ in value])) != len(wanted):
         return False
@@ -189,11 +191,24 @@ def is_route(placement, query, value):
 
 def _stranded_case(placement, plan):
     """The case of a pattern that gives a node of its own, which is not node 0, to each place but ("first",)."""
-    order = [place for place in numbered(plan.all_places()) if place != FIRST]
+    order = [place for place in plan.all_places if place != FIRST]
     told = {place: node for node, place in enumerate(order, start=1)}
     database = plan.pattern().database
     places = [place for place in placement.places_in(database) if place != ALL]
     return Case.of_places(placement, database, len(order) + 1, {place: told.get(place, 0) for place in places})
+
+
+def _is_told_in(query, plan, route):
+    """Whether some co-location of the pattern of a plan has a place that is asked by a route."""
+    match = plan.deal.draft.match_with(plan.valued)
+    head = values_of(query.clauses[plan.deal.draft.index].head, match)
+    for (chain, _), found in zip(plan.ground.chains, plan.known_matches()):
+        for known in found:
+            if chain.head_of(known) == head:
+                rows = [(table, tuple([known[at] for at in where])) for table, where in chain.parts_at]
+                if _is_told(shared_places([plan.by_pair[row] for row in rows]), route):
+                    return True
+    return False
 
 
 def stranded(placement, query, route):
@@ -202,10 +217,13 @@ def stranded(placement, query, route):
     if not _is_form_of_route(placement, query, route):
         raise InvalidOperation("this is no route")
     _check_kind(placement, query)
-    for plan in plans_of(placement, query):
-        places = [place for _, _, place in _all_of(placement, query, plan.pattern())]
-        if not _is_told(places, route):
-            return _stranded_case(placement, plan)
+    ground = ground_of(placement, query)
+    for entry in ground.entries:
+        # Where the parts of a clause share a place that is always asked, all heads of its patterns are told.
+        if not _is_asked_always(entry[0].shared):
+            plan = ground.plan_of(entry)
+            if not _is_told_in(query, plan, route):
+                return _stranded_case(placement, plan)
     return None
 
 

@@ -1,180 +1,320 @@
-"""Plans: what the small cases of one pattern are made of."""
+"""Plans: what the small cases of one pattern are made of.
 
-from dealtrows.ask.matches import MAX_MATCHES
-from dealtrows.base.databases import Database, rows_of
-from dealtrows.deal.cases import Case
-from dealtrows.deal.placements import ALL, FIRST
-from dealtrows.decide.patterns import bound_of
-from dealtrows.decide.ties import given_places, is_single, open_place, ties_in
-from dealtrows.errors import BrokenConstraint
+A choice of a plan is a layout of its places, a number of nodes, and for each
+tie a set of nodes, an ascending tuple, on which it has a blocking row. One row
+of a given place stands for itself, whatever its nodes are: (0,).
+"""
 
-
-def numbered(places):
-    """The places in the order in which their nodes are numbered."""
-    return [*[place for place in places if place == FIRST], *[place for place in places if place != FIRST]]
-
-
-def node_layouts(places):
-    """The list of the layouts of ascending places, dicts from places to nodes."""
-    found = [()]
-    for _ in places:
-        found = [(*nodes, node) for nodes in found for node in range(len(set(nodes)) + 1)]
-    order = numbered(places)
-    told = [dict(zip(order, nodes)) for nodes in found]
-    return [{place: layout[place] for place in places} for layout in told]
+from dealtrows.base.databases import Database, known_rows
+from dealtrows.base.schemas import picked
+from dealtrows.deal.cases import Case, KnownPlaces
+from dealtrows.deal.placements import ALL
+from dealtrows.decide.drafts import bound_of
+from dealtrows.decide.layouts import all_layouts, apart, counts_by_nodes, many_nodes
+from dealtrows.decide.patterns import drafts_of, pattern_with
+from dealtrows.decide.ties import given_places, is_single, open_place, parent_pair
 
 
-def _apart(places):
-    """The layout that gives a node of its own to each place."""
-    told = {place: node for node, place in enumerate(numbered(places))}
-    return {place: told[place] for place in places}
+def _without_repeats(values):
+    """The tuple of the different values, in their order."""
+    return tuple({value: True for value in values})
 
 
-def _layouts_by_nodes(many):
-    """For each number of nodes from 0 to that of the places: how many layouts of so many places have it."""
-    found = [1]
-    for _ in range(many):
-        longer = [0, *found]
-        for at in range(len(found)):
-            longer[at] += at * found[at]
-        found = longer
-    return found
+def _place_with(way, values):
+    """The place that a place of a draft becomes."""
+    if len(way) == 1:
+        return way
+    return (way[0], way[1], tuple([values[at] for at in way[2]]))
+
+
+class Deal:
+    """A draft, and the places of its lines by a placement, in terms of the draft."""
+
+    def __init__(self, placement, draft, tables):
+        self.draft = draft
+        parents = {(child, name): line for child, name, line in draft.parent_lines}
+        self._ways = [_without_repeats(self._ways_of(placement, parents, line)) for line in range(len(draft.line_terms))]
+        own = [self._ways[line] for line, (table, _) in enumerate(draft.line_terms) if table in tables]
+        self.own = [line for line, (table, _) in enumerate(draft.line_terms) if table in tables]
+        self.many_places = len(_without_repeats([way for ways in own for way in ways if way != ALL]))
+        parts = [self._ways[line] for line in draft.part_lines]
+        told = [ways for ways in parts if ALL not in ways]
+        # Places that all parts have in the draft are places of theirs in each pattern.
+        self.shared = (ALL,) if not told else tuple([way for way in told[0] if all([way in ways for ways in told])])
+
+    def _ways_of(self, placement, parents, line):
+        """The places of a line, perhaps repeated."""
+        table, terms = self.draft.line_terms[line]
+        found = []
+        for word, name, at in placement.ways_of(table):
+            if word == "by":
+                found.append((word, name, tuple([terms[place] for place in at])))
+            elif word == "with":
+                found.extend(self._ways_of(placement, parents, parents[line, name]))
+            elif word == "any":
+                found.append((word, table, tuple(terms)))
+            else:
+                found.append((word,))
+        return found
+
+    def places_with(self, values):
+        """For each line the tuple of the places of its row, perhaps repeated."""
+        return [tuple([_place_with(way, values) for way in ways]) for ways in self._ways]
+
+
+class Ground:
+    """A placement and a query that have small cases, and what their plans have in common."""
+
+    def __init__(self, placement, query):
+        self.ruled = placement
+        self.asked = query
+        self.of_schema = query.schema
+        tables = [table for clause in query.clauses for table, _ in clause.parts]
+        self.deals = [Deal(placement, draft, tables) for draft in drafts_of(query) if draft is not None]
+        self.chains = [(clause.chain(), self._tied_columns(clause.chain())) for clause in query.clauses]
+        self._absent = [table for clause in query.clauses for table, _ in clause.absences]
+        self.has_absences = bool(self._absent)
+        # Each place has a node of its own if the query is distinct and has no absences.
+        self.is_apart = query.form == "distinct" and not self._absent
+        # For each pattern its deal, its values, its number of classes, and its plan if this is made already.
+        self.entries = []
+        self._numbers = {}
+        self._counts = {}
+
+    def counts(self, many):
+        """For each number of nodes how many layouts of so many places have it."""
+        if many not in self._counts:
+            self._counts[many] = counts_by_nodes(many)
+        return self._counts[many]
+
+    def _tied_columns(self, chain):
+        """For each absence of a clause its table, and its tied columns with what they are known by."""
+        return [(table, [(self.of_schema.columns_of(table)[place], at) for place, at in tied]) for table, tied in chain.ties_at]
+
+    def most_places(self):
+        """A number that the places of a pattern do not exceed, or None if there is none that is known."""
+        rules = [self.ruled[table][0][0] for table in self._absent]
+        if "by" in rules:
+            return None
+        more = 1 if "first" in rules else 0
+        return max([0, *[deal.many_places for deal in self.deals]]) + more
+
+    def plan_of(self, entry):
+        """The plan of a pattern."""
+        deal, values, used, plan = entry
+        return Plan(self, deal, values, used) if plan is None else plan
+
+    def number_of(self, pairs):
+        """A number for the rows of a case: equal rows have equal numbers."""
+        return self._numbers.setdefault(pairs, len(self._numbers))
+
+    def key_of(self, case):
+        """What tells a case of the placement apart from others, as the keys of frames do, or None for unknown rows."""
+        pairs = case.database.pairs()
+        if pairs not in self._numbers:
+            return None
+        places = case.places
+        return (self._numbers[pairs], case.nodes, tuple([places[place] for place in places]))
 
 
 class Plan:
     """A pattern of a query with its places and its ties."""
 
-    def __init__(self, placement, query, pattern):
-        self._deal = placement
-        self._asked = query
-        self._pattern = pattern
-        rows = pattern.database
-        tables = [table for clause in query.clauses for table, _ in clause.parts]
-        found = placement.places_by_pair(rows)
-        told = [place for pair in found if pair[0] in tables for place in found[pair]]
-        self._own = tuple(sorted(set([place for place in told if place != ALL])))
-        # Patterns have at most eight rows, so that their open matches are never too many.
-        self._ties = ties_in(query, rows.rows, MAX_MATCHES)
-        self._given = [given_places(placement, rows, tie) for tie in self._ties]
-        more = [place for given in self._given if given is not None for place in given]
-        self._wanted = tuple(sorted(set([place for place in [*told, *more] if place != ALL])))
+    def __init__(self, ground, deal, values, used):
+        self.ground = ground
+        self.deal = deal
+        self.valued = values
+        self._used = used
+        self.line_pairs = deal.draft.pairs_with(values)
+        places = deal.places_with(values)
+        # A row of several lines has the same places by each of them.
+        self.by_pair = dict(zip(self.line_pairs, places))
+        told = [place for line in deal.own for place in places[line]]
+        self.own_places = tuple(sorted(set([place for place in told if place != ALL])))
+        self.ties = ()
+        self.given = []
+        self._single = []
+        self.all_places = self.own_places
+        if ground.has_absences:
+            self._take_ties()
+        self._blocking = {}
+        self._frames = {}
+
+    def rows_by_table(self):
+        """The rows of the pattern, as lists by tables."""
+        found = {}
+        for table, row in self.by_pair:
+            found.setdefault(table, []).append(row)
+        return found
+
+    def known_matches(self):
+        """For each clause the list of what is known by its open matches in the pattern."""
+        rows = self.rows_by_table()
+        return [chain.found(rows) for chain, _ in self.ground.chains]
+
+    def ties_of(self, clause, known):
+        """The ties of an open match of a clause, one for each absence."""
+        return [(table, tuple([(column, known[at]) for column, at in tied]))
+                for table, tied in self.ground.chains[clause][1]]
+
+    def _take_ties(self):
+        """Find the ties in the rows of the pattern, and the places that are given for them."""
+        told = [tie for clause, found in enumerate(self.known_matches()) for known in found
+                for tie in self.ties_of(clause, known)]
+        self.ties = tuple(sorted(set(told)))
+        self._single = [is_single(self.ground.of_schema, tie) for tie in self.ties]
+        self.given = [given_places(self.ground.ruled, self.by_pair, tie) for tie in self.ties]
+        more = [place for places in self.given if places is not None for place in places if place != ALL]
+        self.all_places = tuple(sorted(set([*self.own_places, *more])))
 
     def pattern(self):
         """The pattern."""
-        return self._pattern
-
-    def own_places(self):
-        """The ascending tuple of the places of the rows in tables of parts."""
-        return self._own
-
-    def all_places(self):
-        """The ascending tuple of these places and of the given ones of ties."""
-        return self._wanted
-
-    def is_apart(self):
-        """Whether each place has a node of its own: the query is distinct and has no absences."""
-        return self._asked.form == "distinct" and not any([clause.absences for clause in self._asked.clauses])
+        return pattern_with(self.deal.draft, self.valued, self._used)
 
     def _sets_of(self, at, nodes):
-        """The sets of nodes, ascending tuples, on which a tie can have a blocking row.
-
-        One row of a given place stands for itself, whatever its nodes are: (0,).
-        """
-        if self._given[at] is not None:
+        """The sets of nodes on which a tie can have a blocking row."""
+        if self.given[at] is not None:
             return [(), (0,)]
         found = [(), *[(node,) for node in range(nodes)]]
-        if not is_single(self._asked.schema, self._ties[at]) and nodes > 1:
-            if self._asked.form == "distinct":
+        if nodes > 1 and not self._single[at]:
+            if self.ground.asked.form == "distinct":
                 found.append(tuple(range(nodes)))
             else:
                 found.extend([(low, high) for high in range(nodes) for low in range(high)])
         return found
 
+    def _many_sets_of(self, at, nodes):
+        """How many these sets are."""
+        if self.given[at] is not None:
+            return 2
+        if nodes == 1 or self._single[at]:
+            return 1 + nodes
+        return 2 + nodes if self.ground.asked.form == "distinct" else 1 + nodes + nodes * (nodes - 1) // 2
+
     def _many_sets(self, nodes):
         """How many choices of sets of nodes there are for all ties."""
         many = 1
-        for at in range(len(self._ties)):
-            many = many * len(self._sets_of(at, nodes))
+        for at in range(len(self.ties)):
+            many = many * self._many_sets_of(at, nodes)
         return many
 
     def many_choices(self):
         """How many choices there are, also those that break keys."""
-        if self.is_apart():
+        if self.ground.is_apart:
             return 1
-        by_nodes = _layouts_by_nodes(len(self._wanted))
-        total = 0
-        for used in range(len(by_nodes)):
-            least = max(1, used)
-            total += by_nodes[used] * (self._many_sets(least) + self._many_sets(least + 1))
-        return total
+        by_nodes = self.ground.counts(len(self.all_places))
+        if not self.ties:
+            return 2 * sum(by_nodes)
+        told = [(number, max(1, used)) for used, number in enumerate(by_nodes)]
+        return sum([number * (self._many_sets(least) + self._many_sets(least + 1)) for number, least in told])
 
-    def _all_layouts(self):
-        """The layouts with the numbers of nodes of their cases."""
-        if self.is_apart():
-            return [(_apart(self._wanted), max(1, len(self._wanted)))]
-        found = []
-        for layout in node_layouts(self._wanted):
-            least = max([0, *[layout[place] for place in layout]]) + 1
-            found.extend([(layout, least), (layout, least + 1)])
-        return found
+    def laid_out(self):
+        """The list of the layouts, each with a number of nodes."""
+        if self.ground.is_apart:
+            return [(apart(self.all_places), max(1, len(self.all_places)))]
+        told = [(layout, many_nodes(layout)) for layout in all_layouts(self.all_places)]
+        return [(layout, least + more) for layout, least in told for more in (0, 1)]
 
-    def _choices_of_sets(self, nodes):
-        """The list of the tuples with a set of nodes for each tie."""
+    def sets(self, nodes):
+        """The list of the tuples with a set of nodes for each tie, of those that keep all keys."""
         found = [()]
-        for at in range(len(self._ties)):
+        for at in range(len(self.ties)):
             sets = self._sets_of(at, nodes)
             found = [(*told, chosen) for told in found for chosen in sets]
-        return found
+        return found if not self.ties else [chosen for chosen in found if self._blocking_with(chosen) is not None]
 
     def _blocking_rows(self, sizes):
         """For each tie so many blocking rows, with new integers in the columns that are not tied."""
-        least = -bound_of(self._asked)
+        least = -bound_of(self.ground.asked)
         found = []
-        for (table, pairs), size in zip(self._ties, sizes):
+        for (table, pairs), size in zip(self.ties, sizes):
             told = dict(pairs)
             rows = []
             for _ in range(size):
                 row = []
-                for column in self._asked.schema.columns_of(table):
+                for column in self.ground.of_schema.columns_of(table):
                     if column not in told:
                         least -= 1
                     row.append(told.get(column, least))
-                rows.append(tuple(row))
+                rows.append((table, tuple(row)))
             found.append(rows)
         return found
 
-    def _database_with(self, blocking):
-        """The database of the pattern with some blocking rows, or None if they break a key."""
-        pairs = list(self._pattern.database.pairs())
-        for at in range(len(blocking)):
-            table = self._ties[at][0]
-            pairs.extend([(table, row) for row in blocking[at]])
-        try:
-            return Database(self._asked.schema, rows_of(pairs))
-        except BrokenConstraint:
-            return None
+    def _keep_keys(self, pairs):
+        """Whether no two of some different pairs agree on a key."""
+        schema = self.ground.of_schema
+        keys = [(table, key, picked(schema.columns_of(table), row, key))
+                for table, row in pairs for key in schema.keys_of(table)]
+        return len(set(keys)) == len(keys)
 
-    def _case_with(self, database, blocking, chosen, layout, nodes):
-        """The case with these rows: places that are not told, those of parents, are node 0."""
-        told = {place: layout[place] for place in layout}
-        for at in range(len(self._ties)):
-            if self._given[at] is None:
-                for row, node in zip(blocking[at], chosen[at]):
-                    told[open_place(self._deal, self._ties[at], row)] = node
-        places = [place for place in self._deal.places_in(database) if place != ALL]
-        return Case.of_places(self._deal, database, nodes, {place: told.get(place, 0) for place in places})
+    def _blocking_with(self, chosen):
+        """The blocking rows for some sets of nodes, by ties, or None if they break a key."""
+        sizes = tuple([len(nodes) for nodes in chosen])
+        if sizes not in self._blocking:
+            found = self._blocking_rows(sizes)
+            is_kept = self._keep_keys([pair for pairs in found for pair in pairs])
+            self._blocking[sizes] = found if is_kept else None
+        return self._blocking[sizes]
 
-    def planned_cases(self, is_wanted):
-        """The cases of all layouts that are wanted."""
-        # Cases with equally many rows for each tie have the same rows.
-        made = {}
-        for layout, nodes in self._all_layouts():
-            if is_wanted(layout):
-                for chosen in self._choices_of_sets(nodes):
-                    sizes = tuple([len(told) for told in chosen])
-                    if sizes not in made:
-                        blocking = self._blocking_rows(sizes)
-                        made[sizes] = (self._database_with(blocking), blocking)
-                    database, blocking = made[sizes]
-                    if database is not None:
-                        yield self._case_with(database, blocking, chosen, layout, nodes)
+    def frame(self, chosen):
+        """What cases with so many blocking rows, which break no key, have in common."""
+        sizes = tuple([len(nodes) for nodes in chosen])
+        if sizes not in self._frames:
+            self._frames[sizes] = Frame(self, self._blocking_with(chosen))
+        return self._frames[sizes]
+
+
+class Frame:
+    """The rows of cases of a plan with equally many blocking rows, and the places of these rows."""
+
+    def __init__(self, plan, blocking):
+        self._plan = plan
+        self._more = [pair for pairs in blocking for pair in pairs]
+        self._pairs = tuple(sorted([*plan.by_pair, *self._more]))
+        self._database = None
+        self._number = plan.ground.number_of(self._pairs)
+        at = {place: index for index, place in enumerate(plan.all_places)}
+        told = {place: at[place] for place in self._told_places(blocking)}
+        # All other places, of parents, are node 0, which stands behind the nodes of the layout.
+        zero = len(at)
+        others = [place for pair in plan.by_pair for place in plan.by_pair[pair] if place != ALL and place not in told]
+        told.update({place: zero for place in others})
+        found = [open_place(plan.ground.ruled, plan.ties[index], row) for index, pairs in enumerate(blocking)
+                 if plan.given[index] is None for _, row in pairs]
+        told.update({place: zero + 1 + index for index, place in enumerate(found)})
+        self._places = sorted(told)
+        self._where = [told[place] for place in self._places]
+
+    def _told_places(self, blocking):
+        """The places of the layout that rows have, those of parts and the given ones of ties with a blocking row."""
+        plan = self._plan
+        if len(plan.all_places) == len(plan.own_places):
+            return plan.all_places
+        more = [place for pairs, given in zip(blocking, plan.given) if pairs and given is not None for place in given]
+        return [place for place in plan.all_places if place in plan.own_places or place in more]
+
+    def _made_database(self):
+        """The database of these rows."""
+        plan = self._plan
+        schema = plan.ground.of_schema
+        parents = plan.deal.draft.parents_with(plan.line_pairs)
+        parents.update({(name, row): parent_pair(schema, plan.by_pair, table, row, name)
+                        for table, row in self._more for name in schema.references_of(table)})
+        return Database(schema, known_rows(schema, self._pairs, parents))
+
+    def nodes_of(self, layout, chosen):
+        """The tuple of the nodes of the ascending places."""
+        more = [node for given, nodes in zip(self._plan.given, chosen) if given is None for node in nodes]
+        told = [*layout, 0, *more]
+        return tuple([told[at] for at in self._where])
+
+    def key(self, nodes, found):
+        """What tells a case with so many nodes, and these nodes of its places, apart from others of its ground."""
+        return (self._number, nodes, found)
+
+    def case(self, nodes, found):
+        """The case with so many nodes, and these nodes of its places."""
+        if self._database is None:
+            self._database = self._made_database()
+        known = KnownPlaces(dict(zip(self._places, found)))
+        return Case(self._plan.ground.ruled, self._database, nodes=nodes, spreads=known)

@@ -41,29 +41,28 @@ def _closures(query, case):
 
 def _many_bits(mask):
     """How many bits of a mask are set."""
-    return len([at for at in range(mask.bit_length()) if mask >> at & 1])
+    return f"{mask:b}".count("1")
 
 
 class Closure:
     """The open matches in the closure of one of them, and the rows of a case that block them."""
 
-    def __init__(self, query, case, pairs):
+    def __init__(self, query, case, pairs, lies):
         self._asked = query
         self._pairs = pairs
-        rows = {table: [] for table in case.database.rows}
+        rows = {}
         for table, row in pairs:
-            rows[table].append(row)
+            rows.setdefault(table, []).append(row)
         told = [(clause, match) for clause in query.clauses for match in open_list(clause, rows, MAX_MATCHES)]
-        found = [blockers(clause, case.database.rows, match) for clause, match in told]
+        found = [blockers(clause, case.database.rows, match) if clause.absences else () for clause, match in told]
         self._blocking = tuple(sorted(set([pair for stops in found for pair in stops])))
-        lies = [case.nodes_of(table, row) for table, row in self._blocking]
-        self._at = [_mask([node in nodes for nodes in lies]) for node in range(case.nodes)]
-        self._matches = [self._weighed(case, told[at][0], told[at][1], found[at]) for at in range(len(told))]
+        self._at = [_mask([node in lies[pair] for pair in self._blocking]) for node in range(case.nodes)]
+        self._matches = [self._weighed(lies, told[at][0], told[at][1], found[at]) for at in range(len(told))]
 
-    def _weighed(self, case, clause, match, stops):
+    def _weighed(self, lies, clause, match, stops):
         """The head and the number of a match, its nodes, and which rows block it."""
-        lies = [case.nodes_of(table, row) for table, row in pairs_of(clause, match)]
-        nodes = [node for node in range(case.nodes) if all([node in told for told in lies])]
+        first, *rest = [lies[pair] for pair in pairs_of(clause, match)]
+        nodes = [node for node in first if all([node in told for told in rest])]
         number = number_of(self._asked.form, clause, match)
         return (values_of(clause.head, match), number, nodes, _mask([pair in stops for pair in self._blocking]))
 
@@ -91,9 +90,14 @@ class Closure:
 
 
 def smaller_pairs(query, case):
-    """The pairs of a counterexample with fewer rows in a counterexample, or None if it is tight."""
+    """The pairs of a counterexample with fewer rows in a counterexample, or None if it is tight.
+
+    They make a tight one: those of an open match with fewer rows in its closure, or with fewer rows that block,
+    are looked at before.
+    """
+    lies = case.lies()
     for pairs in _closures(query, case):
-        found = Closure(query, case, pairs).wrong_pairs(len(case) - 1)
+        found = Closure(query, case, pairs, lies).wrong_pairs(len(case) - 1)
         if found is not None:
             return found
     return None

@@ -5,8 +5,8 @@ from dealtrows.ask.queries import check_query
 from dealtrows.base.names import is_ascending
 from dealtrows.deal.cases import Case
 from dealtrows.deal.placements import check_placement, is_place
-from dealtrows.decide.patterns import patterns
-from dealtrows.decide.plans import Plan, node_layouts
+from dealtrows.decide.layouts import all_layouts
+from dealtrows.decide.plans import Ground, Plan
 from dealtrows.decide.ties import ties_in
 from dealtrows.errors import InvalidOperation, TooMany
 
@@ -43,19 +43,37 @@ def layouts(places):
         raise InvalidOperation("these are no ascending tuple of places")
     if len(places) > MAX_PLACES:
         raise TooMany(MAX_PLACES)
-    for layout in node_layouts(places):
-        yield layout
+    for layout in all_layouts(places):
+        yield dict(zip(places, layout))
 
 
-def plans_of(placement, query):
-    """The plans of all patterns, refused if they have too many places or cases."""
-    check_decidable(placement, query)
-    found = [Plan(placement, query, pattern) for pattern in patterns(query)]
-    if any([len(plan.all_places()) > MAX_PLACES for plan in found]):
-        raise TooMany(MAX_PLACES)
-    if sum([plan.many_choices() for plan in found]) > MAX_CASES:
+def _entries_of(ground):
+    """The entries of all patterns of a ground, refused if they have too many places or cases."""
+    most = ground.most_places()
+    # Where no pattern can have too many places, there is no reason to look on when there are too many cases.
+    is_narrow = most is not None and most <= MAX_PLACES
+    found = []
+    total = 0
+    for deal in ground.deals:
+        for values, used in deal.draft.valuations():
+            plan = None if is_narrow and ground.is_apart else Plan(ground, deal, values, used)
+            if plan is not None and len(plan.all_places) > MAX_PLACES:
+                raise TooMany(MAX_PLACES)
+            total += 1 if plan is None else plan.many_choices()
+            if is_narrow and total > MAX_CASES:
+                raise TooMany(MAX_CASES)
+            found.append((deal, values, used, plan))
+    if total > MAX_CASES:
         raise TooMany(MAX_CASES)
     return found
+
+
+def ground_of(placement, query):
+    """The ground of a placement and a query, with its entries."""
+    check_decidable(placement, query)
+    ground = Ground(placement, query)
+    ground.entries = _entries_of(ground)
+    return ground
 
 
 def case_key(case):
@@ -64,22 +82,42 @@ def case_key(case):
     return (case.nodes, case.database.pairs(), tuple([(place, places[place]) for place in places]))
 
 
+def _choices_of(plan):
+    """For all choices of a plan their keys, their frames, their numbers of nodes and the nodes of their places."""
+    found = []
+    for layout, nodes in plan.laid_out():
+        for chosen in plan.sets(nodes):
+            frame = plan.frame(chosen)
+            told = frame.nodes_of(layout, chosen)
+            found.append((frame.key(nodes, told), frame, nodes, told))
+    return found
+
+
 def small_cases(placement, query):
     """The small cases, each once."""
+    ground = ground_of(placement, query)
     seen = {}
-    for plan in plans_of(placement, query):
-        for case in plan.planned_cases(lambda layout: True):
-            key = case_key(case)
+    for entry in ground.entries:
+        for key, frame, nodes, told in _choices_of(ground.plan_of(entry)):
             # Patterns of several clauses can make the same case, and layouts of given places without a row.
             if key not in seen:
                 seen[key] = True
-                yield case
+                yield frame.case(nodes, told)
+
+
+def _is_case_of(ground, entry, case):
+    """Whether a case of the placement is a small case of a pattern."""
+    plan = ground.plan_of(entry)
+    pairs = case.database.pairs()
+    if not all([pair in pairs for pair in plan.by_pair]):
+        return False
+    keys = [key for key, _, _, _ in _choices_of(plan)]
+    return ground.key_of(case) in keys
 
 
 def is_small_case(placement, query, value):
     """Whether the value is a small case."""
-    found = plans_of(placement, query)
+    ground = ground_of(placement, query)
     if not isinstance(value, Case) or value.placement != placement:
         return False
-    wanted = case_key(value)
-    return any([case_key(case) == wanted for plan in found for case in plan.planned_cases(lambda layout: True)])
+    return any([_is_case_of(ground, entry, value) for entry in ground.entries])

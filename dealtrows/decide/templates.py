@@ -107,31 +107,46 @@ class Chase:
         return None if self._fails or same else (self._lines, self._terms)
 
 
-def listed(schema, lines, parts):
-    """The lines in the order of the document: the parts, then the parents of each line, each once."""
+def _listed(schema, lines, parts):
+    """The lines in the order of the document, and triples of a line, a reference and the parent by it, as places.
+
+    First come the parts, then the parents of each line, each line once.
+    """
     found = _without_repeats(parts)
     references = schema.references
+    above = []
     at = 0
     while at < len(found):
-        names = schema.references_of(found[at][0])
-        above = [parent_line(schema, lines, found[at], references[name]) for name in names]
-        found = _without_repeats([*found, *above])
+        for name in schema.references_of(found[at][0]):
+            parent = parent_line(schema, lines, found[at], references[name])
+            if parent not in found:
+                found = [*found, parent]
+            above.append((at, name, found.index(parent)))
         at += 1
-    return found
+    return (found, above)
 
 
 class Template:
     """The lines of a clause, in the order of the document, and the terms of its variables."""
 
     def __init__(self, schema, lines, terms, parts):
-        self._lines = listed(schema, lines, parts)
+        self._lines, self._above = _listed(schema, lines, parts)
         self._terms = terms
+        self._parts = [self._lines.index(part) for part in parts]
         told = [term for term in terms_of_parts(self._lines) if is_variable(term)]
         self._symbols = tuple(_without_repeats(told))
 
     def lines(self):
         """The list of the lines."""
         return list(self._lines)
+
+    def part_places(self):
+        """The list of the places of the parts among the lines."""
+        return list(self._parts)
+
+    def above(self):
+        """The list of triples of the place of a line, a reference, and the place of the parent by it."""
+        return list(self._above)
 
     def symbols(self):
         """The tuple of the variables and symbols, in the order in which they first stand in the lines."""

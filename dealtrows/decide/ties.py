@@ -1,7 +1,7 @@
 """Ties: what absences ask for in some rows, and where the rows that block them lie."""
 
-from dealtrows.ask.absences import tied_columns
 from dealtrows.ask.joins import open_list, value_of
+from dealtrows.ask.absences import tied_columns
 from dealtrows.base.schemas import picked
 from dealtrows.deal.placements import ALL, FIRST
 
@@ -23,16 +23,22 @@ def ties_in(query, rows, limit):
     return tuple(sorted(set(found)))
 
 
-def _parent_of(schema, database, told, reference):
-    """The row that is the parent, by a reference, of the rows with these integers by columns."""
+def _parent_of(schema, by_pair, told, reference):
+    """The pair that is the parent, by a reference, of the rows with these integers by columns."""
     _, columns, parent, key = reference
     wanted = tuple([told[column] for column in columns])
     named = schema.columns_of(parent)
-    return [row for row in database[parent] if picked(named, row, key) == wanted][0]
+    return [pair for pair in by_pair if pair[0] == parent and picked(named, pair[1], key) == wanted][0]
 
 
-def given_places(placement, database, tie):
-    """The places of the rows that block a tie, or None if they are open."""
+def parent_pair(schema, by_pair, table, row, name):
+    """The pair of the parent, by the reference of this name, of a blocking row."""
+    told = dict(zip(schema.columns_of(table), row))
+    return _parent_of(schema, by_pair, told, schema.references[name])
+
+
+def given_places(placement, by_pair, tie):
+    """The places of the rows that block a tie, by the places of the rows of a pattern, or None if they are open."""
     table, pairs = tie
     told = dict(pairs)
     rule = placement[table][0]
@@ -40,8 +46,7 @@ def given_places(placement, database, tie):
         return (rule,)
     if rule[0] == "with":
         # The rules of absences see to it that the parent is a row of the match.
-        reference = placement.schema.references[rule[1]]
-        return placement.places_of(database, reference[2], _parent_of(placement.schema, database, told, reference))
+        return by_pair[_parent_of(placement.schema, by_pair, told, placement.schema.references[rule[1]])]
     if rule[0] == "by" and all([column in told for column in rule[2]]):
         return (("by", rule[1], tuple([told[column] for column in rule[2]])),)
     return None
@@ -53,6 +58,12 @@ def is_single(schema, tie):
     told = dict(pairs)
     keys = [*schema.keys_of(table), schema.columns_of(table)]
     return any([all([column in told for column in key]) for key in keys])
+
+
+def is_blocked_by(tie, other):
+    """Whether the rows that are made to block another tie block this one, too."""
+    # New integers of such rows are no integers of ties.
+    return tie[0] == other[0] and all([pair in other[1] for pair in tie[1]])
 
 
 def open_place(placement, tie, row):

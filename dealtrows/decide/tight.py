@@ -3,11 +3,12 @@
 from dealtrows.ask.joins import open_list, values_of
 from dealtrows.ask.matches import MAX_MATCHES
 from dealtrows.ask.queries import check_query
-from dealtrows.deal.cases import Case, check_case, is_counterexample
+from dealtrows.deal.cases import Case, KnownPlaces, check_case, is_counterexample
 from dealtrows.deal.placements import ALL, FIRST
-from dealtrows.decide.patterns import pattern_in, pattern_key, values_in_pattern
+from dealtrows.decide.plans import Plan
+from dealtrows.decide.scenes import wrong_case
 from dealtrows.decide.shrink import absent_pairs, smaller_pairs
-from dealtrows.decide.smallcases import plans_of
+from dealtrows.decide.smallcases import ground_of
 from dealtrows.errors import InvalidOperation, TooMany
 
 MAX_BLOCKING = 8
@@ -18,8 +19,8 @@ def subcase(case, *pairs):
     check_case(case)
     database = case.database.closure_of(*pairs)
     places = case.places
-    told = [place for place in case.placement.places_in(database) if place != ALL]
-    return Case.of_places(case.placement, database, case.nodes, {place: places[place] for place in told})
+    told = {place: places[place] for place in case.placement.places_in(database) if place != ALL}
+    return Case(case.placement, database, nodes=case.nodes, spreads=KnownPlaces(told))
 
 
 def is_subcase(case, value):
@@ -58,12 +59,9 @@ def tightened(query, case):
     _check_counterexample(query, case)
     if len(absent_pairs(query, case.database)) > MAX_BLOCKING:
         raise TooMany(MAX_BLOCKING)
-    found = case
-    pairs = smaller_pairs(query, found)
-    while pairs is not None:
-        found = subcase(found, *pairs)
-        pairs = smaller_pairs(query, found)
-    return found
+    # The first one that is found has the fewest rows of a closure, and with them the fewest that block.
+    pairs = smaller_pairs(query, case)
+    return case if pairs is None else subcase(case, *pairs)
 
 
 def _open_matches_of(query, case):
@@ -82,40 +80,35 @@ def _place_before(place, integers):
     return (place[0], place[1], tuple([integers[value] for value in place[2]]))
 
 
-def _nodes_in_case(query, case, plan, index, match):
-    """The nodes of the case for the places of rows of a pattern in tables of parts."""
-    values = values_in_pattern(query, query.clauses[index], case.database, match)
-    integers = {values[number]: number for number in values}
-    places = case.places
-    return [places[_place_before(place, integers)] for place in plan.own_places()]
-
-
 def _is_like(layout, own, nodes):
-    """Whether two of these places are one node in a layout exactly if their nodes in the case are one."""
-    told = [layout[place] for place in own]
+    """Whether two of the own places are one node in a layout exactly if their nodes in the case are one."""
+    told = [layout[at] for at in own]
     return [told.index(node) for node in told] == [nodes.index(node) for node in nodes]
 
 
-def _wrong_case(query, plan, nodes):
-    """A counterexample made from a plan and the nodes of its own places, or None."""
-    own = plan.own_places()
-    for case in plan.planned_cases(lambda layout: plan.is_apart() or _is_like(layout, own, nodes)):
-        if not case.is_right(query):
-            return case
-    return None
+def _wrong_case_like(plan, nodes):
+    """A counterexample made from a plan and the nodes, in a case, of its own places, or None."""
+    own = [plan.all_places.index(place) for place in plan.own_places]
+    told = plan.laid_out()
+    if not plan.ground.is_apart:
+        told = [(layout, many) for layout, many in told if _is_like(layout, own, nodes)]
+    return wrong_case(plan, told)
 
 
 def small_case_of(query, case):
     """A small case that is a counterexample and has the pattern of an open match in a counterexample."""
     _check_counterexample(query, case)
-    plans = {pattern_key(plan.pattern()): plan for plan in plans_of(case.placement, query)}
+    ground = ground_of(case.placement, query)
+    deals = {deal.draft.index: deal for deal in ground.deals}
+    places = case.places
     seen = {}
     for index, match in _open_matches_of(query, case):
-        key = pattern_key(pattern_in(query, index, case.database, match))
-        nodes = _nodes_in_case(query, case, plans[key], index, match)
-        told = (key, tuple([nodes.index(node) for node in nodes]))
+        values, used, integers = deals[index].draft.values_of_match(case.database, match)
+        plan = Plan(ground, deals[index], values, used)
+        nodes = [places[_place_before(place, integers)] for place in plan.own_places]
+        told = (index, values, tuple([nodes.index(node) for node in nodes]))
         # Matches with equal patterns and nodes lead to the same small cases.
-        found = None if told in seen else _wrong_case(query, plans[key], nodes)
+        found = None if told in seen else _wrong_case_like(plan, nodes)
         seen[told] = True
         if found is not None:
             return found

@@ -1,38 +1,60 @@
 """Verdicts: whether queries are right for placements, with certificates and counterexamples."""
 
 from dealtrows.ask.queries import Query, check_query
-from dealtrows.base.answers import Answer
+from dealtrows.base.answers import Answer, checked_answer
 from dealtrows.deal.cases import Case, check_case, is_counterexample
-from dealtrows.decide.smallcases import case_key, plans_of, small_cases
+from dealtrows.decide.scenes import answered_choices, wrong_case
+from dealtrows.decide.smallcases import case_key, ground_of
 from dealtrows.errors import InvalidOperation
 
 _KINDS = ("changed", "invented", "lost")
 
 
+def _counterexample_in(ground):
+    """A counterexample among the small cases, or None."""
+    for entry in ground.entries:
+        # Where all parts of a clause share a place, no head of its patterns is lost: so each other one decides.
+        if not (ground.is_apart and entry[0].shared):
+            plan = ground.plan_of(entry)
+            case = wrong_case(plan, plan.laid_out())
+            if case is not None:
+                return case
+    return None
+
+
+def _certificate_in(ground):
+    """All small cases with their answers, or None if some of these are wrong."""
+    seen = {}
+    for entry in ground.entries:
+        for frame, nodes, told, numbers in answered_choices(ground.plan_of(entry)):
+            if numbers[0] != numbers[1]:
+                return None
+            key = frame.key(nodes, told)
+            if key not in seen:
+                seen[key] = (frame.case(nodes, told), _answer_with(ground.asked.form, numbers[0]))
+    return tuple([seen[key] for key in seen])
+
+
+def _answer_with(form, numbers):
+    """The answer with some numbers, without those that are 0."""
+    return checked_answer(form, {head: numbers[head] for head in numbers if numbers[head] != 0})
+
+
 def certificate_of(placement, query):
     """All small cases with their answers, or None if the query is wrong."""
-    found = []
-    for case in small_cases(placement, query):
-        if not case.is_right(query):
-            return None
-        found.append((case, case.whole(query)))
-    return tuple(found)
+    return _certificate_in(ground_of(placement, query))
 
 
 def counterexample_of(placement, query):
     """A counterexample, or None if the query is right."""
-    for case in small_cases(placement, query):
-        if not case.is_right(query):
-            return case
-    return None
+    return _counterexample_in(ground_of(placement, query))
 
 
 def decision(placement, query):
     """A certificate behind the word right, or a counterexample behind the word wrong."""
-    found = certificate_of(placement, query)
-    if found is not None:
-        return ("right", found)
-    return ("wrong", counterexample_of(placement, query))
+    ground = ground_of(placement, query)
+    found = _certificate_in(ground)
+    return ("wrong", _counterexample_in(ground)) if found is None else ("right", found)
 
 
 def _is_answered_case(placement, value):
@@ -42,24 +64,42 @@ def _is_answered_case(placement, value):
     return isinstance(value[0], Case) and value[0].placement == placement
 
 
+def _answers_in(ground):
+    """A dict from the keys of the small cases to their numbers, or None if some of these are wrong."""
+    found = {}
+    for entry in ground.entries:
+        for frame, nodes, told, numbers in answered_choices(ground.plan_of(entry)):
+            if numbers[0] != numbers[1]:
+                return None
+            found[frame.key(nodes, told)] = numbers[0]
+    return found
+
+
+def _is_certificate_in(ground, value):
+    """Whether the value is a certificate."""
+    if not isinstance(value, tuple) or not all([_is_answered_case(ground.ruled, pair) for pair in value]):
+        return False
+    wanted = _answers_in(ground)
+    if wanted is None or len(value) != len(wanted):
+        return False
+    told = {ground.key_of(case): answer for case, answer in value}
+    if len(told) != len(wanted) or not all([key in wanted for key in told]):
+        return False
+    return all([told[key] == _answer_with(ground.asked.form, wanted[key]) for key in told])
+
+
 def is_certificate(placement, query, value):
     """Whether the value is a certificate."""
-    wanted = {case_key(case): True for case in small_cases(placement, query)}
-    if not isinstance(value, tuple) or not all([_is_answered_case(placement, pair) for pair in value]):
-        return False
-    # A case that is none of the small ones can have too many matches to be asked.
-    if len(value) != len(wanted) or {case_key(case): True for case, _ in value} != wanted:
-        return False
-    return all([case.is_right(query) and case.whole(query) == answer for case, answer in value])
+    return _is_certificate_in(ground_of(placement, query), value)
 
 
 def is_decision(placement, query, value):
     """Whether the value is a decision."""
-    plans_of(placement, query)
+    ground = ground_of(placement, query)
     if not isinstance(value, tuple) or len(value) != 2:
         return False
     if value[0] == "right":
-        return is_certificate(placement, query, value[1])
+        return _is_certificate_in(ground, value[1])
     return value[0] == "wrong" and is_counterexample(placement, query, value[1])
 
 
@@ -76,28 +116,27 @@ def _index_tuples(many):
     return tuple(sorted(found)[1:])
 
 
+def _ground_with(ground, indices):
+    """The ground of the query of the clauses with some indices, which has no more places and cases than all of them."""
+    query = ground.asked
+    if len(indices) == len(query):
+        return ground
+    clauses = tuple([query.clauses[index] for index in indices])
+    return ground_of(ground.ruled, Query.of(query.schema, query.form, clauses))
+
+
 def right_parts(placement, query):
     """The indices of clauses that together make a right query, all such tuples."""
-    plans_of(placement, query)
-    found = []
-    for indices in _index_tuples(len(query)):
-        clauses = tuple([query.clauses[index] for index in indices])
-        if is_right_for(placement, Query.of(query.schema, query.form, clauses)):
-            found.append(indices)
-    return tuple(found)
+    ground = ground_of(placement, query)
+    return tuple([indices for indices in _index_tuples(len(query))
+                  if _counterexample_in(_ground_with(ground, indices)) is None])
 
 
-def _kind_of(numbers):
+def _kind_of(mine, whole):
     """The word for a combined and a global number that differ."""
-    if numbers[0] == 0:
+    if mine == 0:
         return "lost"
-    return "invented" if numbers[1] == 0 else "changed"
-
-
-def _faults_of(case, query):
-    """The words for the heads with different numbers."""
-    found = case.difference(query)
-    return {head: _kind_of(found[head]) for head in found}
+    return "invented" if whole == 0 else "changed"
 
 
 def faults(case, query):
@@ -106,23 +145,39 @@ def faults(case, query):
     check_query(query)
     if case.placement.schema != query.schema:
         raise InvalidOperation("the schemas differ")
-    return _faults_of(case, query)
+    found = case.difference(query)
+    return {head: _kind_of(found[head][0], found[head][1]) for head in found}
+
+
+def _kinds_in(whole, mine):
+    """The list of the words for the heads with different numbers."""
+    if whole == mine:
+        return []
+    told = [(mine.get(head, 0), whole.get(head, 0)) for head in [*whole, *mine]]
+    return [_kind_of(low, high) for low, high in told if low != high]
 
 
 class Verdict:
     """What the small cases of a placement and a query tell. It never changes."""
 
     def __init__(self, placement, query):
-        found = list(small_cases(placement, query))
-        told = [_faults_of(case, query) for case in found]
-        wrong = [case for case, words in zip(found, told) if words]
+        ground = ground_of(placement, query)
+        found = {}
+        for entry in ground.entries:
+            for frame, nodes, told, numbers in answered_choices(ground.plan_of(entry)):
+                key = frame.key(nodes, told)
+                if key not in found:
+                    found[key] = (frame.case(nodes, told), numbers[0], _kinds_in(numbers[0], numbers[1]))
+        cases = [found[key] for key in found]
+        wrong = [case for case, _, kinds in cases if kinds]
         self._placement = placement
         self._query = query
-        self._known = {case_key(case): True for case in found}
+        self._known = {case_key(case): True for case, _, _ in cases}
         self._many = len(wrong)
-        self._certificate = None if wrong else tuple([(case, case.whole(query)) for case in found])
+        answered = [(case, _answer_with(query.form, whole)) for case, whole, _ in cases]
+        self._certificate = None if wrong else tuple(answered)
         self._counterexample = min(wrong, key=lambda case: len(case)) if wrong else None
-        self._kinds = {kind: len([words for words in told if kind in list(words.values())]) for kind in _KINDS}
+        self._kinds = {kind: len([kinds for _, _, kinds in cases if kind in kinds]) for kind in _KINDS}
 
     @property
     def placement(self):

@@ -101,7 +101,7 @@ class Shell:
             return self._nodes_table()
         word, _, rest = line.partition(" ")
         if word in ("ask", "whole", "check"):
-            return self._asked(word, rest)
+            return self._query_text(word, rest)
         if word in ("nodes", "at"):
             return self._numbered(word, integer_in(rest))
         if word in ("add", "remove"):
@@ -122,7 +122,7 @@ class Shell:
         many = [len(self._rows_at(node)) for node in range(self._store.nodes)]
         return "\n".join([f"{node:>2}{many[node]:>5}" for node in range(len(many))])
 
-    def _asked(self, word, rest):
+    def _query_text(self, word, rest):
         """The text of what is told of a query."""
         placement = self._store.placement
         query = read_query(placement.schema, "\n".join(rest.split("; ")))
