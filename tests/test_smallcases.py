@@ -12,7 +12,9 @@ from dealtrows.deal.placements import Placement
 from dealtrows.decide import smallcases
 from dealtrows.decide.patterns import patterns
 from dealtrows.decide.smallcases import is_small_case, layouts, small_cases, ties
-from dealtrows.decide.verdicts import is_right_for
+from dealtrows.decide.colocated import stranded
+from dealtrows.decide.verdicts import Verdict, certificate_of, counterexample_of, decision, is_certificate, is_decision
+from dealtrows.decide.verdicts import is_right_for, right_parts
 from dealtrows.errors import InvalidOperation, InvalidPlacement, InvalidQuery, InvalidRow, TooMany
 import naive
 from samples import DAY, FAR, IDLE, NEAR, PRICES, SHOP, SIXTY_ONE, SPLIT, TOWNS, case_with, odd_but, odd_values
@@ -284,6 +286,13 @@ class SmallCasesTest(unittest.TestCase):
             yield bans(p=(ALL,)), Query(BANS, form, Clause((("p", ("k", "x")),), absences=(("r", ("x", "f")),)),
                                         Clause((("p", ("k", "x")),)), Clause((("p", ("a", "b")),)))
         yield bans(q=(ALL,)), asked("sum", ("q", ("k", "n", "x")), summed="x")
+        # The place of a parent in no part is the one that a tie is given.
+        parents = Schema({"p": ("b", "d"), "q": ("a", "b"), "t": ("a", "b")}, keys={"p": (("b", "d"),)},
+                         references={"tp": ("t", ("a", "b"), "p", ("b", "d"))})
+        for rules in ((("by", "s", ("b",)),), (FIRST,), (("by", "u", ("a",)),)):
+            placement = Placement(parents, p=(("by", "s", ("d",)),), q=rules, t=(ANY,))
+            for form in ("count", "distinct"):
+                yield placement, asked(form, ("q", ("f", "e")), parts=(("t", (1, "e")),), schema=parents, head=("e",))
 
     def test_by_the_words_of_the_document(self):
         for placement, query in self.pairs():
@@ -447,6 +456,38 @@ class LimitTest(unittest.TestCase):
         self.assertEqual([choices_up_to(placement, query, 2100) for query in (most, more)], [2000, 2001])
         self.assertIsNone(self.errors(placement, most))
         self.assertEqual(self.errors(placement, more), (TooMany, 2000))
+
+    def test_exactly_at_the_limit_without_absences(self):
+        schema = Schema({"a": ("k", "l", "m", "n")}, keys={"a": (("k", "l", "m"),)})
+        one = Clause((("a", ("u", "s", "v", "z")), ("a", ("w", "y", "v", "x"))), tests=(("u", "!=", "s"), ("u", "!=", "y")))
+        two = Clause((("a", ("u", "x", "z", "y")), ("a", ("s", "w", "z", "v"))), tests=(("y", "!=", "v"), ("v", "!=", "y")))
+        three = Clause((("a", ("w", "v", "s", "s")), ("a", ("u", "x", "y", "z"))))
+        other = Clause((("a", ("y", "z", "w", "v")), ("a", ("x", "s", "u", "w"))), tests=(("v", "!=", "y"),))
+        most, more = Query(schema, "distinct", one, two, three), Query(schema, "distinct", other, other, other)
+        for rules in ((ALL,), (FIRST,), (("by", "s", ("k",)),), (("by", "s", ("k",)), ("by", "t", ("l",)))):
+            placement = Placement(schema, a=rules)
+            self.assertEqual([choices_up_to(placement, query, 2100) for query in (most, more)], [2000, 2001])
+            self.assertIsNone(told_error(is_small_case, placement, most, None))
+            for call in (is_small_case, is_decision, is_certificate):
+                self.assertEqual(told_error(call, placement, more, None), (TooMany, 2000))
+            for call in (is_right_for, right_parts, counterexample_of, certificate_of, decision, Verdict):
+                self.assertEqual(told_error(call, placement, more), (TooMany, 2000))
+            self.assertEqual(told_error(stranded, placement, more, ()), (TooMany, 2000))
+            self.assertIsNone(told_error(stranded, placement, most, ()))
+            self.assertIsNone(told_error(is_right_for, placement, most))
+        self.assertIs(is_right_for(Placement(schema, a=(ALL,)), most), True)
+
+    def test_counts_without_absences(self):
+        # Layouts of six places, each with two numbers of nodes, are soon too many.
+        schema = Schema({"t": ("a", "b")})
+        placement = Placement(schema, t=(("by", "s", ("a",)), ("by", "w", ("b",))))
+        query = Query(schema, "count", Clause((("t", ("a", "b")), ("t", ("c", "d")), ("t", ("e", "f")))))
+        self.assertEqual(self.errors(placement, query), (TooMany, 2000))
+        # Seven places of a pattern, behind many others, come first.
+        wide = Schema({"t": ("a", "b"), "u": ("a",)}, keys={"u": (("a",),)}, references={"tu": ("t", ("b",), "u", ("a",))})
+        seven = Placement(wide, t=(("by", "s", ("a",)), ("with", "tu")), u=(("by", "w", ("a",)), ("by", "x", ("a",))))
+        asked_query = Query(wide, "count", Clause((("t", ("a", "b")), ("t", ("c", "d")), ("t", ("e", "f")))))
+        self.assertEqual(self.errors(seven, asked_query), (TooMany, 6))
 
     def test_distinct_without_absences(self):
         # Each pattern is one choice: two clauses with 877 patterns are not too many, three are.

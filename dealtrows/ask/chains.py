@@ -38,7 +38,7 @@ class Chain:
         self._is_possible = one is not None and not any([low == high for low, high in tests])
         self._base = _integers_of(clause, told)
         self._at = {number: at for at, number in enumerate(self._base)}
-        self._joins = [(table, self._step([told.get(term, term) for term in terms], tests))
+        self._joins = [(table, self._join([told.get(term, term) for term in terms], tests))
                        for table, terms in clause.parts]
         at = {number: self._at[number] for number in self._base}
         at.update({name: self._at[told[name]] for name in told})
@@ -49,7 +49,7 @@ class Chain:
         self.ties_at = [(table, [(place, at[term]) for place, term in enumerate(terms) if term in at])
                      for table, terms in clause.absences]
 
-    def _step(self, terms, tests):
+    def _join(self, terms, tests):
         """How a part is matched: known columns and what they equal, equal columns, new ones, tests made then."""
         before = self._at
         known = [place for place, term in enumerate(terms) if term in before]

@@ -33,7 +33,8 @@ class Deal:
     def __init__(self, placement, draft, tables):
         self.draft = draft
         parents = {(child, name): line for child, name, line in draft.parent_lines}
-        self._ways = [_without_repeats(self._ways_of(placement, parents, line)) for line in range(len(draft.line_terms))]
+        lines = list(range(len(draft.line_terms)))
+        self._ways = [_without_repeats(self._ways_of(placement, parents, line)) for line in lines]
         own = [self._ways[line] for line, (table, _) in enumerate(draft.line_terms) if table in tables]
         self.own = [line for line, (table, _) in enumerate(draft.line_terms) if table in tables]
         self.many_places = len(_without_repeats([way for ways in own for way in ways if way != ALL]))
@@ -89,7 +90,8 @@ class Ground:
 
     def _tied_columns(self, chain):
         """For each absence of a clause its table, and its tied columns with what they are known by."""
-        return [(table, [(self.of_schema.columns_of(table)[place], at) for place, at in tied]) for table, tied in chain.ties_at]
+        schema = self.of_schema
+        return [(table, [(schema.columns_of(table)[place], at) for place, at in tied]) for table, tied in chain.ties_at]
 
     def most_places(self):
         """A number that the places of a pattern do not exceed, or None if there is none that is known."""
@@ -274,24 +276,17 @@ class Frame:
         self._database = None
         self._number = plan.ground.number_of(self._pairs)
         at = {place: index for index, place in enumerate(plan.all_places)}
-        told = {place: at[place] for place in self._told_places(blocking)}
         # All other places, of parents, are node 0, which stands behind the nodes of the layout.
         zero = len(at)
-        others = [place for pair in plan.by_pair for place in plan.by_pair[pair] if place != ALL and place not in told]
-        told.update({place: zero for place in others})
+        there = [place for pair in plan.by_pair for place in plan.by_pair[pair] if place != ALL]
+        told = {place: at.get(place, zero) for place in there}
+        given = [places for pairs, places in zip(blocking, plan.given) if pairs and places is not None]
+        told.update({place: at[place] for places in given for place in places if place != ALL})
         found = [open_place(plan.ground.ruled, plan.ties[index], row) for index, pairs in enumerate(blocking)
                  if plan.given[index] is None for _, row in pairs]
         told.update({place: zero + 1 + index for index, place in enumerate(found)})
         self._places = sorted(told)
         self._where = [told[place] for place in self._places]
-
-    def _told_places(self, blocking):
-        """The places of the layout that rows have, those of parts and the given ones of ties with a blocking row."""
-        plan = self._plan
-        if len(plan.all_places) == len(plan.own_places):
-            return plan.all_places
-        more = [place for pairs, given in zip(blocking, plan.given) if pairs and given is not None for place in given]
-        return [place for place in plan.all_places if place in plan.own_places or place in more]
 
     def _made_database(self):
         """The database of these rows."""
@@ -302,17 +297,17 @@ class Frame:
                         for table, row in self._more for name in schema.references_of(table)})
         return Database(schema, known_rows(schema, self._pairs, parents))
 
-    def nodes_of(self, layout, chosen):
+    def nodes_with(self, layout, chosen):
         """The tuple of the nodes of the ascending places."""
         more = [node for given, nodes in zip(self._plan.given, chosen) if given is None for node in nodes]
         told = [*layout, 0, *more]
         return tuple([told[at] for at in self._where])
 
-    def key(self, nodes, found):
+    def key_with(self, nodes, found):
         """What tells a case with so many nodes, and these nodes of its places, apart from others of its ground."""
         return (self._number, nodes, found)
 
-    def case(self, nodes, found):
+    def case_with(self, nodes, found):
         """The case with so many nodes, and these nodes of its places."""
         if self._database is None:
             self._database = self._made_database()

@@ -27,7 +27,8 @@ class Scene:
     def __init__(self, plan):
         self._is_distinct = plan.ground.asked.form == "distinct"
         at = {place: index for index, place in enumerate(plan.all_places)}
-        self._given = [None if given is None else [at[place] for place in given if place != ALL] for given in plan.given]
+        self._given = [None if given is None else [at[place] for place in given if place != ALL]
+                       for given in plan.given]
         self._ties = {tie: index for index, tie in enumerate(plan.ties)}
         self._stopped_by = [[index for index, other in enumerate(plan.ties) if is_blocked_by(tie, other)]
                             for tie in plan.ties]
@@ -97,7 +98,7 @@ def answered_choices(plan):
         for chosen in plan.sets(nodes):
             frame = plan.frame(chosen)
             numbers = scene.numbers(masks, layout, nodes, chosen)
-            found.append((frame, nodes, frame.nodes_of(layout, chosen), numbers))
+            found.append((frame, nodes, frame.nodes_with(layout, chosen), numbers))
     return found
 
 
@@ -110,5 +111,5 @@ def wrong_case(plan, laid_out):
             whole, mine = scene.numbers(masks, layout, nodes, chosen)
             if whole != mine:
                 frame = plan.frame(chosen)
-                return frame.case(nodes, frame.nodes_of(layout, chosen))
+                return frame.case_with(nodes, frame.nodes_with(layout, chosen))
     return None

@@ -88,8 +88,8 @@ def _choices_of(plan):
     for layout, nodes in plan.laid_out():
         for chosen in plan.sets(nodes):
             frame = plan.frame(chosen)
-            told = frame.nodes_of(layout, chosen)
-            found.append((frame.key(nodes, told), frame, nodes, told))
+            told = frame.nodes_with(layout, chosen)
+            found.append((frame.key_with(nodes, told), frame, nodes, told))
     return found
 
 
@@ -102,7 +102,7 @@ def small_cases(placement, query):
             # Patterns of several clauses can make the same case, and layouts of given places without a row.
             if key not in seen:
                 seen[key] = True
-                yield frame.case(nodes, told)
+                yield frame.case_with(nodes, told)
 
 
 def _is_case_of(ground, entry, case):

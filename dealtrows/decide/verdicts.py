@@ -29,9 +29,9 @@ def _certificate_in(ground):
         for frame, nodes, told, numbers in answered_choices(ground.plan_of(entry)):
             if numbers[0] != numbers[1]:
                 return None
-            key = frame.key(nodes, told)
+            key = frame.key_with(nodes, told)
             if key not in seen:
-                seen[key] = (frame.case(nodes, told), _answer_with(ground.asked.form, numbers[0]))
+                seen[key] = (frame.case_with(nodes, told), _answer_with(ground.asked.form, numbers[0]))
     return tuple([seen[key] for key in seen])
 
 
@@ -71,7 +71,7 @@ def _answers_in(ground):
         for frame, nodes, told, numbers in answered_choices(ground.plan_of(entry)):
             if numbers[0] != numbers[1]:
                 return None
-            found[frame.key(nodes, told)] = numbers[0]
+            found[frame.key_with(nodes, told)] = numbers[0]
     return found
 
 
@@ -165,9 +165,9 @@ class Verdict:
         found = {}
         for entry in ground.entries:
             for frame, nodes, told, numbers in answered_choices(ground.plan_of(entry)):
-                key = frame.key(nodes, told)
+                key = frame.key_with(nodes, told)
                 if key not in found:
-                    found[key] = (frame.case(nodes, told), numbers[0], _kinds_in(numbers[0], numbers[1]))
+                    found[key] = (frame.case_with(nodes, told), numbers[0], _kinds_in(numbers[0], numbers[1]))
         cases = [found[key] for key in found]
         wrong = [case for case, _, kinds in cases if kinds]
         self._placement = placement
