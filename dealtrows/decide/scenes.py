@@ -35,8 +35,9 @@ class Scene:
         # A row that lies everywhere is left out.
         rows = {pair: [at[place] for place in plan.by_pair[pair] if place in at] for pair in plan.by_pair
                 if ALL not in plan.by_pair[pair]}
-        self._matches = [self._told_match(plan, clause, known, rows)
-                         for clause, found in enumerate(plan.known_matches()) for known in found]
+        told = [(clause, known) for clause, found in enumerate(plan.known_matches()) for known in found]
+        self._clauses = [clause for clause, _ in told]
+        self._matches = [self._told_match(plan, clause, known, rows) for clause, known in told]
 
     def _told_match(self, plan, clause, known, rows):
         """The head and the number of an open match, the places of its rows, and the indices of its ties."""
@@ -70,6 +71,15 @@ class Scene:
                 made.append(_joined([1 << layout[at] for at in given]) if given else (1 << nodes) - 1)
         return [_joined([made[index] for index in told]) for told in self._stopped_by]
 
+    def gaps(self, masks, layout, nodes, chosen):
+        """For each head what the matches of each clause add to its combined number, less the global one."""
+        stops = self._stops(layout, nodes, chosen)
+        found = {}
+        for clause, (head, _, _, ties), mask in zip(self._clauses, self._matches, masks):
+            stop = _joined([stops[at] for at in ties])
+            found[head, clause] = found.get((head, clause), 0) + _many_bits(mask & ~stop) - (0 if stop else 1)
+        return found
+
     def numbers(self, masks, layout, nodes, chosen):
         """The numbers of the heads in the global and in the combined answer.
 
@@ -99,6 +109,18 @@ def answered_choices(plan):
             frame = plan.frame(chosen)
             numbers = scene.numbers(masks, layout, nodes, chosen)
             found.append((frame, nodes, frame.nodes_with(layout, chosen), numbers))
+    return found
+
+
+def gapped_choices(plan):
+    """For all choices of a plan their frames, numbers of nodes, nodes of places, and gaps by heads and clauses."""
+    scene = Scene(plan)
+    found = []
+    for layout, nodes in plan.laid_out():
+        masks = scene.masks(layout, nodes)
+        for chosen in plan.sets(nodes):
+            frame = plan.frame(chosen)
+            found.append((frame, nodes, frame.nodes_with(layout, chosen), scene.gaps(masks, layout, nodes, chosen)))
     return found
 
 

@@ -4,7 +4,8 @@ from dealtrows.ask.queries import check_query
 from dealtrows.base.names import are_integers
 from dealtrows.deal.cases import Case, check_case
 from dealtrows.deal.placements import check_placement
-from dealtrows.decide.smallcases import case_key, check_decidable, small_cases
+from dealtrows.decide.scenes import gapped_choices
+from dealtrows.decide.smallcases import case_key, ground_of
 from dealtrows.errors import InvalidOperation, TooMany
 from dealtrows.more.lattices import balanced_basis, basis_from, basis_with
 
@@ -16,12 +17,12 @@ def _check_form(query):
         raise InvalidOperation("the query does not count")
 
 
-def _check_counted(placement, query):
-    """Refuse what is no placement and no count that have small cases."""
+def _counted_ground(placement, query):
+    """The ground of a placement and a count."""
     check_placement(placement)
     check_query(query)
     _check_form(query)
-    check_decidable(placement, query)
+    return ground_of(placement, query)
 
 
 def _check_weights(placement, query, weights):
@@ -30,7 +31,6 @@ def _check_weights(placement, query, weights):
     check_query(query)
     if not are_integers(weights) or len(weights) != len(query):
         raise InvalidOperation("these are no integers, one for each clause")
-    _check_counted(placement, query)
 
 
 def _clause_queries(query):
@@ -75,20 +75,29 @@ def basis_of(rows):
     return basis_from(rows)
 
 
-def _small_gaps(placement, query):
-    """The triples of a small case, a head and its gap."""
-    queries = _clause_queries(query)
-    for case in small_cases(placement, query):
-        found = _gaps_in(case, queries)
-        for head in found:
-            yield (case, head, found[head])
+def _gaps_by_head(told, many):
+    """The gaps, other than zeros, of the heads, by the numbers of heads and of so many clauses."""
+    heads = sorted(set([head for head, _ in told]))
+    found = {head: tuple([told.get((head, clause), 0) for clause in range(many)]) for head in heads}
+    return {head: found[head] for head in heads if any(found[head])}
+
+
+def _small_gaps(ground):
+    """For each small case its frame, its number of nodes, the nodes of its places, and its gaps."""
+    many = len(ground.asked)
+    return [(frame, nodes, told, _gaps_by_head(gaps_told, many)) for entry in ground.entries
+            for frame, nodes, told, gaps_told in gapped_choices(ground.plan_of(entry))]
+
+
+def _basis_in(ground):
+    """The basis of the gap lattice."""
+    rows = {gap: True for _, _, _, found in _small_gaps(ground) for gap in list(found.values())}
+    return basis_from(list(rows))
 
 
 def gap_basis(placement, query):
     """The basis of the gap lattice."""
-    _check_counted(placement, query)
-    rows = {gap: True for _, _, gap in _small_gaps(placement, query)}
-    return basis_from(list(rows))
+    return _basis_in(_counted_ground(placement, query))
 
 
 def corrections(placement, query):
@@ -111,23 +120,24 @@ def error_step(placement, query, weights):
 def unbalanced(placement, query, weights):
     """A pair (case, head) with an error other than 0, or None."""
     _check_weights(placement, query, weights)
-    for case, head, gap in _small_gaps(placement, query):
-        if _error(weights, gap) != 0:
-            return (case, head)
+    for frame, nodes, told, found in _small_gaps(_counted_ground(placement, query)):
+        for head in found:
+            if _error(weights, found[head]) != 0:
+                return (frame.case_with(nodes, told), head)
     return None
 
 
 def gap_certificate(placement, query):
     """Pairs (case, head) whose gaps make the gap lattice."""
-    _check_counted(placement, query)
     basis = ()
-    found = []
-    for case, head, gap in _small_gaps(placement, query):
-        more = basis_with(basis, gap)
-        if more != basis:
-            basis = more
-            found.append((case, head))
-    return tuple(found)
+    pairs = []
+    for frame, nodes, told, found in _small_gaps(_counted_ground(placement, query)):
+        for head in found:
+            more = basis_with(basis, found[head])
+            if more != basis:
+                basis = more
+                pairs.append((frame.case_with(nodes, told), head))
+    return tuple(pairs)
 
 
 def _is_gap_pair(placement, query, value):
