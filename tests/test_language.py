@@ -364,6 +364,24 @@ class CodeTest(unittest.TestCase):
                     for part in [part for part in node.args if not isinstance(part, ast.Lambda)]:
                         self.assertFalse([one for one in ast.walk(part) if isinstance(one, ast.Call)], (name, node.lineno))
 
+    def test_inner_comprehensions_have_names_of_their_own(self):
+        comprehensions = (ast.ListComp, ast.SetComp, ast.DictComp, ast.GeneratorExp)
+        for name, (_, tree) in SOURCES.items():
+            above = parents_of(tree)
+            for node in [node for node in ast.walk(tree) if isinstance(node, comprehensions)]:
+                bound = {part.id for told in node.generators for part in ast.walk(told.target) if isinstance(part, ast.Name)}
+                around, outer = above[node], set()
+                while not isinstance(around, ast.FunctionDef):
+                    if isinstance(around, comprehensions):
+                        outer |= {part.id for told in around.generators for part in ast.walk(told.target)
+                                  if isinstance(part, ast.Name)}
+                    if isinstance(around, ast.Lambda):
+                        outer |= {part.arg for part in around.args.args}
+                    around = above[around]
+                if outer:
+                    outer |= set(values_of_names(around)) | {part.arg for part in ast.walk(around) if isinstance(part, ast.arg)}
+                    self.assertFalse(bound & outer - {"_"}, (name, node.lineno))
+
     def test_is_stands_beside_plain_values(self):
         for at, node in self.nodes(ast.Compare):
             if isinstance(node.ops[0], (ast.Is, ast.IsNot)):

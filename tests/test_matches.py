@@ -513,8 +513,8 @@ def told_by_definition(clause, rows, with_absences):
 
 
 class DefinitionTest(unittest.TestCase):
-    def some_rows(self, source):
-        return {table: tuple({tuple(source.randrange(3) for _ in columns) for _ in range(source.randrange(6))})
+    def some_rows(self, source, numbers, most):
+        return {table: tuple({tuple(source.randrange(numbers) for _ in columns) for _ in range(source.randrange(most))})
                 for table, columns in FREE.tables.items()}
 
     def some_clause(self, source):
@@ -531,8 +531,10 @@ class DefinitionTest(unittest.TestCase):
 
     def test_matches_by_definition(self):
         source = random.Random(5)
-        for _ in range(400):
-            clause, rows = self.some_clause(source), self.some_rows(source)
+        # Few rows and many rows are matched in two ways.
+        for at in range(600):
+            clause = self.some_clause(source)
+            rows = self.some_rows(source, 3, 6) if at < 400 else self.some_rows(source, 5, 18)
             query = Query(FREE, "sum", clause)
             opened, kept = (told_by_definition(clause, rows, wanted) for wanted in (False, True))
             self.assertEqual(list(open_matches(query, 0, rows)), opened)

@@ -21,6 +21,11 @@ def _many_bits(bits):
     return f"{bits:b}".count("1")
 
 
+def _told_heads(numbers):
+    """For each head of a distinct answer, by the numbers of its matches, 1."""
+    return {head: 1 for head in numbers if numbers[head] > 0}
+
+
 class Scene:
     """The open matches of a plan: their heads, their numbers, the places of their rows, and their ties."""
 
@@ -90,12 +95,10 @@ class Scene:
         for (head, number, _, ties), mask in zip(self._matches, masks):
             stop = 0 if stops is None else _joined([stops[at] for at in ties])
             many = _many_bits(mask & ~stop)
-            if self._is_distinct:
-                whole.update({} if stop else {head: 1})
-                mine.update({head: 1} if many else {})
-            else:
-                whole[head] = whole.get(head, 0) + (0 if stop else number)
-                mine[head] = mine.get(head, 0) + many * number
+            whole[head] = whole.get(head, 0) + (0 if stop else number)
+            mine[head] = mine.get(head, 0) + many * number
+        if self._is_distinct:
+            return (_told_heads(whole), _told_heads(mine))
         return (whole, mine)
 
 
