@@ -4,16 +4,10 @@ What is known is a tuple: first the integers of the clause, then those of the
 variables in the order in which they come. Terms that tests make equal are one.
 """
 
-from dealtrows.ask.terms import integers_in, terms_made_one, terms_of_parts, terms_of_tests
+from dealtrows.ask.terms import integers_in, terms_made_one
 
 # Up to so many choices of a row for each part are gone through one by one.
 _FEW = 60
-
-
-def _integers_of(clause, one):
-    """The integers of a clause, of its absences and its summed term, too."""
-    told = [*terms_of_parts(clause.parts), *terms_of_parts(clause.absences), *terms_of_tests(clause.tests)]
-    return integers_in([0 if clause.summed is None else clause.summed, *told, *[one[name] for name in one]])
 
 
 def _options(rows, known, twins, fresh):
@@ -27,39 +21,53 @@ def _longer(found, options, known_at):
     return [told + more for told in found for key, more in options if key == tuple([told[at] for at in known_at])]
 
 
+def _told_tests(clause, one):
+    """The tests that two terms are unequal, with the terms that variables are."""
+    return [(one.get(low, low), one.get(high, high)) for low, word, high in clause.tests if word == "!="]
+
+
 class Chain:
     """A clause that is made ready to be matched with few rows."""
 
     def __init__(self, clause):
+        self._parts = clause.parts
+        self._names = clause.variables
         one = terms_made_one(clause)
-        told = {name: name for name in clause.variables} if one is None else one
-        tests = [(told.get(low, low), told.get(high, high)) for low, word, high in clause.tests if word == "!="]
+        told = {} if one is None else one
+        tests = _told_tests(clause, told)
         # There is no match if tests contradict one another, or one of them compares a term with itself.
         self._is_possible = one is not None and not any([low == high for low, high in tests])
-        self._base = _integers_of(clause, told)
+        summed = [] if clause.summed is None else [clause.summed]
+        self._base = integers_in([*clause.named(), *summed])
         self._at = {number: at for at, number in enumerate(self._base)}
         self._joins = [(table, self._join([told.get(term, term) for term in terms], tests))
                        for table, terms in clause.parts]
-        at = {number: self._at[number] for number in self._base}
-        at.update({name: self._at[told[name]] for name in told})
-        self._heads = [at[name] for name in clause.head]
-        self.summed_at = None if clause.summed is None else at[clause.summed]
-        self.variables_at = [(name, at[name]) for name in clause.variables]
-        self.parts_at = [(table, [at[term] for term in terms]) for table, terms in clause.parts]
-        self.ties_at = [(table, [(place, at[term]) for place, term in enumerate(terms) if term in at])
-                     for table, terms in clause.absences]
+        if clause.tests:
+            self._at.update({name: self._at[told[name]] for name in told})
+        self._heads = [self._at[name] for name in clause.head]
+        self.summed_at = None if clause.summed is None else self._at[clause.summed]
+        self.ties_at = [(table, [(place, self._at[term]) for place, term in enumerate(terms) if term in self._at])
+                        for table, terms in clause.absences]
 
     def _join(self, terms, tests):
         """How a part is matched: known columns and what they equal, equal columns, new ones, tests made then."""
         before = self._at
-        known = [place for place, term in enumerate(terms) if term in before]
-        fresh = [place for place, term in enumerate(terms) if term not in before and term not in terms[:place]]
-        twins = [(place, terms.index(term)) for place, term in enumerate(terms)
-                 if term not in before and term in terms[:place]]
+        known, fresh, twins = [], [], []
+        for place, term in enumerate(terms):
+            if term in before:
+                known.append(place)
+            elif term in terms[:place]:
+                twins.append((place, terms.index(term)))
+            else:
+                fresh.append(place)
         self._at = {**before, **{terms[place]: len(before) + more for more, place in enumerate(fresh)}}
         ready = [(self._at[low], self._at[high]) for low, high in tests
                  if low in self._at and high in self._at and not (low in before and high in before)]
         return (known, [before[terms[place]] for place in known], twins, fresh, ready)
+
+    def parts_at(self):
+        """For each part its table, and what its terms are known by."""
+        return [(table, [self._at[term] for term in terms]) for table, terms in self._parts]
 
     def is_few(self, rows):
         """Whether there are few choices of a row for each part."""
@@ -92,6 +100,6 @@ class Chain:
 
     def matches_of(self, found):
         """The dicts of the found ones, ascending by their integers."""
-        told = sorted([tuple([known[at] for _, at in self.variables_at]) for known in found])
-        names = [name for name, _ in self.variables_at]
-        return [dict(zip(names, numbers)) for numbers in told]
+        where = [self._at[name] for name in self._names]
+        told = sorted([tuple([known[at] for at in where]) for known in found])
+        return [dict(zip(self._names, numbers)) for numbers in told]

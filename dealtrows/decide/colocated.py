@@ -202,12 +202,12 @@ def _is_told_in(query, plan, route):
     """Whether some co-location of the pattern of a plan has a place that is asked by a route."""
     match = plan.deal.draft.match_with(plan.valued)
     head = values_of(query.clauses[plan.deal.draft.index].head, match)
-    for (chain, _), found in zip(plan.ground.chains, plan.known_matches()):
-        for known in found:
-            if chain.head_of(known) == head:
-                rows = [(table, tuple([known[at] for at in where])) for table, where in chain.parts_at]
-                if _is_told(shared_places([plan.by_pair[row] for row in rows]), route):
-                    return True
+    for clause, found in enumerate(plan.known_matches()):
+        chain = plan.ground.chains[clause][0]
+        for known in [known for known in found if chain.head_of(known) == head]:
+            rows = plan.pairs_of_parts(clause, known)
+            if _is_told(shared_places([plan.by_pair[row] for row in rows]), route):
+                return True
     return False
 
 

@@ -72,7 +72,8 @@ class Ground:
         self.of_schema = query.schema
         tables = [table for clause in query.clauses for table, _ in clause.parts]
         self.deals = [Deal(placement, draft, tables) for draft in drafts_of(query) if draft is not None]
-        self.chains = [(clause.chain(), self._tied_columns(clause.chain())) for clause in query.clauses]
+        self.chains = [(clause.chain(), self._tied_columns(clause.chain()), clause.chain().parts_at())
+                       for clause in query.clauses]
         self._absent = [table for clause in query.clauses for table, _ in clause.absences]
         self.has_absences = bool(self._absent)
         # Each place has a node of its own if the query is distinct and has no absences.
@@ -152,7 +153,11 @@ class Plan:
     def known_matches(self):
         """For each clause the list of what is known by its open matches in the pattern."""
         rows = self.rows_by_table()
-        return [chain.found(rows) for chain, _ in self.ground.chains]
+        return [chain.found(rows) for chain, _, _ in self.ground.chains]
+
+    def pairs_of_parts(self, clause, known):
+        """The pairs (table, row) that the parts of a clause become, perhaps repeated."""
+        return [(table, tuple([known[at] for at in where])) for table, where in self.ground.chains[clause][2]]
 
     def ties_of(self, clause, known):
         """The ties of an open match of a clause, one for each absence."""
