@@ -418,7 +418,26 @@ class CodeTest(unittest.TestCase):
         self.assertFalse(read & METHODS)
         self.assertFalse(read & stored)
         self.assertFalse(plain & stored)
-        self.assertFalse(stored & (METHODS - {"count", "index", "title", "find", "get", "join", "lower", "upper", "split"}))
+
+    def test_attributes_are_not_called_like_methods_of_builtin_values(self):
+        # What operators run may call these methods, and nothing that an object holds.
+        stored = {node.attr for _, node in self.nodes(ast.Attribute) if isinstance(node.ctx, ast.Store)}
+        methods = {name for kind in (int, str, bytes, list, tuple, dict, set, frozenset) for name in dir(kind)}
+        self.assertFalse(stored & (METHODS | methods))
+
+    def test_operators_and_properties_call_nothing_that_objects_hold(self):
+        stored = {node.attr for _, node in self.nodes(ast.Attribute) if isinstance(node.ctx, ast.Store)}
+        for function in run_by_operators():
+            passed = {part.arg for part in ast.walk(function.args) if isinstance(part, ast.arg)} - {"cls"}
+            kept = passed | set(values_of_names(function))
+            for node in [node for node in ast.walk(function) if isinstance(node, ast.Call)]:
+                self.assertNotIn(getattr(node.func, "attr", None), stored, function.name)
+                self.assertNotIn(name_called(node), kept, function.name)
+
+    def test_reversed_takes_what_is_made_there(self):
+        for at, node in self.nodes(ast.Call):
+            if name_called(node) == "reversed":
+                self.assertIn(name_called(node.args[0]), ("list", "tuple", "sorted", "range"), at)
 
 
 if __name__ == "__main__":

@@ -201,7 +201,7 @@ def _stranded_case(placement, plan):
 def _is_told_in(query, plan, route):
     """Whether some co-location of the pattern of a plan has a place that is asked by a route."""
     match = plan.deal.draft.match_with(plan.valued)
-    head = values_of(query.clauses[plan.deal.draft.index].head, match)
+    head = values_of(query.clauses[plan.deal.draft.of_clause].head, match)
     for clause, found in enumerate(plan.known_matches()):
         chain = plan.ground.chains[clause][0]
         for known in [known for known in found if chain.head_of(known) == head]:

@@ -37,7 +37,7 @@ class Draft:
     """A template of a clause of a query, made ready to be given values."""
 
     def __init__(self, query, index, template):
-        self.index = index
+        self.of_clause = index
         self._schema = query.schema
         self._clause = query.clauses[index]
         self._integers = query.integers

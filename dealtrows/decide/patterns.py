@@ -71,7 +71,7 @@ def drafts_of(query):
 def pattern_with(draft, values, used):
     """The pattern of a draft with some values, so many of them of classes without an integer."""
     database = draft.database_with(draft.pairs_with(values))
-    return Pattern(draft.index, draft.match_with(values), database, draft.fresh_values(used))
+    return Pattern(draft.of_clause, draft.match_with(values), database, draft.fresh_values(used))
 
 
 def patterns(query):

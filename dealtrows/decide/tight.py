@@ -99,7 +99,7 @@ def small_case_of(query, case):
     """A small case that is a counterexample and has the pattern of an open match in a counterexample."""
     _check_counterexample(query, case)
     ground = ground_of(case.placement, query)
-    deals = {deal.draft.index: deal for deal in ground.deals}
+    deals = {deal.draft.of_clause: deal for deal in ground.deals}
     places = case.places
     seen = {}
     for index, match in _open_matches_of(query, case):

@@ -78,7 +78,7 @@ class History:
         """A history of the same states that is in no block."""
         made = History(self.now)
         made.before = self.before
-        for state in reversed(self._all_done()):
+        for state in reversed(list(self._all_done())):
             made.done = Step(state, made.done)
         made.undone = self.undone
         return made
