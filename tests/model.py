@@ -57,6 +57,11 @@ class Model:
         return tuple((*pair, old.get(pair, ()), new.get(pair, ())) for pair in sorted({*old, *new})
                      if old.get(pair, ()) != new.get(pair, ()))
 
+    def moves_by(self, change, *given):
+        """The moves by a change."""
+        change(*given)
+        return self.moves()
+
     def change(self, state):
         rows = {table: tuple(row for other, row in state.lone if other == table) for table in self.schema.tables}
         if len(state.lone) > 100 or first_broken(self.schema, rows) is not None:

@@ -3,7 +3,9 @@
 import random
 import unittest
 
+from dealtrows.base.databases import Database
 from dealtrows.base.schemas import Schema
+from dealtrows.deal.cases import Case
 from dealtrows.deal.placements import Placement
 from dealtrows.errors import BrokenConstraint, DealError, InvalidNumber, MissingRow, NothingToUndo, TooMany
 from dealtrows.live.guarded import GuardedStore
@@ -293,7 +295,26 @@ class Drawn:
                 self.test.assertEqual(found, wanted)
         self.look()
 
+    def look_at_case(self):
+        """The database and the case are those that are made anew from the rows."""
+        case, lies = self.store.case(), self.model.lies(self.model.now)
+        rows = {table: tuple(sorted(row for other, row in lies if other == table)) for table in FREE.tables}
+        self.test.assertEqual(self.store.database.rows, rows)
+        self.test.assertEqual(self.store.database.pairs(), tuple(sorted(lies)))
+        made = Database(FREE, rows)
+        for row in rows["c"]:
+            self.test.assertEqual(case.database.parent_of("ca", row), made.parent_of("ca", row))
+        for node in range(case.nodes):
+            there = {table: tuple(row for row in rows[table] if node in lies[table, row]) for table in rows}
+            self.test.assertEqual(case.rows_at(node), there)
+        spreads = {(name, told): sum(weight * number for weight, number in zip(WEIGHTS[name], told)) % case.nodes
+                   for name, told in case.spreads}
+        lone = {pair: self.model.now.lone[pair] for pair in lies if ANY in self.model.now.rules[pair[0]]}
+        self.test.assertEqual(case, Case(case.placement, made, nodes=case.nodes, spreads=spreads, lone=lone))
+        self.test.assertEqual([list(case.places), list(case.lone)], [sorted(case.places), sorted(lone)])
+
     def look(self):
+        self.look_at_case()
         store, model = self.store, self.model
         self.test.assertEqual({pair: store.case().nodes_of(*pair) for pair in store.database}, model.lies(model.now))
         self.test.assertEqual([store.nodes, store.placement.rules, store.moves],
@@ -309,17 +330,17 @@ class Drawn:
         kind = drawn.randrange(7)
         if kind < 3:
             pair, node = self.pair(), drawn.choice((None, None, 0, 1, 3))
-            self.both(lambda: store.add(*pair, node=node), lambda: model.add(pair, node))
+            self.both(lambda: store.add(*pair, node=node), lambda: model.moves_by(model.add, pair, node))
         elif kind == 3:
             pair = drawn.choice([*store.database, self.pair()])
-            self.both(lambda: store.remove(*pair), lambda: model.remove(pair))
+            self.both(lambda: store.remove(*pair), lambda: model.moves_by(model.remove, pair))
         elif kind == 4:
             table = drawn.choice("abc")
             rules = drawn.choice(RULES[table])
-            self.both(lambda: store.put(table, *rules[::-1]), lambda: model.put(table, rules))
+            self.both(lambda: store.put(table, *rules[::-1]), lambda: model.moves_by(model.put, table, rules))
         elif kind == 5:
             nodes = drawn.randint(1, 9)
-            self.both(lambda: store.resize(nodes), lambda: model.resize(nodes))
+            self.both(lambda: store.resize(nodes), lambda: model.moves_by(model.resize, nodes))
         else:
             many = drawn.choice((0, 1, 1, 2, 3))
             if drawn.random() < 0.5:

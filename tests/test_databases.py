@@ -1,5 +1,6 @@
 """[0.10], [3.1] and is_rows, first_broken, Database of stage 3."""
 
+import random
 import unittest
 
 from dealtrows.base import databases
@@ -7,7 +8,7 @@ from dealtrows.base.databases import Database, first_broken, is_rows
 from dealtrows.base.schemas import Schema
 from dealtrows.errors import BrokenConstraint, InvalidDatabase, InvalidOperation, InvalidRow, InvalidSchema
 from dealtrows.errors import MissingRow, TooMany, UnknownName
-from samples import DAY, IDLE, SHOP, SIXTY, SIXTY_ONE, TOWNS, odd_values, shop_again
+from samples import DAY, IDLE, SHOP, SIXTY, SIXTY_ONE, TOWNS, odd_values, shop_again, told_error
 
 ROWS = {"cus": ((2, 5), (1, 5)), "item": ((9, 7), (8, 7)), "ord": ((2, 8, 4), (1, 9, 3), (1, 8, 5))}
 FULL = Database(SHOP, ROWS)
@@ -15,6 +16,11 @@ FULL = Database(SHOP, ROWS)
 CHAIN = Schema(
     {"a": ("k",), "b": ("k", "up"), "c": ("up", "via")}, keys={"a": (("k",),), "b": (("k",),)},
     references={"ba": ("b", ("up",), "a", ("k",)), "ca": ("c", ("up",), "a", ("k",)), "cb": ("c", ("via",), "b", ("k",))})
+# Keys of two columns, one key within another, and columns of a reference in another order.
+TWO_KEYS = Schema(
+    {"a": ("k",), "b": ("k", "m"), "c": ("p", "q", "r")}, keys={"a": (("k",),), "b": (("k",), ("k", "m")), "c": (("p", "r"), ("q", "r"))},
+    references={"ba": ("b", ("m",), "a", ("k",)), "ca": ("c", ("r",), "a", ("k",)),
+                "cb": ("c", ("q", "p"), "b", ("k", "m"))})
 LINE = Database(CHAIN, {"a": ((1,), (2,)), "b": ((5, 1), (6, 2)), "c": ((1, 5), (1, 6), (2, 6))})
 
 
@@ -280,6 +286,82 @@ class WithRowTest(unittest.TestCase):
             self.assertEqual(caught.exception.limit, 100)
         with self.assertRaises(InvalidRow):
             full.with_row("cus", (0,))
+
+    def row_for(self, drawn, database):
+        """A table and a row of it, whose parents are often there."""
+        table = drawn.choice("abbccc")
+        row = tuple([drawn.randint(0, 3) for _ in TWO_KEYS.columns_of(table)])
+        if table == "c" and database["b"] and drawn.random() < 0.7:
+            above = drawn.choice(database["b"])
+            row = (above[1], above[0], row[2])
+        return table, row
+
+    def look(self, database, rows):
+        """The database is the one that is made anew from its rows."""
+        made = Database(TWO_KEYS, {table: tuple(rows[table]) for table in rows})
+        self.assertEqual([database, database.rows, database.pairs()], [made, made.rows, made.pairs()])
+        for table, row in made:
+            self.assertEqual(database.children_of(table, row), made.children_of(table, row))
+            self.assertEqual(database.closure_of((table, row)), made.closure_of((table, row)))
+            for name in TWO_KEYS.references_of(table):
+                self.assertEqual(database.parent_of(name, row), made.parent_of(name, row))
+
+    def test_drawn_rows_one_after_another(self):
+        drawn = random.Random(5)
+        broken = {}
+        for _ in range(30):
+            rows = {table: [] for table in TWO_KEYS.tables}
+            database = Database.empty(TWO_KEYS)
+            for _ in range(60):
+                table, row = self.row_for(drawn, database)
+                if drawn.random() < 0.1 and database.pairs():
+                    table, row = drawn.choice(database.pairs())
+                    database = database.without_row(table, row)
+                    rows = {name: list(database[name]) for name in rows}
+                elif row not in rows[table]:
+                    more = {**rows, table: [*rows[table], row]}
+                    found = first_broken(TWO_KEYS, {name: tuple(more[name]) for name in more})
+                    if found is None:
+                        before, database, rows = database, database.with_row(table, row), more
+                        self.assertEqual(before.with_row(table, row), database)
+                    else:
+                        self.assertEqual(told_error(database.with_row, table, row), (BrokenConstraint, found))
+                        broken[found] = True
+                self.look(database, rows)
+        # Each key and each reference that can be broken first was broken by some row.
+        self.assertEqual(sorted(broken), [
+            ("key", "b", ("k",)), ("key", "c", ("p", "r")), ("key", "c", ("q", "r")),
+            ("reference", "ba"), ("reference", "ca"), ("reference", "cb")])
+
+    def test_a_single_row_less(self):
+        drawn = random.Random(6)
+        refused = {}
+        for _ in range(30):
+            database = Database.empty(TWO_KEYS)
+            for _ in range(60):
+                table, row = self.row_for(drawn, database)
+                if told_error(database.with_row, table, row) is None:
+                    database = database.with_row(table, row)
+            while database:
+                table, row = drawn.choice(database.pairs())
+                left = {name: [other for other in database[name] if (name, other) != (table, row)] for name in "abc"}
+                found = first_broken(TWO_KEYS, {name: tuple(left[name]) for name in left})
+                if found is None:
+                    database = database.without_single(table, row)
+                    self.look(database, left)
+                    self.assertEqual(told_error(database.with_row, table, row), None)
+                else:
+                    self.assertEqual(told_error(database.without_single, table, row), (BrokenConstraint, found))
+                    refused[found] = True
+        self.assertEqual(sorted(refused), [("reference", name) for name in ("ba", "ca", "cb")])
+
+    def test_a_key_is_free_again_behind_its_row(self):
+        database = Database.empty(SHOP).with_row("cus", (1, 5)).with_row("cus", (2, 5))
+        self.assertEqual(told_error(database.with_row, "cus", (1, 6)), (BrokenConstraint, ("key", "cus", ("code",))))
+        for left in (database.without_single("cus", (1, 5)), database.without_row("cus", (1, 5))):
+            self.assertEqual(left.with_row("cus", (1, 6))["cus"], ((1, 6), (2, 5)))
+            self.assertEqual(told_error(left.with_row, "cus", (2, 6)), (BrokenConstraint, ("key", "cus", ("code",))))
+        self.assertEqual(database["cus"], ((1, 5), (2, 5)))
 
     def test_without_row(self):
         self.assertEqual(FULL.without_row("cus", (1, 5)).pairs(),

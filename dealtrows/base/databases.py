@@ -1,5 +1,6 @@
 """Databases: rows that keep the keys and the references of a schema."""
 
+from dealtrows.base.ascending import with_value, without_keys, without_value
 from dealtrows.base.names import are_integers, is_name
 from dealtrows.base.schemas import check_schema, picked
 from dealtrows.errors import BrokenConstraint, InvalidDatabase, InvalidOperation, InvalidRow
@@ -99,11 +100,16 @@ def rows_of(pairs):
 
 
 class KnownRows:
-    """Rows of a database that need no check: a dict from all tables, and the parents by references and rows."""
+    """Rows of a database that need no check: a dict from all tables, all pairs, the parents by references and rows.
 
-    def __init__(self, by_table, parents):
+    Perhaps it has the rows by keys, too: a dict from tables, keys and integers.
+    """
+
+    def __init__(self, by_table, all_pairs, parents, by_key=None):
         self.by_table = by_table
+        self.all_pairs = all_pairs
         self.parents = parents
+        self.by_key = by_key
 
 
 def known_rows(schema, pairs, parents):
@@ -111,7 +117,7 @@ def known_rows(schema, pairs, parents):
     found = {table: [] for table in schema.tables}
     for table, row in pairs:
         found[table].append(row)
-    return KnownRows({table: tuple(found[table]) for table in found}, parents)
+    return KnownRows({table: tuple(found[table]) for table in found}, tuple(pairs), parents)
 
 
 def _checked_rows(schema, rows):
@@ -124,7 +130,8 @@ def _checked_rows(schema, rows):
     if broken_key is not None:
         raise BrokenConstraint(broken_key)
     parents = _parents_in(schema, rows)
-    return KnownRows({table: tuple(sorted(rows.get(table, ()))) for table in schema.tables}, parents)
+    by_table = {table: tuple(sorted(rows.get(table, ()))) for table in schema.tables}
+    return KnownRows(by_table, tuple([(table, row) for table in by_table for row in by_table[table]]), parents)
 
 
 class Database:
@@ -135,8 +142,10 @@ class Database:
         known = rows if isinstance(rows, KnownRows) else _checked_rows(schema, {} if rows is None else rows)
         self._schema = schema
         self._rows = known.by_table
+        self._pairs = known.all_pairs
         self._parents = known.parents
-        self._pairs = tuple([(table, row) for table in self._rows for row in self._rows[table]])
+        # The rows by keys are found when a row is first added.
+        self._by_key = known.by_key
 
     @classmethod
     def empty(cls, schema):
@@ -241,22 +250,28 @@ class Database:
             self._check_row(pair[0], pair[1])
         return self._part(self._closure(pairs))
 
-    def _check_keys(self, table, row):
-        """Refuse one more row that would break a key."""
-        for key in self._schema.keys_of(table):
-            if picked(self._schema.columns_of(table), row, key) in _values_in(self._schema, self._rows, table, key):
-                raise BrokenConstraint(("key", table, key))
+    def _told_keys(self, table, row):
+        """For each key of a table the triple of the table, the key and the integers of a row in it."""
+        columns = self._schema.columns_of(table)
+        return [(table, key, picked(columns, row, key)) for key in self._schema.keys_of(table)]
+
+    def _rows_by_key(self):
+        """A dict from the triples of tables, keys and integers to the rows that have them."""
+        if self._by_key is None:
+            self._by_key = {told: row for table, row in self._pairs for told in self._told_keys(table, row)}
+        return self._by_key
 
     def _parents_of_more(self, table, row):
         """The parents, by references and the row, of one more row; refused if it would break a reference."""
         found = {}
+        columns = self._schema.columns_of(table)
         references = self._schema.references
         for name in self._schema.references_of(table):
-            parent = references[name][2]
-            above = _parents_by(self._schema, {table: (row,), parent: self._rows[parent]}, references[name])
-            if above[0] is None:
+            _, mine, parent, key = references[name]
+            above = self._rows_by_key().get((parent, key, picked(columns, row, mine)))
+            if above is None:
                 raise BrokenConstraint(("reference", name))
-            found[name, row] = (parent, above[0])
+            found[name, row] = (parent, above)
         return found
 
     def with_row(self, table, row):
@@ -267,9 +282,27 @@ class Database:
             return self
         if len(self._pairs) >= MAX_ROWS:
             raise TooMany(MAX_ROWS)
-        self._check_keys(table, row)
+        by_key = self._rows_by_key()
+        keys = self._told_keys(table, row)
+        for told in keys:
+            if told in by_key:
+                raise BrokenConstraint(("key", table, told[1]))
         parents = {**self._parents, **self._parents_of_more(table, row)}
-        return Database(self._schema, known_rows(self._schema, sorted([*self._pairs, (table, row)]), parents))
+        rows = {**self._rows, table: with_value(self._rows[table], row)}
+        more = {**by_key, **{told: row for told in keys}}
+        return Database(self._schema, KnownRows(rows, with_value(self._pairs, (table, row)), parents, more))
+
+    def without_single(self, table, row):
+        """The database that lacks this row alone, which is there; refused if it is the parent of another one."""
+        schema = self._schema
+        if any([reference[2] == table for reference in schema.references.values()]):
+            broken = [name for name, child in self._parents if self._parents[name, child] == (table, row)]
+            if broken:
+                raise BrokenConstraint(("reference", min(broken)))
+        parents = without_keys(self._parents, [(name, row) for name in schema.references_of(table)])
+        rows = {**self._rows, table: without_value(self._rows[table], row)}
+        by_key = None if self._by_key is None else without_keys(self._by_key, self._told_keys(table, row))
+        return Database(schema, KnownRows(rows, without_value(self._pairs, (table, row)), parents, by_key))
 
     def without_row(self, table, row):
         """The database that lacks this row and all rows whose closure contains it."""

@@ -74,10 +74,14 @@ def check_case(value):
 
 
 class KnownPlaces:
-    """A dict from the ascending places of all rows to nodes, which needs no check."""
+    """A dict from the ascending places of all rows to nodes, which needs no check.
 
-    def __init__(self, by_place):
+    Perhaps it has the nodes where the rows lie, too: a dict from pairs to ascending tuples.
+    """
+
+    def __init__(self, by_place, nodes_by_pair=None):
         self.by_place = by_place
+        self.nodes_by_pair = nodes_by_pair
 
 
 def _checked_places(placement, database, nodes, spreads, lone):
@@ -108,34 +112,34 @@ class Case:
         self._nodes = nodes
         self._places = known.by_place
         # Where each row lies, and the rows of each node, are found when they are first asked for.
-        self._lies = None
+        self._lies = known.nodes_by_pair
         self._rows = None
 
-    def _deal(self):
-        """Find where each row lies."""
-        found = self._placement.places_by_pair(self._database)
-        lies = {}
-        rows = [{name: [] for name in self._database.rows} for _ in range(self._nodes)]
-        for pair in found:
-            table, row = pair
-            there = list(range(self._nodes)) if ALL in found[pair] else [self._places[place] for place in found[pair]]
-            told = sorted(set(there))
-            lies[pair] = tuple(told)
-            for node in told:
-                rows[node][table].append(row)
-        self._lies = lies
-        self._rows = rows
+    def _nodes_at(self, places):
+        """The ascending tuple of the nodes of a row with these places."""
+        there = list(range(self._nodes)) if ALL in places else [self._places[place] for place in places]
+        return tuple(sorted(set(there)))
 
-    def lies(self):
+    def _lies_found(self):
         """A dict from the pairs (table, row) to the ascending tuples of the nodes where they lie."""
         if self._lies is None:
-            self._deal()
-        return dict(self._lies)
+            found = self._placement.places_by_pair(self._database)
+            self._lies = {pair: self._nodes_at(found[pair]) for pair in found}
+        return self._lies
+
+    def lies(self):
+        """A dict, of the caller's own, of the nodes where the pairs lie."""
+        return dict(self._lies_found())
 
     def _rows_dealt(self):
         """For each node a dict from all tables to the lists of the rows that lie there."""
         if self._rows is None:
-            self._deal()
+            lies = self._lies_found()
+            rows = [{name: [] for name in self._database.rows} for _ in range(self._nodes)]
+            for table, row in self._database.pairs():
+                for node in list(lies[table, row]):
+                    rows[node][table].append(row)
+            self._rows = rows
         return self._rows
 
     @classmethod
@@ -192,9 +196,7 @@ class Case:
             raise UnknownName(table)
         if (table, row) not in self._database:
             raise MissingRow(row)
-        if self._lies is None:
-            self._deal()
-        return self._lies[table, row]
+        return self._lies_found()[table, row]
 
     def rows_at(self, node):
         """A dict from all tables to the ascending tuples of the rows that lie on a node."""

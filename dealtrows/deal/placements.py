@@ -174,14 +174,14 @@ class Placement:
                 found.append((word,))
         return found
 
-    def _places_told(self, database, table, row):
+    def places_known(self, database, table, row):
         """The ascending tuple of the places of a row that is there."""
         found = self._places_found(database, table, row)
         return tuple(sorted(set(found))) if len(found) > 1 else tuple(found)
 
     def places_by_pair(self, database):
         """A dict from the pairs (table, row) of a database of this schema to the ascending tuples of their places."""
-        return {(table, row): self._places_told(database, table, row) for table, row in database.pairs()}
+        return {(table, row): self.places_known(database, table, row) for table, row in database.pairs()}
 
     def ways_of(self, table):
         """For each rule of a table its word, its name, and the places of columns in a row."""
@@ -194,7 +194,7 @@ class Placement:
             raise UnknownName(table)
         if (table, row) not in database:
             raise MissingRow(row)
-        return self._places_told(database, table, row)
+        return self.places_known(database, table, row)
 
     def places_in(self, database):
         """The ascending tuple of the places of all rows."""

@@ -42,7 +42,7 @@ class GuardedStore(Store, Guard):
 
     def _promise(self, pledged):
         """Change to these pledged queries, and return the moves."""
-        self._past.change(State(self._past.now.kept, pledged))
+        self._past.change(State(self._past.now.dealt, pledged))
         return self.moves
 
     def pledge(self, name, query):

@@ -1,13 +1,12 @@
 """Stores: rows on nodes by a placement, which can be changed."""
 
-from dealtrows.base.databases import Database, many_rows, rows_of
+from dealtrows.base.databases import Database
 from dealtrows.base.names import is_integer, is_name, is_row
-from dealtrows.deal.cases import MAX_NODES, Case, KnownPlaces
-from dealtrows.deal.placements import ALL, FIRST, check_placement
+from dealtrows.deal.cases import MAX_NODES
+from dealtrows.deal.placements import check_placement
 from dealtrows.errors import InvalidNumber, InvalidOperation, InvalidRow, InvalidRule, MissingRow, NoNodes, UnknownName
+from dealtrows.live.dealings import ANY, Dealing
 from dealtrows.live.history import Group, History, Trial
-
-_ANY = ("any",)
 
 
 def _check_nodes(nodes):
@@ -39,25 +38,18 @@ def _check_many(many):
         raise InvalidNumber(many)
 
 
-def _emptiest(case):
-    """The first of the nodes with the fewest rows."""
-    many = [many_rows(case.rows_at(node)) for node in range(case.nodes)]
-    return many.index(min(many))
-
-
 def _moves_between(old, new):
     """The ascending tuple of (table, row, before, after) for the rows with other nodes, by the nodes of all rows."""
-    told = [(table, row, old.get((table, row), ()), new.get((table, row), ()))
-            for table, row in sorted(set([*old, *new]))]
-    return tuple([move for move in told if move[2] != move[3]])
+    changed = [pair for pair in new if old.get(pair, ()) != new[pair]]
+    gone = [pair for pair in old if pair not in new]
+    return tuple([(pair[0], pair[1], old.get(pair, ()), new.get(pair, ())) for pair in sorted(changed + gone)])
 
 
 class State:
-    """The case and the pledged queries of a store at one time. It never changes."""
+    """The rows on nodes and the pledged queries of a store at one time. It never changes."""
 
-    def __init__(self, kept, pledged):
-        self.kept = kept
-        self.nodes_by_pair = kept.lies()
+    def __init__(self, dealt, pledged):
+        self.dealt = dealt
         self.pledged = pledged
 
 
@@ -71,17 +63,17 @@ class Store:
         if not _are_weights(weights) or not _have_weights(placement, weights):
             raise InvalidOperation("the spreads are no dict with as many weights as each spread needs")
         self._weights = {name: weights[name] for name in sorted(weights)}
-        self._past = History(State(Case(placement, Database.empty(placement.schema), nodes=nodes), {}))
+        self._past = History(State(Dealing(placement, Database.empty(placement.schema), nodes, self._weights, {}), {}))
 
     @property
     def placement(self):
         """The placement."""
-        return self._past.now.kept.placement
+        return self._past.now.dealt.ruled
 
     @property
     def nodes(self):
         """The number of nodes."""
-        return self._past.now.kept.nodes
+        return self._past.now.dealt.node_count
 
     @nodes.setter
     def nodes(self, value):
@@ -95,58 +87,43 @@ class Store:
     @property
     def database(self):
         """The database of the rows."""
-        return self._past.now.kept.database
+        return self._past.now.dealt.held
 
     @property
     def moves(self):
         """The ascending tuple of (table, row, before, after) for the rows that were moved last."""
-        return _moves_between(self._past.before.nodes_by_pair, self._past.now.nodes_by_pair)
+        return _moves_between(self._past.before.dealt.nodes_by_pair, self._past.now.dealt.nodes_by_pair)
 
     def case(self):
         """The case that the store makes now."""
-        return self._past.now.kept
+        return self._past.now.dealt.made_case()
 
-    def _node_of(self, place, nodes, lone):
-        """The node of a place, by the weights and the nodes of lone rows."""
-        if place == FIRST:
-            return 0
-        if place[0] == "any":
-            return lone.get(place[1:], 0) % nodes
-        return sum([weight * number for weight, number in zip(self._weights[place[1]], place[2])]) % nodes
-
-    def _go_to(self, placement, database, nodes, lone):
-        """Change to the case with these rows, and return the moves."""
-        places = [place for place in placement.places_in(database) if place != ALL]
-        told = {place: self._node_of(place, nodes, lone) for place in places}
-        kept = Case(placement, database, nodes=nodes, spreads=KnownPlaces(told))
-        self._past.change(State(kept, self._past.now.pledged))
-        return self.moves
+    def _go_to(self, dealt):
+        """Change to other rows on nodes."""
+        self._past.change(State(dealt, self._past.now.pledged))
 
     def add(self, table, row, *, node=None):
         """Add a row, by the rule ("any",) on a node that is told or on the first with the fewest rows."""
-        now = self._past.now.kept
-        if not now.placement.schema.is_row_of(table, row):
+        now = self._past.now.dealt
+        if not now.ruled.schema.is_row_of(table, row):
             raise InvalidRow("this is no row of the table")
-        if node is not None and not (is_integer(node) and 0 <= node < now.nodes):
+        if node is not None and not (is_integer(node) and 0 <= node < now.node_count):
             raise InvalidNumber(node)
-        is_lone = _ANY in now.placement[table]
-        if node is not None and not is_lone or (table, row) in now.database:
+        if node is not None and ANY not in now.ruled[table] or (table, row) in now.nodes_by_pair:
             raise InvalidOperation("no node can be told for the table, or the row is there")
-        database = now.database.with_row(table, row)
-        lone = now.lone
-        if is_lone:
-            lone[table, row] = _emptiest(now) if node is None else node
-        return self._go_to(now.placement, database, now.nodes, lone)
+        self._go_to(now.with_one(table, row, node))
+        # No other row moves.
+        return ((table, row, (), self._past.now.dealt.nodes_by_pair[table, row]),)
 
     def remove(self, table, row):
         """Remove a row."""
-        now = self._past.now.kept
-        if table not in now.placement.schema:
+        now = self._past.now.dealt
+        if table not in now.ruled.schema:
             raise UnknownName(table)
-        if (table, row) not in now.database:
+        if (table, row) not in now.held:
             raise MissingRow(row)
-        left = [pair for pair in now.database.pairs() if pair != (table, row)]
-        return self._go_to(now.placement, Database(now.placement.schema, rows_of(left)), now.nodes, now.lone)
+        self._go_to(now.without_one(table, row))
+        return ((table, row, now.nodes_by_pair[table, row], ()),)
 
     def __iadd__(self, other):
         _check_pair(other)
@@ -167,14 +144,15 @@ class Store:
 
     def put(self, table, *rules):
         """Give a table other rules."""
-        now = self._past.now.kept
-        return self._go_to(self.placement_with(table, rules), now.database, now.nodes, now.lone)
+        now = self._past.now.dealt
+        self._go_to(now.with_all(self.placement_with(table, rules), now.node_count))
+        return self.moves
 
     def __getitem__(self, at):
-        return self._past.now.kept.placement[at]
+        return self._past.now.dealt.ruled[at]
 
     def __setitem__(self, at, worth):
-        if at not in self._past.now.kept.placement.schema:
+        if at not in self._past.now.dealt.ruled.schema:
             raise UnknownName(at)
         if not isinstance(worth, tuple):
             raise InvalidRule("these are no tuple of rules")
@@ -186,12 +164,13 @@ class Store:
     def resize(self, nodes):
         """Change the number of nodes."""
         _check_nodes(nodes)
-        now = self._past.now.kept
-        return self._go_to(now.placement, now.database, nodes, now.lone)
+        now = self._past.now.dealt
+        self._go_to(now.with_all(now.ruled, nodes))
+        return self.moves
 
     def ask(self, query):
         """The combined answer."""
-        now = self._past.now.kept
+        now = self._past.now.dealt.made_case()
         return now(query)
 
     def __call__(self, query):
@@ -232,11 +211,11 @@ class Store:
         return made
 
     def __contains__(self, x):
-        return x in self._past.now.kept.database
+        return x in self._past.now.dealt.held
 
     def __len__(self):
-        return len(self._past.now.kept.database.pairs())
+        return len(self._past.now.dealt.held.pairs())
 
     def __eq__(self, other):
-        return (isinstance(other, Store) and self._past.now.kept == other._past.now.kept
-                and self._weights == other._weights and self._past.now.pledged == other._past.now.pledged)
+        return (isinstance(other, Store) and self._past.now.dealt == other._past.now.dealt
+                and self._past.now.pledged == other._past.now.pledged)
