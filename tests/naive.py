@@ -82,16 +82,21 @@ def is_plain(query):
     return query.form == "distinct" and not any(clause.absences for clause in query.clauses)
 
 
+def places_of(placement, query, pattern):
+    """The places of a pattern, its ties, and the places that are given for these."""
+    tables = {table for clause in query.clauses for table, _ in clause.parts}
+    database = pattern.database
+    ties = ties_of(query, database.rows)
+    given = [given_places(placement, database, tie) for tie in ties]
+    places = {place for table, row in database.pairs() if table in tables
+              for place in placement.places_of(database, table, row)}
+    return sorted((places | {place for told in given if told for place in told}) - {ALL}), ties, given
+
+
 def choices_of(placement, query):
     """All choices of a pattern, a layout, a number of nodes, and sets of nodes for its ties."""
-    tables = {table for clause in query.clauses for table, _ in clause.parts}
     for pattern in patterns(query):
-        database = pattern.database
-        ties = ties_of(query, database.rows)
-        given = [given_places(placement, database, tie) for tie in ties]
-        places = {place for table, row in database.pairs() if table in tables
-                  for place in placement.places_of(database, table, row)}
-        places = sorted((places | {place for told in given if told for place in told}) - {ALL})
+        places, ties, given = places_of(placement, query, pattern)
         for layout in layouts_of(places):
             used = len(set(layout.values()))
             for nodes in (max(1, used), max(1, used) + 1):

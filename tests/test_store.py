@@ -414,6 +414,20 @@ class ValueTest(unittest.TestCase):
         store.resize(2)
         self.assertEqual(store, again)
 
+    def test_stores_whose_cases_differ(self):
+        def lone(rules=(ANY,), nodes=3, row=(1,), node=0):
+            store = stored(free(b=rules), nodes=nodes)
+            store.add("b", row, node=node)
+            return store
+        self.assertEqual(lone(), lone())
+        for other in (lone(node=1), lone(row=(2,)), lone(nodes=4), lone((ANY, FIRST))):
+            self.assertTrue(lone() != other and not lone() == other)
+        # By another way to the same nodes.
+        moved = lone(nodes=4, node=3)
+        moved.resize(3)
+        self.assertEqual(moved, lone())
+        self.assertEqual(lone((ANY, FIRST), node=0).case().nodes_of("b", (1,)), lone().case().nodes_of("b", (1,)))
+
     def test_pairs_and_length(self):
         store = shop()
         self.assertEqual([("cus", (1, 5)) in store, ("cus", (1, 6)) in store, len(store)], [True, False, 3])

@@ -68,6 +68,25 @@ def _tied_terms(clause, rows):
     return found
 
 
+def tied_values(clause, rows, limit):
+    """For each absence its table, the places of its tied columns, and a dict of what open matches have in them."""
+    if not clause.absences:
+        # The limit of open matches holds for these clauses, too.
+        check_many(clause, rows, limit)
+        return []
+    chain = clause.chain()
+    if chain.is_few(rows):
+        told = chain.found(rows)
+        return [(table, [place for place, _ in tied], {tuple([known[at] for _, at in tied]): True for known in told})
+                for table, tied in chain.ties_at]
+    found = []
+    weighed = clause.search_told().weighed(rows, limit)
+    for (table, terms), (_, tied) in zip(clause.absences, chain.ties_at):
+        wanted = [terms[place] for place, _ in tied]
+        found.append((table, [place for place, _ in tied], {values_of(wanted, known): True for known, _ in weighed}))
+    return found
+
+
 def match_list(clause, rows, limit, head=None):
     """The list of the matches in some rows, with a head or all, ascending by their integers."""
     chain = clause.chain()

@@ -255,6 +255,9 @@ class Query:
         self._form = form
         self._clauses = clauses
         self._integers = _named_integers(clauses)
+        # What is found of the query to decide it is kept here: its drafts, and the survey by the last placement.
+        self.kept_drafts = None
+        self.kept_survey = None
 
     @classmethod
     def of(cls, schema, form, clauses):

@@ -111,6 +111,11 @@ def check_schema(value):
         raise InvalidSchema("this is no schema")
 
 
+def _places_of(columns, wanted):
+    """The places of the wanted columns among those of a table."""
+    return tuple([columns.index(column) for column in wanted])
+
+
 def picked(columns, values, wanted):
     """Of values, one for each column, those for the wanted columns, in their order."""
     return tuple([values[columns.index(column)] for column in wanted])
@@ -131,6 +136,9 @@ class Schema:
         self._tables = {table: tables[table] for table in sorted(tables)}
         self._keys = {table: all_keys[table] for table in sorted(all_keys)}
         self._references = {name: all_references[name] for name in sorted(all_references)}
+        # Places of columns are found when they are first asked for, once for each table.
+        self._places_by_table = {}
+        self._steps_by_table = {}
 
     @property
     def tables(self):
@@ -163,6 +171,27 @@ class Schema:
         if not isinstance(table, str) or table not in self._tables:
             raise UnknownName(table)
         return tuple([name for name in self._references if self._references[name][0] == table])
+
+    def key_places(self, table):
+        """For each key of a table that is there the pair of the key and the places of its columns."""
+        if table not in self._places_by_table:
+            columns, keys = self._tables[table], self._keys.get(table, ())
+            self._places_by_table[table] = tuple([(key, _places_of(columns, key)) for key in keys])
+        return self._places_by_table[table]
+
+    def _step_by(self, name):
+        """A step along a reference."""
+        table, columns, parent, key = self._references[name]
+        return (name, _places_of(self._tables[table], columns), parent, key, _places_of(self._tables[parent], key))
+
+    def steps_of(self, table):
+        """For each reference of a table that is there its step.
+
+        That is its name, the places of its columns, the parent table, the key, and the places of its columns.
+        """
+        if table not in self._steps_by_table:
+            self._steps_by_table[table] = tuple([self._step_by(name) for name in self.references_of(table)])
+        return self._steps_by_table[table]
 
     def is_row_of(self, table, value):
         """Whether the value is a row of a table."""

@@ -203,7 +203,7 @@ def _is_told_in(query, plan, route):
     match = plan.deal.draft.match_with(plan.valued)
     head = values_of(query.clauses[plan.deal.draft.of_clause].head, match)
     for clause, found in enumerate(plan.known_matches()):
-        chain = plan.ground.chains[clause][0]
+        chain = plan.ground.chains()[clause][0]
         for known in [known for known in found if chain.head_of(known) == head]:
             rows = plan.pairs_of_parts(clause, known)
             if _is_told(shared_places([plan.by_pair[row] for row in rows]), route):

@@ -7,6 +7,7 @@ value for each symbol of the template. The terms of a draft are places in it.
 from dealtrows.ask.joins import values_of
 from dealtrows.ask.terms import is_variable
 from dealtrows.base.databases import Database, known_rows
+from dealtrows.decide.folds import folds_of, holds
 
 _STEP = 100000
 
@@ -38,6 +39,7 @@ class Draft:
 
     def __init__(self, query, index, template):
         self.of_clause = index
+        self._clauses = query.clauses
         self._schema = query.schema
         self._clause = query.clauses[index]
         self._integers = query.integers
@@ -51,14 +53,15 @@ class Draft:
         tests = [(at[template.term_of(low)], at[template.term_of(high)])
                  for low, word, high in self._clause.tests if word == "!="]
         self._rules = self._rules_by_symbol(tests, self._clashes())
+        # Folds are found when ties are first asked for.
+        self._folded = None
 
     def _clashes(self):
         """Pairs of places in keys and places in rows of two lines: rows with an equal key are equal."""
         found = []
         for at, (table, one) in enumerate(self.line_terms):
             for other in [terms for name, terms in self.line_terms[:at] if name == table]:
-                for key in self._schema.keys_of(table):
-                    where = [self._schema.columns_of(table).index(column) for column in key]
+                for _, where in self._schema.key_places(table):
                     found.append(([(one[place], other[place]) for place in where], list(zip(one, other))))
         return found
 
@@ -99,6 +102,22 @@ class Draft:
                     more = [told for told in more if self._is_kept(self._rules[at], told[0])]
                 # The last one is taken first.
                 waiting.extend(more[::-1])
+
+    def _folds(self):
+        """The folds into the lines."""
+        if self._folded is None:
+            integers = {number: place for place, number in enumerate(self._integers)}
+            self._folded = folds_of(self._clauses, self.line_terms, integers)
+        return self._folded
+
+    def tied_places(self):
+        """The different pairs of a kind of ties and tied places that ties of patterns can have."""
+        return list({told: True for _, _, tied in self._folds() for told in tied})
+
+    def ties_with(self, values):
+        """The different pairs of a kind and integers that the ties of the pattern with these values have."""
+        kept = [tied for equal, unequal, tied in self._folds() if holds(equal, unequal, values)]
+        return list({(kind, tuple([values[at] for at in places])): True for tied in kept for kind, places in tied})
 
     def pairs_with(self, values):
         """The pairs (table, row) that the lines become, perhaps repeated."""

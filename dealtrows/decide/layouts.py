@@ -2,6 +2,10 @@
 
 from dealtrows.deal.placements import FIRST
 
+# For each number of places, up to six, and each number of nodes, from 0 on, how many layouts there are.
+LAYOUTS_BY_NODES = (
+    (1,), (0, 1), (0, 1, 1), (0, 1, 3, 1), (0, 1, 7, 6, 1), (0, 1, 15, 25, 10, 1), (0, 1, 31, 90, 65, 15, 1))
+
 
 def _in_order(places, nodes):
     """The layout of ascending places with these nodes, that of ("first",) being told before the others."""
@@ -11,24 +15,15 @@ def _in_order(places, nodes):
 
 def all_layouts(places):
     """The list of the layouts of ascending places."""
-    found = [()]
+    found = [((), 0)]
     for _ in places:
-        found = [(*nodes, node) for nodes in found for node in range(len(set(nodes)) + 1)]
-    return [_in_order(places, nodes) for nodes in found]
+        found = [((*nodes, node), max(used, node + 1)) for nodes, used in found for node in range(used + 1)]
+    return [_in_order(places, nodes) for nodes, _ in found]
 
 
 def apart(places):
     """The layout that gives a node of its own to each place."""
     return _in_order(places, tuple(range(len(places))))
-
-
-def counts_by_nodes(many):
-    """For each number of nodes from 0 to that of the places: how many layouts of so many places have it."""
-    found = [1]
-    for _ in range(many):
-        more = [at * number for at, number in enumerate(found)]
-        found = [low + high for low, high in zip([0, *found], [*more, 0])]
-    return found
 
 
 def many_nodes(layout):

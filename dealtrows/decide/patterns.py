@@ -65,7 +65,14 @@ def _checked_draft(query, index):
 def drafts_of(query):
     """The list of the drafts of all clauses, None for a clause without a template."""
     check_query(query)
-    return [_checked_draft(query, index) for index in range(len(query))]
+    if query.kept_drafts is None:
+        query.kept_drafts = [_checked_draft(query, index) for index in range(len(query))]
+    return list(query.kept_drafts)
+
+
+def _draft_of(query, index):
+    """The draft of a clause that has a template; other clauses may have templates that are too large."""
+    return _checked_draft(query, index) if query.kept_drafts is None else query.kept_drafts[index]
 
 
 def pattern_with(draft, values, used):
@@ -98,7 +105,7 @@ def pattern_of(query, clause, database, match):
     told = query.clauses[clause]
     if not is_assignment(told, match) or not is_open(told, database.rows, match):
         raise InvalidOperation("this is no open match in the database")
-    return pattern_in(_checked_draft(query, clause), database, match)
+    return pattern_in(_draft_of(query, clause), database, match)
 
 
 def pattern_key(pattern):

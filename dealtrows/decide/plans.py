@@ -10,114 +10,9 @@ from dealtrows.base.schemas import picked
 from dealtrows.deal.cases import Case, KnownPlaces
 from dealtrows.deal.placements import ALL
 from dealtrows.decide.drafts import bound_of
-from dealtrows.decide.layouts import all_layouts, apart, counts_by_nodes, many_nodes
-from dealtrows.decide.patterns import drafts_of, pattern_with
-from dealtrows.decide.ties import given_places, is_single, open_place, parent_pair
-
-
-def _without_repeats(values):
-    """The tuple of the different values, in their order."""
-    return tuple({value: True for value in values})
-
-
-def _place_with(way, values):
-    """The place that a place of a draft becomes."""
-    if len(way) == 1:
-        return way
-    return (way[0], way[1], tuple([values[at] for at in way[2]]))
-
-
-class Deal:
-    """A draft, and the places of its lines by a placement, in terms of the draft."""
-
-    def __init__(self, placement, draft, tables):
-        self.draft = draft
-        parents = {(child, name): line for child, name, line in draft.parent_lines}
-        lines = list(range(len(draft.line_terms)))
-        self._ways = [_without_repeats(self._ways_of(placement, parents, line)) for line in lines]
-        own = [self._ways[line] for line, (table, _) in enumerate(draft.line_terms) if table in tables]
-        self.own = [line for line, (table, _) in enumerate(draft.line_terms) if table in tables]
-        self.many_places = len(_without_repeats([way for ways in own for way in ways if way != ALL]))
-        parts = [self._ways[line] for line in draft.part_lines]
-        told = [ways for ways in parts if ALL not in ways]
-        # Places that all parts have in the draft are places of theirs in each pattern.
-        self.shared = (ALL,) if not told else tuple([way for way in told[0] if all([way in ways for ways in told])])
-
-    def _ways_of(self, placement, parents, line):
-        """The places of a line, perhaps repeated."""
-        table, terms = self.draft.line_terms[line]
-        found = []
-        for word, name, at in placement.ways_of(table):
-            if word == "by":
-                found.append((word, name, tuple([terms[place] for place in at])))
-            elif word == "with":
-                found.extend(self._ways_of(placement, parents, parents[line, name]))
-            elif word == "any":
-                found.append((word, table, tuple(terms)))
-            else:
-                found.append((word,))
-        return found
-
-    def places_with(self, values):
-        """For each line the tuple of the places of its row, perhaps repeated."""
-        return [tuple([_place_with(way, values) for way in ways]) for ways in self._ways]
-
-
-class Ground:
-    """A placement and a query that have small cases, and what their plans have in common."""
-
-    def __init__(self, placement, query):
-        self.ruled = placement
-        self.asked = query
-        self.of_schema = query.schema
-        tables = [table for clause in query.clauses for table, _ in clause.parts]
-        self.deals = [Deal(placement, draft, tables) for draft in drafts_of(query) if draft is not None]
-        self.chains = [(clause.chain(), self._tied_columns(clause.chain()), clause.chain().parts_at())
-                       for clause in query.clauses]
-        self._absent = [table for clause in query.clauses for table, _ in clause.absences]
-        self.has_absences = bool(self._absent)
-        # Each place has a node of its own if the query is distinct and has no absences.
-        self.is_apart = query.form == "distinct" and not self._absent
-        # For each pattern its deal, its values, its number of classes, and its plan if this is made already.
-        self.entries = []
-        self._numbers = {}
-        self._counts = {}
-
-    def counts(self, many):
-        """For each number of nodes how many layouts of so many places have it."""
-        if many not in self._counts:
-            self._counts[many] = counts_by_nodes(many)
-        return self._counts[many]
-
-    def _tied_columns(self, chain):
-        """For each absence of a clause its table, and its tied columns with what they are known by."""
-        schema = self.of_schema
-        return [(table, [(schema.columns_of(table)[place], at) for place, at in tied]) for table, tied in chain.ties_at]
-
-    def most_places(self):
-        """A number that the places of a pattern do not exceed, or None if there is none that is known."""
-        rules = [self.ruled[table][0][0] for table in self._absent]
-        if "by" in rules:
-            return None
-        more = 1 if "first" in rules else 0
-        return max([0, *[deal.many_places for deal in self.deals]]) + more
-
-    def plan_of(self, entry):
-        """The plan of a pattern."""
-        deal, values, used, plan = entry
-        return Plan(self, deal, values, used) if plan is None else plan
-
-    def number_of(self, pairs):
-        """A number for the rows of a case: equal rows have equal numbers."""
-        return self._numbers.setdefault(pairs, len(self._numbers))
-
-    def key_of(self, case):
-        """What tells a case of the placement apart from others, as the keys of frames do, or None for unknown rows."""
-        pairs = case.database.pairs()
-        if pairs not in self._numbers:
-            return None
-        places = case.places
-        return (self._numbers[pairs], case.nodes, tuple([places[place] for place in places]))
+from dealtrows.decide.layouts import all_layouts, apart, many_nodes
+from dealtrows.decide.patterns import pattern_with
+from dealtrows.decide.ties import open_place, parent_pair
 
 
 class Plan:
@@ -136,9 +31,9 @@ class Plan:
         self.own_places = tuple(sorted(set([place for place in told if place != ALL])))
         self.ties = ()
         self.given = []
-        self._single = []
+        self._kinds = []
         self.all_places = self.own_places
-        if ground.has_absences:
+        if ground.all_kinds:
             self._take_ties()
         self._blocking = {}
         self._frames = {}
@@ -153,24 +48,25 @@ class Plan:
     def known_matches(self):
         """For each clause the list of what is known by its open matches in the pattern."""
         rows = self.rows_by_table()
-        return [chain.found(rows) for chain, _, _ in self.ground.chains]
+        return [chain.found(rows) for chain, _, _ in self.ground.chains()]
 
     def pairs_of_parts(self, clause, known):
         """The pairs (table, row) that the parts of a clause become, perhaps repeated."""
-        return [(table, tuple([known[at] for at in where])) for table, where in self.ground.chains[clause][2]]
+        return [(table, tuple([known[at] for at in where])) for table, where in self.ground.chains()[clause][2]]
 
     def ties_of(self, clause, known):
         """The ties of an open match of a clause, one for each absence."""
         return [(table, tuple([(column, known[at]) for column, at in tied]))
-                for table, tied in self.ground.chains[clause][1]]
+                for table, tied in self.ground.chains()[clause][1]]
 
     def _take_ties(self):
         """Find the ties in the rows of the pattern, and the places that are given for them."""
-        told = [tie for clause, found in enumerate(self.known_matches()) for known in found
-                for tie in self.ties_of(clause, known)]
-        self.ties = tuple(sorted(set(told)))
-        self._single = [is_single(self.ground.of_schema, tie) for tie in self.ties]
-        self.given = [given_places(self.ground.ruled, self.by_pair, tie) for tie in self.ties]
+        kinds = self.ground.all_kinds
+        found = [(kinds[at].tie_with(numbers), at, numbers) for at, numbers in self.deal.draft.ties_with(self.valued)]
+        told = sorted(found)
+        self.ties = tuple([tie for tie, _, _ in told])
+        self._kinds = [kinds[at] for _, at, _ in told]
+        self.given = [kinds[at].given_places(numbers, self.by_pair) for _, at, numbers in told]
         more = [place for places in self.given if places is not None for place in places if place != ALL]
         self.all_places = tuple(sorted(set([*self.own_places, *more])))
 
@@ -183,37 +79,12 @@ class Plan:
         if self.given[at] is not None:
             return [(), (0,)]
         found = [(), *[(node,) for node in range(nodes)]]
-        if nodes > 1 and not self._single[at]:
+        if nodes > 1 and not self._kinds[at].is_single:
             if self.ground.asked.form == "distinct":
                 found.append(tuple(range(nodes)))
             else:
                 found.extend([(low, high) for high in range(nodes) for low in range(high)])
         return found
-
-    def _many_sets_of(self, at, nodes):
-        """How many these sets are."""
-        if self.given[at] is not None:
-            return 2
-        if nodes == 1 or self._single[at]:
-            return 1 + nodes
-        return 2 + nodes if self.ground.asked.form == "distinct" else 1 + nodes + nodes * (nodes - 1) // 2
-
-    def _many_sets(self, nodes):
-        """How many choices of sets of nodes there are for all ties."""
-        many = 1
-        for at in range(len(self.ties)):
-            many = many * self._many_sets_of(at, nodes)
-        return many
-
-    def many_choices(self):
-        """How many choices there are, also those that break keys."""
-        if self.ground.is_apart:
-            return 1
-        by_nodes = self.ground.counts(len(self.all_places))
-        if not self.ties:
-            return 2 * sum(by_nodes)
-        told = [(number, max(1, used)) for used, number in enumerate(by_nodes)]
-        return sum([number * (self._many_sets(least) + self._many_sets(least + 1)) for number, least in told])
 
     def laid_out(self):
         """The list of the layouts, each with a number of nodes."""

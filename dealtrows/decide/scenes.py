@@ -46,7 +46,7 @@ class Scene:
 
     def _told_match(self, plan, clause, known, rows):
         """The head and the number of an open match, the places of its rows, and the indices of its ties."""
-        chain = plan.ground.chains[clause][0]
+        chain = plan.ground.chains()[clause][0]
         pairs = plan.pairs_of_parts(clause, known)
         ties = [self._ties[tie] for tie in plan.ties_of(clause, known)] if self._ties else []
         number = 1 if chain.summed_at is None else known[chain.summed_at]

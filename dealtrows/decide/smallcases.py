@@ -5,8 +5,9 @@ from dealtrows.ask.queries import check_query
 from dealtrows.base.names import is_ascending
 from dealtrows.deal.cases import Case
 from dealtrows.deal.placements import check_placement, is_place
+from dealtrows.decide.grounds import Ground
 from dealtrows.decide.layouts import all_layouts
-from dealtrows.decide.plans import Ground, Plan
+from dealtrows.decide.surveys import Survey
 from dealtrows.decide.ties import ties_in
 from dealtrows.errors import InvalidOperation, TooMany
 
@@ -47,33 +48,42 @@ def layouts(places):
         yield dict(zip(places, layout))
 
 
-def _entries_of(ground):
-    """The entries of all patterns of a ground, refused if they have too many places or cases."""
-    most = ground.most_places()
+def _entries_of(survey):
+    """The entries of all patterns of a survey, or the limit that is exceeded if they have too many places or cases."""
+    if any([deal.many_places > MAX_PLACES for deal in survey.deals]):
+        return ([], MAX_PLACES)
     # Where no pattern can have too many places, there is no reason to look on when there are too many cases.
-    is_narrow = most is not None and most <= MAX_PLACES
+    is_narrow = all([deal.most_places <= MAX_PLACES for deal in survey.deals])
     found = []
     total = 0
-    for deal in ground.deals:
+    for deal in survey.deals:
         for values, used in deal.draft.valuations():
-            plan = None if is_narrow and ground.is_apart else Plan(ground, deal, values, used)
-            if plan is not None and len(plan.all_places) > MAX_PLACES:
-                raise TooMany(MAX_PLACES)
-            total += 1 if plan is None else plan.many_choices()
+            tally = None if survey.is_apart else deal.tally(values)
+            if tally is not None and tally[0] > MAX_PLACES:
+                return ([], MAX_PLACES)
+            total += 1 if tally is None else survey.many_choices(tally)
             if is_narrow and total > MAX_CASES:
-                raise TooMany(MAX_CASES)
-            found.append((deal, values, used, plan))
-    if total > MAX_CASES:
-        raise TooMany(MAX_CASES)
-    return found
+                return ([], MAX_CASES)
+            found.append((deal, values, used))
+    return (found, None) if total <= MAX_CASES else ([], MAX_CASES)
+
+
+def _new_survey(placement, query):
+    """The survey of a placement and a query, with its entries or a limit."""
+    made = Survey(placement, query)
+    made.entries, made.limit = _entries_of(made)
+    return made
 
 
 def ground_of(placement, query):
-    """The ground of a placement and a query, with its entries."""
+    """The ground of a placement and a query, refused if it has too many places or cases."""
     check_decidable(placement, query)
-    ground = Ground(placement, query)
-    ground.entries = _entries_of(ground)
-    return ground
+    if query.kept_survey is None or query.kept_survey.ruled != placement:
+        query.kept_survey = _new_survey(placement, query)
+    survey = query.kept_survey
+    if survey.limit is not None:
+        raise TooMany(survey.limit)
+    return Ground(query, survey)
 
 
 def case_key(case):
@@ -82,14 +92,13 @@ def case_key(case):
     return (case.nodes, case.database.pairs(), tuple([(place, places[place]) for place in places]))
 
 
-def _choices_of(plan):
-    """For all choices of a plan their keys, their frames, their numbers of nodes and the nodes of their places."""
+def _keys_of(plan):
+    """The list of the keys of all choices of a plan."""
     found = []
     for layout, nodes in plan.laid_out():
         for chosen in plan.sets(nodes):
             frame = plan.frame(chosen)
-            told = frame.nodes_with(layout, chosen)
-            found.append((frame.key_with(nodes, told), frame, nodes, told))
+            found.append(frame.key_with(nodes, frame.nodes_with(layout, chosen)))
     return found
 
 
@@ -98,20 +107,25 @@ def small_cases(placement, query):
     ground = ground_of(placement, query)
     seen = {}
     for entry in ground.entries:
-        for key, frame, nodes, told in _choices_of(ground.plan_of(entry)):
-            # Patterns of several clauses can make the same case, and layouts of given places without a row.
-            if key not in seen:
-                seen[key] = True
-                yield frame.case_with(nodes, told)
+        plan = ground.plan_of(entry)
+        for layout, nodes in plan.laid_out():
+            for chosen in plan.sets(nodes):
+                frame = plan.frame(chosen)
+                told = frame.nodes_with(layout, chosen)
+                key = frame.key_with(nodes, told)
+                # Patterns of several clauses can make the same case, and layouts of given places without a row.
+                if key not in seen:
+                    seen[key] = True
+                    yield frame.case_with(nodes, told)
 
 
 def _is_case_of(ground, entry, case):
     """Whether a case of the placement is a small case of a pattern."""
-    plan = ground.plan_of(entry)
+    deal, values, _ = entry
     pairs = case.database.pairs()
-    if not all([pair in pairs for pair in plan.by_pair]):
+    if not all([pair in pairs for pair in deal.draft.pairs_with(values)]):
         return False
-    keys = [key for key, _, _, _ in _choices_of(plan)]
+    keys = _keys_of(ground.plan_of(entry))
     return ground.key_of(case) in keys
 
 

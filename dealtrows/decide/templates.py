@@ -5,7 +5,6 @@ so that they are variables too, and have the name of none.
 """
 
 from dealtrows.ask.terms import is_variable, terms_of_parts
-from dealtrows.base.schemas import picked
 
 
 def _without_repeats(lines):
@@ -13,19 +12,9 @@ def _without_repeats(lines):
     return list({line: True for line in lines})
 
 
-def _terms_at(schema, line, columns):
-    """The terms of a line in some columns of its table."""
-    return picked(schema.columns_of(line[0]), line[1], columns)
-
-
-def parent_line(schema, lines, line, reference):
-    """The line that is the parent of a line by a reference, or None."""
-    _, columns, parent, key = reference
-    wanted = _terms_at(schema, line, columns)
-    for other in lines:
-        if other[0] == parent and _terms_at(schema, other, key) == wanted:
-            return other
-    return None
+def _at(terms, places):
+    """The terms at some places."""
+    return tuple([terms[place] for place in places])
 
 
 class Chase:
@@ -37,6 +26,8 @@ class Chase:
         self._terms = {name: name for name in clause.variables}
         self._many = 0
         self._fails = False
+        # The line that has these terms in a key of a table.
+        self._by_key = {}
 
     def _merge(self, one, other):
         """Make two terms one."""
@@ -54,87 +45,101 @@ class Chase:
         """What a term of a test has become."""
         return self._terms[term] if is_variable(term) else term
 
+    def _clash_of(self, line):
+        """Take up the keys of a line: two different terms of lines with the same terms in a key, or None."""
+        table, terms = line
+        for key, places in list(self._schema.key_places(table)):
+            other = self._by_key.setdefault((table, key, _at(terms, places)), line)
+            if other != line:
+                return [pair for pair in zip(other[1], terms) if pair[0] != pair[1]][0]
+        return None
+
     def _clash(self):
-        """Two different terms of lines with the same terms in a key, or None."""
-        seen = {}
-        for line in self._lines:
-            for key in self._schema.keys_of(line[0]):
-                other = seen.setdefault((line[0], key, _terms_at(self._schema, line, key)), line)
-                if other != line:
-                    return [pair for pair in zip(other[1], line[1]) if pair[0] != pair[1]][0]
+        """Two different terms of some lines with the same terms in a key, or None."""
+        self._by_key = {}
+        for line in list(self._lines):
+            found = self._clash_of(line)
+            if found is not None:
+                return found
         return None
 
-    def _orphan(self):
-        """A line and a reference by which it has no parent, or None."""
-        references = self._schema.references
-        for line in self._lines:
-            for name in self._schema.references_of(line[0]):
-                if parent_line(self._schema, self._lines, line, references[name]) is None:
-                    return (line, references[name])
-        return None
+    def parent_line(self, line, step):
+        """The line that is the parent of a line by a step along a reference, or None."""
+        _, places, parent, key, _ = step
+        return self._by_key.get((parent, key, _at(line[1], places)))
 
-    def _add_parent(self, line, reference):
-        """Add the parent of a line, with new symbols in the columns outside the key."""
-        _, columns, parent, key = reference
-        told = dict(zip(key, _terms_at(self._schema, line, columns)))
+    def _new_parent(self, line, step):
+        """The parent of a line by a step, with new symbols in the columns outside the key."""
+        _, places, parent, _, key_places = step
+        told = dict(zip(key_places, _at(line[1], places)))
         terms = []
-        for column in self._schema.columns_of(parent):
-            if column not in told:
+        for place in range(len(self._schema.columns_of(parent))):
+            if place not in told:
                 self._many += 1
-                told[column] = str(self._many)
-            terms.append(told[column])
-        self._lines = [*self._lines, (parent, tuple(terms))]
+                told[place] = str(self._many)
+            terms.append(told[place])
+        return (parent, tuple(terms))
+
+    def _add_parents(self):
+        """Add the parents that lines lack: two different terms that must become one, or None."""
+        at = 0
+        while at < len(self._lines):
+            line = self._lines[at]
+            for step in self._schema.steps_of(line[0]):
+                if self.parent_line(line, step) is None:
+                    made = self._new_parent(line, step)
+                    self._lines = [*self._lines, made]
+                    found = self._clash_of(made)
+                    if found is not None:
+                        return found
+            at += 1
+        return None
 
     def _step(self):
-        """Do one step, and tell whether there was one to do."""
+        """Make terms one or add parents, and tell whether there can be more to do."""
         clash = self._clash()
+        if clash is None:
+            clash = self._add_parents()
         if clash is not None:
             self._merge(clash[0], clash[1])
-            return not self._fails
-        orphan = self._orphan()
-        if orphan is not None:
-            self._add_parent(orphan[0], orphan[1])
-        return orphan is not None
+        return clash is not None and not self._fails
 
     def result(self, clause):
-        """The lines and the terms of the template, or None if there is none."""
+        """The terms of the template, or None if there is none."""
         for one, word, other in clause.tests:
             if word == "=":
                 self._merge(self._term(one), self._term(other))
         while not self._fails and self._step():
             pass
         same = [test for test in clause.tests if test[1] == "!=" and self._term(test[0]) == self._term(test[2])]
-        return None if self._fails or same else (self._lines, self._terms)
-
-
-def _listed(schema, lines, parts):
-    """The lines in the order of the document, and triples of a line, a reference and the parent by it, as places.
-
-    First come the parts, then the parents of each line, each line once.
-    """
-    found = _without_repeats(parts)
-    references = schema.references
-    above = []
-    at = 0
-    while at < len(found):
-        for name in schema.references_of(found[at][0]):
-            parent = parent_line(schema, lines, found[at], references[name])
-            if parent not in found:
-                found = [*found, parent]
-            above.append((at, name, found.index(parent)))
-        at += 1
-    return (found, above)
+        return None if self._fails or same else self._terms
 
 
 class Template:
-    """The lines of a clause, in the order of the document, and the terms of its variables."""
+    """The lines of a clause, in the order of the document, and the terms of its variables.
 
-    def __init__(self, schema, lines, terms, parts):
-        self._lines, self._above = _listed(schema, lines, parts)
+    First come the parts, then the parents of each line, each line once.
+    """
+
+    def __init__(self, schema, chase, terms, parts):
+        lines = _without_repeats(parts)
+        where = {line: at for at, line in enumerate(lines)}
+        above = []
+        at = 0
+        while at < len(lines):
+            line = lines[at]
+            for step in list(schema.steps_of(line[0])):
+                parent = chase.parent_line(line, step)
+                if parent not in where:
+                    where[parent] = len(lines)
+                    lines.append(parent)
+                above.append((at, step[0], where[parent]))
+            at += 1
+        self._lines = lines
+        self._above = above
         self._terms = terms
-        self._parts = [self._lines.index(part) for part in parts]
-        told = [term for term in terms_of_parts(self._lines) if is_variable(term)]
-        self._symbols = tuple(_without_repeats(told))
+        self._parts = [where[part] for part in parts]
+        self._symbols = tuple(_without_repeats([term for term in terms_of_parts(lines) if is_variable(term)]))
 
     def lines(self):
         """The list of the lines."""
@@ -159,10 +164,10 @@ class Template:
 
 def template_of(schema, clause):
     """The template of a clause, or None if it has none."""
-    found = Chase(schema, clause).result(clause)
-    if found is None:
+    chase = Chase(schema, clause)
+    terms = chase.result(clause)
+    if terms is None:
         return None
-    lines, terms = found
     parts = [(table, tuple([terms[term] if is_variable(term) else term for term in told]))
              for table, told in clause.parts]
-    return Template(schema, lines, terms, parts)
+    return Template(schema, chase, terms, parts)

@@ -22,17 +22,17 @@ def _counterexample_in(ground):
     return None
 
 
-def _certificate_in(ground):
-    """All small cases with their answers, or None if some of these are wrong."""
+def _decision_in(ground):
+    """All small cases with their answers behind the word right, or the first wrong one behind the word wrong."""
     seen = {}
     for entry in ground.entries:
         for frame, nodes, told, numbers in answered_choices(ground.plan_of(entry)):
             if numbers[0] != numbers[1]:
-                return None
+                return ("wrong", frame.case_with(nodes, told))
             key = frame.key_with(nodes, told)
             if key not in seen:
                 seen[key] = (frame.case_with(nodes, told), _answer_with(ground.asked.form, numbers[0]))
-    return tuple([seen[key] for key in seen])
+    return ("right", tuple([seen[key] for key in seen]))
 
 
 def _answer_with(form, numbers):
@@ -42,7 +42,8 @@ def _answer_with(form, numbers):
 
 def certificate_of(placement, query):
     """All small cases with their answers, or None if the query is wrong."""
-    return _certificate_in(ground_of(placement, query))
+    word, found = _decision_in(ground_of(placement, query))
+    return found if word == "right" else None
 
 
 def counterexample_of(placement, query):
@@ -52,9 +53,7 @@ def counterexample_of(placement, query):
 
 def decision(placement, query):
     """A certificate behind the word right, or a counterexample behind the word wrong."""
-    ground = ground_of(placement, query)
-    found = _certificate_in(ground)
-    return ("wrong", _counterexample_in(ground)) if found is None else ("right", found)
+    return _decision_in(ground_of(placement, query))
 
 
 def _is_answered_case(placement, value):
