@@ -333,6 +333,16 @@ class CodeTest(unittest.TestCase):
             for node in ast.walk(function):
                 self.assertNotIsInstance(node, ast.AugAssign, function.name)
 
+    def test_operators_and_properties_store_nothing_that_they_did_not_make(self):
+        # What is kept when it is first asked for is asked for by plain methods and functions alone.
+        for function in run_by_operators():
+            told = values_of_names(function)
+            for node in ast.walk(function):
+                if isinstance(node, ast.Attribute) and not isinstance(node.ctx, ast.Load):
+                    self.assertEqual(function.name, "__init__", node.attr)
+                if isinstance(node, ast.Subscript) and not isinstance(node.ctx, ast.Load):
+                    self.assertTrue(all(is_made_there(value) for value in told[root_of(node)]), function.name)
+
     def test_ends_of_blocks_only_assign(self):
         plain = (ast.Name, ast.Attribute, ast.Constant, ast.Compare, ast.Load, ast.Store, ast.Is, ast.IsNot)
         for at, node in self.nodes(ast.FunctionDef):

@@ -85,7 +85,7 @@ class Chase:
         at = 0
         while at < len(self._lines):
             line = self._lines[at]
-            for step in self._schema.steps_of(line[0]):
+            for step in list(self._schema.steps_of(line[0])):
                 if self.parent_line(line, step) is None:
                     made = self._new_parent(line, step)
                     self._lines = [*self._lines, made]
